@@ -1,0 +1,54 @@
+package plain
+
+import (
+	"reflect"
+	"testing"
+
+	"cardnet/api"
+)
+
+func TestNumber(t *testing.T) {
+	for s, want := range map[string]int64{"0": 0, "-1": -1, "9223372036854775807": 1<<63 - 1, "-9223372036854775808": -1 << 63} {
+		if n, ok := Number(s); n != want || !ok {
+			t.Error(s, n, ok)
+		}
+	}
+	for _, s := range []string{"", "-", "+1", "01", "-0", "1 ", "1_0", "0x1", "9223372036854775808"} {
+		if n, ok := Number(s); n != 0 || ok {
+			t.Error(s, n, ok)
+		}
+	}
+}
+
+func TestForms(t *testing.T) {
+	for s, want := range map[string][3]bool{
+		"a": {true, true, false}, "A_9": {true, true, false}, "9a": {false, true, false}, "a-b": {false, true, false},
+		"": {}, "ABC": {true, true, true}, "_a": {false, true, false}, "aaaaaaaaaaaaaaaaa": {}, "a b": {}, "AB1": {true, true, false},
+		"aaaaaaaaaaaaaaaa": {true, true, false}, "\xc3\xa4": {},
+	} {
+		if got := [3]bool{IsName(s), IsId(s), IsCurrency(s)}; got != want {
+			t.Error(s, got)
+		}
+	}
+	if IsDigits("") || !IsDigits("09") || IsDigits("0a") || !IsHex("0f") || IsHex("0F") || Digits(7, 3) != "007" {
+		t.Error("digits")
+	}
+	if IsDate(-1) || !IsDate(api.MaxDate) || IsDate(api.MaxDate+1) || IsTime(-1) || !IsTime(api.MaxTime) || IsTime(api.MaxTime+1) {
+		t.Error("dates and times")
+	}
+	if IsAmount(0, 1) || !IsAmount(0, 0) || !IsAmount(api.MaxAmount, 1) || IsAmount(api.MaxAmount+1, 0) {
+		t.Error("amounts")
+	}
+}
+
+func TestCloneExpr(t *testing.T) {
+	e := api.Expr{Op: api.XNot, Args: []api.Expr{{Op: api.XName, Name: "a"}}}
+	c := CloneExpr(e)
+	if !reflect.DeepEqual(c, e) {
+		t.Error(c)
+	}
+	c.Args[0].Name = "b"
+	if e.Args[0].Name != "a" {
+		t.Error("shared memory")
+	}
+}
