@@ -11,10 +11,6 @@ import (
 
 func TestOrder(t *testing.T) {
 	x := New()
-	for id, at := range map[string]int{"b": 5} {
-		x.Set(id, at)
-	}
-	x = New()
 	x.Set("a", 10)
 	x.Set("b", 5)
 	x.Set("c", 10)
