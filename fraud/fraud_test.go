@@ -70,12 +70,9 @@ func TestActions(t *testing.T) {
 		refer, decline int
 	}{
 		{"rule a when 1 = 1: refer; rule b when 1 = 1: pass score 5;", "refer 5 a b", 6, 6}, {"rule a when 1 = 1: decline; rule b when 1 = 1: refer score 5;", "decline 5 a b", 5, 6}, {"rule a when 1 = 1: pass score 5;", "refer 5 a", 5, 6},
-		{"rule a when 1 = 1: pass score 6;", "decline 6 a", 5, 6}, {"rule a when 1 = 1: pass score 4; rule b when 1 = 2: decline score 9;", "pass 4 a", 5, 6}, {"", "pass 0", 1, 1}, {"rule a when amount * 4611686018427387904 = 0 or 1 = 1: pass;", "", 1, 1},
+		{"rule a when 1 = 1: pass score 6;", "decline 6 a", 5, 6}, {"rule a when 1 = 1: pass score 4; rule b when 1 = 2: decline score 9;", "pass 4 a", 5, 6}, {"", "pass 0", 1, 1},
 		{"rule a when sum(merchant, 9) <= 0 and not token: decline;", "decline 0 a", 5, 6},
 	} {
-		if c.want == "" {
-			continue
-		}
 		x := engine(t, c.s, c.refer, c.decline)
 		judge(t, x, 5, Features(api.Message{}), c.want)
 	}
