@@ -1,25 +1,26 @@
-package acquirer
+package acquirer_test
 
 import (
 	"strings"
 	"testing"
 
+	"cardnet/acquirer"
 	"cardnet/api"
 	"cardnet/message"
 )
 
 const day = 86400
 
-func start(t *testing.T) *Host {
-	h, e := New("shopbank", 3, 60, 30)
+func start(t *testing.T) *acquirer.Host {
+	h, e := acquirer.New("shopbank", 3, 60, 30)
 	if e != api.OK {
 		t.Fatal(e)
 	}
 	return h
 }
 
-func buy(amount int64) Purchase {
-	return Purchase{Merchant: "m-1", Terminal: "t1", Card: "4000000000000077", Amount: amount, Currency: "EUR", Category: 5411}
+func buy(amount int64) acquirer.Purchase {
+	return acquirer.Purchase{Merchant: "m-1", Terminal: "t1", Card: "4000000000000077", Amount: amount, Currency: "EUR", Category: 5411}
 }
 
 func reply(kind int, ref, code string, parts ...string) api.Message {
@@ -33,7 +34,7 @@ func reply(kind int, ref, code string, parts ...string) api.Message {
 }
 
 // sell begins a purchase and lets it be approved.
-func sell(t *testing.T, h *Host, at int, amount int64) string {
+func sell(t *testing.T, h *acquirer.Host, at int, amount int64) string {
 	t.Helper()
 	ref, _, e := h.Purchase(at, buy(amount))
 	if e != api.OK || h.Receive(at, reply(110, ref, "00")) != api.OK {
@@ -42,7 +43,7 @@ func sell(t *testing.T, h *Host, at int, amount int64) string {
 	return ref
 }
 
-func state(t *testing.T, h *Host, ref string, state int, approved, captured, refunded int64) {
+func state(t *testing.T, h *acquirer.Host, ref string, state int, approved, captured, refunded int64) {
 	t.Helper()
 	s, ok := h.Sale(ref)
 	if s.Ref != ref || s.State != state || s.Approved != approved || s.Captured != captured || s.Refunded != refunded || !ok {
@@ -50,7 +51,7 @@ func state(t *testing.T, h *Host, ref string, state int, approved, captured, ref
 	}
 }
 
-func next(t *testing.T, h *Host, want int, found bool) {
+func next(t *testing.T, h *acquirer.Host, want int, found bool) {
 	t.Helper()
 	if n, ok := h.Next(); n != want || ok != found {
 		t.Error(n, ok)
@@ -65,7 +66,7 @@ func TestNew(t *testing.T) {
 	}{
 		{"a", 0, 1, 1, 0}, {"a", 9, 100000, 100000, 0}, {"a-b", -1, 0, 0, api.ErrName}, {"a", -1, 1, 1, api.ErrRange}, {"a", 10, 1, 1, api.ErrRange}, {"a", 0, 0, 1, api.ErrRange}, {"a", 0, 100001, 1, api.ErrRange}, {"a", 0, 1, 0, api.ErrRange}, {"a", 0, 1, 100001, api.ErrRange},
 	} {
-		if h, e := New(c.name, c.sender, c.timeout, c.retry); e != c.want || (h == nil) != (e != api.OK) {
+		if h, e := acquirer.New(c.name, c.sender, c.timeout, c.retry); e != c.want || (h == nil) != (e != api.OK) {
 			t.Error(i, e)
 		}
 	}
@@ -93,13 +94,13 @@ func TestPurchase(t *testing.T) {
 	}
 	for i, c := range []struct {
 		at     int
-		change func(p *Purchase)
+		change func(p *acquirer.Purchase)
 		want   api.Errno
 	}{
-		{-1, func(p *Purchase) { p.Merchant, p.Card = "", "" }, api.ErrName}, {-1, func(p *Purchase) { p.Terminal = "" }, api.ErrName}, {-1, func(p *Purchase) { p.Terminal = "t1 " }, api.ErrName}, {-1, func(p *Purchase) { p.Terminal = "123456789" }, api.ErrName}, {-1, func(p *Purchase) { p.Terminal = "\n" }, api.ErrName},
-		{-1, func(p *Purchase) { p.Card, p.Amount = "40000000000", 0 }, api.ErrCard}, {-1, func(p *Purchase) { p.Card = strings.Repeat("1", 20) }, api.ErrCard}, {-1, func(p *Purchase) { p.Card = "40000000000a" }, api.ErrCard}, {-1, func(p *Purchase) { p.Amount, p.Currency = 0, "" }, api.ErrRange},
-		{-1, func(p *Purchase) { p.Amount = api.MaxAmount + 1 }, api.ErrRange}, {-1, func(p *Purchase) { p.Least = -1 }, api.ErrRange}, {-1, func(p *Purchase) { p.Least = 1001 }, api.ErrRange}, {-1, func(p *Purchase) { p.Category = 0 }, api.ErrRange}, {-1, func(p *Purchase) { p.Category = 10000 }, api.ErrRange},
-		{-1, func(p *Purchase) { p.Currency = "eur" }, api.ErrCurrency}, {20*day + 6, func(p *Purchase) {}, api.ErrTime}, {1 << 40, func(p *Purchase) {}, api.ErrTime},
+		{-1, func(p *acquirer.Purchase) { p.Merchant, p.Card = "", "" }, api.ErrName}, {-1, func(p *acquirer.Purchase) { p.Terminal = "" }, api.ErrName}, {-1, func(p *acquirer.Purchase) { p.Terminal = "t1 " }, api.ErrName}, {-1, func(p *acquirer.Purchase) { p.Terminal = "123456789" }, api.ErrName}, {-1, func(p *acquirer.Purchase) { p.Terminal = "\n" }, api.ErrName},
+		{-1, func(p *acquirer.Purchase) { p.Card, p.Amount = "40000000000", 0 }, api.ErrCard}, {-1, func(p *acquirer.Purchase) { p.Card = strings.Repeat("1", 20) }, api.ErrCard}, {-1, func(p *acquirer.Purchase) { p.Card = "40000000000a" }, api.ErrCard}, {-1, func(p *acquirer.Purchase) { p.Amount, p.Currency = 0, "" }, api.ErrRange},
+		{-1, func(p *acquirer.Purchase) { p.Amount = api.MaxAmount + 1 }, api.ErrRange}, {-1, func(p *acquirer.Purchase) { p.Least = -1 }, api.ErrRange}, {-1, func(p *acquirer.Purchase) { p.Least = 1001 }, api.ErrRange}, {-1, func(p *acquirer.Purchase) { p.Category = 0 }, api.ErrRange}, {-1, func(p *acquirer.Purchase) { p.Category = 10000 }, api.ErrRange},
+		{-1, func(p *acquirer.Purchase) { p.Currency = "eur" }, api.ErrCurrency}, {20*day + 6, func(p *acquirer.Purchase) {}, api.ErrTime}, {1 << 40, func(p *acquirer.Purchase) {}, api.ErrTime},
 	} {
 		p := buy(1000)
 		c.change(&p)
@@ -293,12 +294,12 @@ func TestFiles(t *testing.T) {
 	if len(b.Records) != 200 || len(c.Records) != 8 || b.Id != "F5-1" || c.Id != "F5-2" {
 		t.Error(len(b.Records), len(c.Records), b.Id, c.Id)
 	}
-	var none *Host
+	var none *acquirer.Host
 	ref, _, e := none.Purchase(0, buy(1))
 	if x, f := none.Batch(0); ref != "" || e != api.ErrNone || x.Id != "" || f != e || none.Receive(0, api.Message{}) != e || none.Cancel(0, "") != e || none.Capture(0, "", 1, true) != e || none.Refund(0, "", 1) != e || none.Resubmit("", "", "") != e || len(none.Poll(0)) != 0 || len(none.Sales()) != 0 {
 		t.Error("nil host")
 	}
-	if s, ok := none.Sale(""); ok || s != (Sale{}) {
+	if s, ok := none.Sale(""); ok || s != (acquirer.Sale{}) {
 		t.Error(s)
 	}
 	next(t, none, 0, false)

@@ -1,9 +1,10 @@
-package adjust
+package adjust_test
 
 import (
 	"math"
 	"testing"
 
+	"cardnet/adjust"
 	"cardnet/api"
 )
 
@@ -17,7 +18,7 @@ func disputed() api.Case { return api.Case{Id: "d", Record: "p", Amount: eur(600
 
 func TestHolder(t *testing.T) {
 	for stage, want := range map[int]int{-1: 0, 0: 2, 1: 1, 2: 2, 3: 2, 4: 2, 5: 1, 6: 2, 7: 0} {
-		if n := Holder(stage); n != want {
+		if n := adjust.Holder(stage); n != want {
 			t.Error(stage, n)
 		}
 	}
@@ -36,7 +37,7 @@ func TestMove(t *testing.T) {
 	}{
 		{0, 1, 1, moved(api.RcChargeback, 1), true}, {1, 2, 2, moved(api.RcRepresent, 2), true}, {2, 3, 3, api.Record{}, false}, {1, 5, 2, api.Record{}, false}, {3, 5, 3, moved(api.RcChargeback, 3), true}, {3, 4, 3, api.Record{}, false}, {4, 5, 3, moved(api.RcChargeback, 3), true}, {4, 6, 3, api.Record{}, false}, {2, 6, 3, api.Record{}, false},
 	} {
-		if r, ok, e := Move(disputed(), present(), c.from, c.to, 20, c.n); r != c.want || ok != c.ok || e != api.OK {
+		if r, ok, e := adjust.Move(disputed(), present(), c.from, c.to, 20, c.n); r != c.want || ok != c.ok || e != api.OK {
 			t.Error(i, r, ok, e)
 		}
 	}
@@ -52,7 +53,7 @@ func TestMove(t *testing.T) {
 	} {
 		x, r := disputed(), present()
 		c.change(&x, &r)
-		if m, ok, e := Move(x, r, c.from, c.to, c.date, c.n); m != (api.Record{}) || ok || e != c.want {
+		if m, ok, e := adjust.Move(x, r, c.from, c.to, c.date, c.n); m != (api.Record{}) || ok || e != c.want {
 			t.Error(i, m, ok, e)
 		}
 	}
@@ -66,8 +67,8 @@ func TestMoves(t *testing.T) {
 	}{
 		{nil, nil, 0}, {[]int{1}, []int{3}, 600}, {[]int{1, 2, 3, 5}, []int{3, 4, 3}, 600}, {[]int{1, 2, 3, 4, 6}, []int{3, 4}, 0}, {[]int{1, 5}, []int{3}, 600}, {[]int{1, 2, 6}, []int{3, 4}, 0}, {[]int{1, 2, 3, 4, 5}, []int{3, 4, 3}, 600},
 	} {
-		l, e := Moves(disputed(), present(), c.stages, 20)
-		if len(l) != len(c.kinds) || e != api.OK || Net(l) != c.net {
+		l, e := adjust.Moves(disputed(), present(), c.stages, 20)
+		if len(l) != len(c.kinds) || e != api.OK || adjust.Net(l) != c.net {
 			t.Error(i, l, e)
 			continue
 		}
@@ -79,25 +80,25 @@ func TestMoves(t *testing.T) {
 		x := disputed()
 		for stage := -1; stage <= 7; stage++ {
 			x.Stage = stage
-			want := Holder(stage) == 2 && c.net == 0 || Holder(stage) == 1 && c.net == 600
-			if Final(x, l) != want {
+			want := adjust.Holder(stage) == 2 && c.net == 0 || adjust.Holder(stage) == 1 && c.net == 600
+			if adjust.Final(x, l) != want {
 				t.Error(i, stage)
 			}
 		}
 	}
 	for i, stages := range [][]int{{2}, {1, 3}, {1, 2, 3, 4, 6, 1}} {
-		if l, e := Moves(disputed(), present(), stages, 20); len(l) != 0 || e != api.ErrState {
+		if l, e := adjust.Moves(disputed(), present(), stages, 20); len(l) != 0 || e != api.ErrState {
 			t.Error(i, l, e)
 		}
 	}
-	if l, e := Moves(disputed(), present(), []int{1, 9}, 20); len(l) != 0 || e != api.ErrRange {
+	if l, e := adjust.Moves(disputed(), present(), []int{1, 9}, 20); len(l) != 0 || e != api.ErrRange {
 		t.Error(l, e)
 	}
 }
 
 func TestNetFinal(t *testing.T) {
 	r := func(kind int, n int64) api.Record { return api.Record{Kind: kind, Amount: eur(n)} }
-	if n := Net([]api.Record{r(3, 5), r(4, 2), r(1, 99), r(2, 99), r(3, 0), r(4, -1), r(3, api.MaxAmount+1), r(3, math.MinInt64), r(9, 4)}); n != 3 {
+	if n := adjust.Net([]api.Record{r(3, 5), r(4, 2), r(1, 99), r(2, 99), r(3, 0), r(4, -1), r(3, api.MaxAmount+1), r(3, math.MinInt64), r(9, 4)}); n != 3 {
 		t.Error(n)
 	}
 	c := disputed()
@@ -106,7 +107,7 @@ func TestNetFinal(t *testing.T) {
 		l    []api.Record
 		want bool
 	}{{[]api.Record{r(3, 600)}, true}, {[]api.Record{r(3, 599)}, false}, {[]api.Record{r(4, 600)}, false}, {[]api.Record{r(3, 600), r(3, 600)}, false}, {[]api.Record{r(3, 600), r(4, 600)}, false}, {[]api.Record{r(3, 600), r(4, 600), r(3, 600)}, true}, {nil, false}, {[]api.Record{{Kind: 3, Amount: api.Money{Amount: 600, Currency: "USD"}}}, false}} {
-		if Final(c, x.l) != x.want {
+		if adjust.Final(c, x.l) != x.want {
 			t.Error(i)
 		}
 	}

@@ -1,4 +1,4 @@
-package audit
+package audit_test
 
 import (
 	"math/rand"
@@ -7,6 +7,7 @@ import (
 
 	"cardnet/api"
 	"cardnet/assess"
+	"cardnet/audit"
 	"cardnet/auth"
 	"cardnet/feetext"
 	"cardnet/matching"
@@ -25,16 +26,16 @@ func TestCharges(t *testing.T) {
 	usd.Amount.Currency = "USD"
 	for i, x := range []struct {
 		l                []api.Event
-		charges, credits []Finding
+		charges, credits []audit.Finding
 	}{
-		{nil, nil, nil}, {[]api.Event{event(p, "a", 100), event(p, "b", 5), event(p, "a", 70), event(p, "a", 9)}, []Finding{{1, "a", 70}, {1, "a", 9}}, nil}, {[]api.Event{event(p, "a", 100), event(c, "a", 101)}, nil, []Finding{{2, "a", 101}}}, {[]api.Event{event(p, "a", 100), event(c, "a", 100), event(c, "a", 7)}, nil, []Finding{{3, "a", 7}}},
-		{[]api.Event{event(c, "a", 5), event(c, "a", 6), event(p, "a", 9)}, nil, []Finding{{2, "a", 5}, {3, "a", 6}, {2, "a", 6}}}, {[]api.Event{event(p, "a", 5), usd}, nil, []Finding{{2, "a", 5}}}, {[]api.Event{event(p, "a", -5), event(c, "a", -5), event(p, "b", -5), event(c, "b", -6), event(p, "d", -5), event(c, "d", 3)}, nil, []Finding{{2, "b", -6}}},
-		{[]api.Event{event(p, "a", 5), event(p, "a", 9), event(c, "a", 7)}, []Finding{{1, "a", 9}}, []Finding{{2, "a", 7}}}, {[]api.Event{event(p, "a", 5), event(c, "a", -7)}, nil, nil}, {[]api.Event{event(api.EvApproved, "a", 5), event(api.EvApproved, "a", 5)}, nil, nil},
+		{nil, nil, nil}, {[]api.Event{event(p, "a", 100), event(p, "b", 5), event(p, "a", 70), event(p, "a", 9)}, []audit.Finding{{1, "a", 70}, {1, "a", 9}}, nil}, {[]api.Event{event(p, "a", 100), event(c, "a", 101)}, nil, []audit.Finding{{2, "a", 101}}}, {[]api.Event{event(p, "a", 100), event(c, "a", 100), event(c, "a", 7)}, nil, []audit.Finding{{3, "a", 7}}},
+		{[]api.Event{event(c, "a", 5), event(c, "a", 6), event(p, "a", 9)}, nil, []audit.Finding{{2, "a", 5}, {3, "a", 6}, {2, "a", 6}}}, {[]api.Event{event(p, "a", 5), usd}, nil, []audit.Finding{{2, "a", 5}}}, {[]api.Event{event(p, "a", -5), event(c, "a", -5), event(p, "b", -5), event(c, "b", -6), event(p, "d", -5), event(c, "d", 3)}, nil, []audit.Finding{{2, "b", -6}}},
+		{[]api.Event{event(p, "a", 5), event(p, "a", 9), event(c, "a", 7)}, []audit.Finding{{1, "a", 9}}, []audit.Finding{{2, "a", 7}}}, {[]api.Event{event(p, "a", 5), event(c, "a", -7)}, nil, nil}, {[]api.Event{event(api.EvApproved, "a", 5), event(api.EvApproved, "a", 5)}, nil, nil},
 	} {
-		if l := Charges(x.l); !slices.Equal(l, x.charges) {
+		if l := audit.Charges(x.l); !slices.Equal(l, x.charges) {
 			t.Error(i, l)
 		}
-		if l := Credits(x.l); !slices.Equal(l, x.credits) {
+		if l := audit.Credits(x.l); !slices.Equal(l, x.credits) {
 			t.Error(i, l)
 		}
 	}
@@ -47,28 +48,28 @@ func TestAuthsZero(t *testing.T) {
 	bad := a
 	bad.Approved = 0
 	l := []api.Auth{a, part, ended, bad}
-	if f := Auths(l, 90); !slices.Equal(f, []Finding{{5, "a", 500}, {5, "a", 400}, {4, "a", 0}}) {
+	if f := audit.Auths(l, 90); !slices.Equal(f, []audit.Finding{{5, "a", 500}, {5, "a", 400}, {4, "a", 0}}) {
 		t.Error(f)
 	}
-	if f := Auths(l, 89); !slices.Equal(f, []Finding{{4, "a", 0}}) {
+	if f := audit.Auths(l, 89); !slices.Equal(f, []audit.Finding{{4, "a", 0}}) {
 		t.Error(f)
 	}
 	pos := func(n int64, currency string) api.Position {
 		return api.Position{Net: api.Money{Amount: n, Currency: currency}}
 	}
-	if f := Zero([]api.Position{pos(5, "USD"), pos(5, "EUR"), pos(-4, "EUR"), pos(7, "CHF"), pos(-7, "CHF")}); !slices.Equal(f, []Finding{{6, "EUR", 1}, {6, "USD", 5}}) {
+	if f := audit.Zero([]api.Position{pos(5, "USD"), pos(5, "EUR"), pos(-4, "EUR"), pos(7, "CHF"), pos(-7, "CHF")}); !slices.Equal(f, []audit.Finding{{6, "EUR", 1}, {6, "USD", 5}}) {
 		t.Error(f)
 	}
-	if f := Zero(slices.Repeat([]api.Position{pos(api.MaxTotal, "EUR")}, 1000)); !slices.Equal(f, []Finding{{6, "EUR", 1000 * api.MaxTotal}}) {
+	if f := audit.Zero(slices.Repeat([]api.Position{pos(api.MaxTotal, "EUR")}, 1000)); !slices.Equal(f, []audit.Finding{{6, "EUR", 1000 * api.MaxTotal}}) {
 		t.Error(f)
 	}
 	for kind, want := range []string{"", "twice", "credit", "recredit", "broken", "overdue", "unbalanced", "money", "disagree", ""} {
-		if Name(kind) != want {
+		if audit.Name(kind) != want {
 			t.Error(kind)
 		}
 	}
-	if Name(-1) != "" {
-		t.Error(Name(-1))
+	if audit.Name(-1) != "" {
+		t.Error(audit.Name(-1))
 	}
 }
 
@@ -93,29 +94,29 @@ func setup() paynet.Setup {
 func TestPlay(t *testing.T) {
 	n, _ := paynet.New(setup())
 	for i, c := range []struct {
-		s    Step
+		s    audit.Step
 		want api.Errno
 	}{
-		{Step{Kind: 0}, api.ErrRange}, {Step{Kind: 10, B: -1}, api.ErrRange}, {Step{Kind: 1, B: -1}, api.ErrNone}, {Step{Kind: 1, B: 3}, api.ErrNone}, {Step{Kind: 1, B: 16}, api.ErrNone}, {Step{Kind: 1, A: 2, Amount: 5, Text: "m"}, api.ErrNone}, {Step{Kind: 1, A: -1, Amount: 5, Text: "m"}, api.ErrNone}, {Step{Kind: 1, Amount: 0, Text: "m"}, api.ErrRange}, {Step{Kind: 1, A: 1, B: 9, Amount: 3500, Text: "m-1", Final: true}, 0},
-		{Step{Kind: 5, A: -1}, api.ErrTime}, {Step{Kind: 5, A: 8640001}, api.ErrTime}, {Step{Kind: 5, A: 20}, 0}, {Step{Kind: 2, A: 1}, api.ErrNone}, {Step{Kind: 3, A: -1}, api.ErrNone}, {Step{Kind: 4, A: 1}, api.ErrNone}, {Step{Kind: 3, A: 0, Final: true}, 0}, {Step{Kind: 2, A: 0}, api.ErrState}, {Step{Kind: 4, A: 0, Amount: 5}, 0}, {Step{Kind: 4, A: 0, Amount: 9000}, api.ErrRange}, {Step{Kind: 6}, 0},
-		{Step{Kind: 7, A: 0}, 0}, {Step{Kind: 7, A: 0}, api.ErrClosed}, {Step{Kind: 8, A: 5, Text: "fraud"}, api.ErrNone}, {Step{Kind: 8, A: 0, Amount: 9, Text: ""}, api.ErrNone}, {Step{Kind: 8, A: 0, Amount: 9, Text: "fraud"}, api.ErrEvidence}, {Step{Kind: 8, A: 0, Amount: 9, Text: "fraud letter "}, api.ErrEvidence}, {Step{Kind: 8, A: 0, Amount: 9, Text: "fraud letter x"}, 0}, {Step{Kind: 9, A: 1, B: 1}, api.ErrNone}, {Step{Kind: 9, A: 0, B: 1, Text: "receipt"}, 0}, {Step{Kind: 9, A: 0, B: 4}, 0},
+		{audit.Step{Kind: 0}, api.ErrRange}, {audit.Step{Kind: 10, B: -1}, api.ErrRange}, {audit.Step{Kind: 1, B: -1}, api.ErrNone}, {audit.Step{Kind: 1, B: 3}, api.ErrNone}, {audit.Step{Kind: 1, B: 16}, api.ErrNone}, {audit.Step{Kind: 1, A: 2, Amount: 5, Text: "m"}, api.ErrNone}, {audit.Step{Kind: 1, A: -1, Amount: 5, Text: "m"}, api.ErrNone}, {audit.Step{Kind: 1, Amount: 0, Text: "m"}, api.ErrRange}, {audit.Step{Kind: 1, A: 1, B: 9, Amount: 3500, Text: "m-1", Final: true}, 0},
+		{audit.Step{Kind: 5, A: -1}, api.ErrTime}, {audit.Step{Kind: 5, A: 8640001}, api.ErrTime}, {audit.Step{Kind: 5, A: 20}, 0}, {audit.Step{Kind: 2, A: 1}, api.ErrNone}, {audit.Step{Kind: 3, A: -1}, api.ErrNone}, {audit.Step{Kind: 4, A: 1}, api.ErrNone}, {audit.Step{Kind: 3, A: 0, Final: true}, 0}, {audit.Step{Kind: 2, A: 0}, api.ErrState}, {audit.Step{Kind: 4, A: 0, Amount: 5}, 0}, {audit.Step{Kind: 4, A: 0, Amount: 9000}, api.ErrRange}, {audit.Step{Kind: 6}, 0},
+		{audit.Step{Kind: 7, A: 0}, 0}, {audit.Step{Kind: 7, A: 0}, api.ErrClosed}, {audit.Step{Kind: 8, A: 5, Text: "fraud"}, api.ErrNone}, {audit.Step{Kind: 8, A: 0, Amount: 9, Text: ""}, api.ErrNone}, {audit.Step{Kind: 8, A: 0, Amount: 9, Text: "fraud"}, api.ErrEvidence}, {audit.Step{Kind: 8, A: 0, Amount: 9, Text: "fraud letter "}, api.ErrEvidence}, {audit.Step{Kind: 8, A: 0, Amount: 9, Text: "fraud letter x"}, 0}, {audit.Step{Kind: 9, A: 1, B: 1}, api.ErrNone}, {audit.Step{Kind: 9, A: 0, B: 1, Text: "receipt"}, 0}, {audit.Step{Kind: 9, A: 0, B: 4}, 0},
 	} {
-		if e := Play(n, c.s); e != c.want {
+		if e := audit.Play(n, c.s); e != c.want {
 			t.Error(i, e)
 		}
 	}
 	if s := n.Sales()[0]; s.Approved != 3000 || s.Purchase.Least != 1 || s.Purchase.Merchant != "m-1" || s.Purchase.Terminal != "t1" || s.Purchase.Category != 5411 || s.Captured != 3000 || s.Refunded != 5 {
 		t.Error(s)
 	}
-	if e := Play(nil, Step{Kind: 99}); e != api.ErrNone {
+	if e := audit.Play(nil, audit.Step{Kind: 99}); e != api.ErrNone {
 		t.Error(e)
 	}
 }
 
 // randomStep returns a step that often is possible.
-func randomStep(r *rand.Rand, sales int) Step {
+func randomStep(r *rand.Rand, sales int) audit.Step {
 	amounts := []int64{0, 1, 200, 299, 900, 1000, 2500, 4000}
-	s := Step{A: r.Intn(sales + 1), B: r.Intn(3) + 8*r.Intn(2), Amount: amounts[r.Intn(len(amounts))], Final: r.Intn(2) == 0}
+	s := audit.Step{A: r.Intn(sales + 1), B: r.Intn(3) + 8*r.Intn(2), Amount: amounts[r.Intn(len(amounts))], Final: r.Intn(2) == 0}
 	switch k := r.Intn(20); {
 	case k < 5:
 		s.Kind, s.A, s.Text = 1, r.Intn(2), "m"
@@ -161,17 +162,17 @@ func TestRun(t *testing.T) {
 		r := rand.New(rand.NewSource(int64(seed)))
 		s := setup()
 		s.Faults = randomFaults(r)
-		var l []Step
+		var l []audit.Step
 		for i := range 60 {
 			l = append(l, randomStep(r, i/3))
 		}
-		l = append(l, Step{Kind: 5, A: 2000})
-		if f, e := Run(s, l); len(f) != 0 || e != api.OK {
+		l = append(l, audit.Step{Kind: 5, A: 2000})
+		if f, e := audit.Run(s, l); len(f) != 0 || e != api.OK {
 			t.Error(seed, f, e)
 		}
 		n, _ := paynet.New(s)
 		for _, x := range l {
-			Play(n, x)
+			audit.Play(n, x)
 		}
 		if n.Quiet() {
 			quiet++
@@ -182,33 +183,30 @@ func TestRun(t *testing.T) {
 	}
 	s := setup()
 	s.Banks = nil
-	if f, e := Run(s, nil); len(f) != 0 || e != api.ErrRange {
+	if f, e := audit.Run(s, nil); len(f) != 0 || e != api.ErrRange {
 		t.Error(f, e)
 	}
 }
 
-// TestFindings examines a network as if it had begun with more money.
-func TestFindings(t *testing.T) {
-	n, _ := paynet.New(setup())
-	x := examination{n, n.Total() + 7}
-	if f := x.money(); !slices.Equal(f, []Finding{{7, "", -7}}) {
-		t.Error(f)
+// TestDisagreement fills an account with holds, so that the advice about a stand-in approval is refused.
+func TestDisagreement(t *testing.T) {
+	s := setup()
+	s.Faults = []api.Fault{{Kind: api.FCut, A: 0, B: 1, From: 5000, Until: 5100}}
+	var l []audit.Step
+	for range 64 {
+		l = append(l, audit.Step{Kind: 1, Amount: 1, Text: "m"}, audit.Step{Kind: 5, A: 20})
 	}
-	Play(n, Step{Kind: 1, Amount: 100, Text: "m"})
-	Play(n, Step{Kind: 5, A: 20})
-	s := n.Sales()[0]
-	if !x.agrees(s) || len(x.agreement()) != 0 {
-		t.Error(s)
+	l = append(l, audit.Step{Kind: 5, A: 5010 - 64*20}, audit.Step{Kind: 1, Amount: 7, Text: "m"}, audit.Step{Kind: 5, A: 40})
+	if f, e := audit.Run(s, l); len(f) != 0 || e != api.OK {
+		t.Error("not quiet", f, e)
 	}
-	more, gone, unknown := s, s, s
-	more.Approved++
-	gone.State = reversed
-	unknown.Ref = "000000000009"
-	if x.agrees(more) || x.agrees(gone) || x.agrees(unknown) {
-		t.Error("disagreements")
+	l = append(l, audit.Step{Kind: 5, A: 1000})
+	if f, e := audit.Run(s, l); !slices.Equal(f, []audit.Finding{{Kind: 8, Ref: "000000000065", Amount: 7}}) || e != api.OK {
+		t.Error(f, e)
 	}
-	unknown.State = declined
-	if !x.agrees(unknown) {
-		t.Error("a declined sale needs no authorization")
+	// A purchase that the issuer has declined needs no authorization.
+	l = append(l[:128:128], audit.Step{Kind: 1, Amount: 7, Text: "m"}, audit.Step{Kind: 5, A: 1000})
+	if f, e := audit.Run(s, l); len(f) != 0 || e != api.OK {
+		t.Error(f, e)
 	}
 }

@@ -1,14 +1,15 @@
-package auth
+package auth_test
 
 import (
 	"math"
 	"testing"
 
 	"cardnet/api"
+	"cardnet/auth"
 )
 
 func thousand(t *testing.T) api.Auth {
-	a, e := New("a", "EUR", 1000, 50, 90)
+	a, e := auth.New("a", "EUR", 1000, 50, 90)
 	if e != api.OK || a != (api.Auth{Id: "a", Currency: "EUR", Approved: 1000, State: api.AuthOpen, At: 50, Until: 90}) {
 		t.Fatal(a, e)
 	}
@@ -25,7 +26,7 @@ func TestNew(t *testing.T) {
 		{"a-1", "EUR", api.MaxAmount, 0, api.MaxTime, 0}, {"a b", "", 0, 0, 0, api.ErrName}, {"a", "eur", 0, 0, 0, api.ErrCurrency}, {"a", "EUR", 0, -1, 0, api.ErrRange}, {"a", "EUR", api.MaxAmount + 1, 0, 1, api.ErrRange},
 		{"a", "EUR", 1, -1, 1, api.ErrTime}, {"a", "EUR", 1, 5, 5, api.ErrTime}, {"a", "EUR", 1, 5, api.MaxTime + 1, api.ErrTime}, {"a", "EUR", 1, api.MaxTime, api.MaxTime + 1, api.ErrTime}, {"a", "EUR", 1, math.MaxInt, math.MinInt, api.ErrTime},
 	} {
-		if a, e := New(c.id, c.currency, c.amount, c.at, c.until); e != c.want || e != api.OK && a != (api.Auth{}) {
+		if a, e := auth.New(c.id, c.currency, c.amount, c.at, c.until); e != c.want || e != api.OK && a != (api.Auth{}) {
 			t.Error(i, a, e)
 		}
 	}
@@ -44,23 +45,23 @@ func TestCheck(t *testing.T) {
 	} {
 		a := thousand(t)
 		c.change(&a)
-		if e := Check(a); e != c.want {
+		if e := auth.Check(a); e != c.want {
 			t.Error(i, e)
 		}
-		s := Encode(a)
-		if (s == "") != (c.want != api.OK) || c.want != api.OK && Open(a) != 0 {
-			t.Error(i, s, Open(a))
+		s := auth.Encode(a)
+		if (s == "") != (c.want != api.OK) || c.want != api.OK && auth.Open(a) != 0 {
+			t.Error(i, s, auth.Open(a))
 		}
-		if x, e := Decode(s); c.want == api.OK && (x != a || e != api.OK) {
+		if x, e := auth.Decode(s); c.want == api.OK && (x != a || e != api.OK) {
 			t.Error(i, x, e)
 		}
 		if c.want == api.OK {
 			continue
 		}
-		_, e1 := Raise(a, 0, 0)
-		_, _, e2 := Reverse(a, -1)
-		_, _, _, e3 := Clear(a, 0, false)
-		_, _, e4 := Expire(a, 0)
+		_, e1 := auth.Raise(a, 0, 0)
+		_, _, e2 := auth.Reverse(a, -1)
+		_, _, _, e3 := auth.Clear(a, 0, false)
+		_, _, e4 := auth.Expire(a, 0)
 		if e1 != c.want || e2 != c.want || e3 != c.want || e4 != c.want {
 			t.Error(i, e1, e2, e3, e4)
 		}
@@ -69,7 +70,7 @@ func TestCheck(t *testing.T) {
 
 func TestRaise(t *testing.T) {
 	a := thousand(t)
-	if x, e := Raise(a, 5, 91); x.Approved != 1005 || x.Until != 91 || Check(x) != api.OK || e != api.OK {
+	if x, e := auth.Raise(a, 5, 91); x.Approved != 1005 || x.Until != 91 || auth.Check(x) != api.OK || e != api.OK {
 		t.Error(x, e)
 	}
 	for i, c := range []struct {
@@ -77,7 +78,7 @@ func TestRaise(t *testing.T) {
 		until  int
 		want   api.Errno
 	}{{0, 0, api.ErrRange}, {api.MaxAmount, 0, api.ErrRange}, {math.MaxInt64, 90, api.ErrRange}, {1, 89, api.ErrTime}, {1, api.MaxTime + 1, api.ErrTime}, {api.MaxAmount - 1000, 90, 0}, {api.MaxAmount - 999, 90, api.ErrRange}} {
-		if x, e := Raise(a, c.amount, c.until); e != c.want || e != api.OK && x != (api.Auth{}) {
+		if x, e := auth.Raise(a, c.amount, c.until); e != c.want || e != api.OK && x != (api.Auth{}) {
 			t.Error(i, x, e)
 		}
 	}
@@ -85,23 +86,23 @@ func TestRaise(t *testing.T) {
 
 func TestReverse(t *testing.T) {
 	a := thousand(t)
-	x, n, e := Reverse(a, 400)
-	if n != 400 || x.Reversed != 400 || x.State != api.AuthOpen || Open(x) != 600 || e != api.OK {
+	x, n, e := auth.Reverse(a, 400)
+	if n != 400 || x.Reversed != 400 || x.State != api.AuthOpen || auth.Open(x) != 600 || e != api.OK {
 		t.Error(x, n, e)
 	}
 	for _, amount := range []int64{-1, 601} {
-		if y, n, e := Reverse(x, amount); y != (api.Auth{}) || n != 0 || e != api.ErrRange {
+		if y, n, e := auth.Reverse(x, amount); y != (api.Auth{}) || n != 0 || e != api.ErrRange {
 			t.Error(y, n, e)
 		}
 	}
-	x, n, e = Reverse(x, 0)
-	if n != 600 || x.State != api.AuthReversed || Open(x) != 0 || Check(x) != api.OK || e != api.OK {
+	x, n, e = auth.Reverse(x, 0)
+	if n != 600 || x.State != api.AuthReversed || auth.Open(x) != 0 || auth.Check(x) != api.OK || e != api.OK {
 		t.Error(x, n, e)
 	}
-	_, e1 := Raise(x, 1, 90)
-	_, _, e2 := Reverse(x, -1)
-	_, _, _, e3 := Clear(x, 0, false)
-	_, _, e4 := Expire(x, 0)
+	_, e1 := auth.Raise(x, 1, 90)
+	_, _, e2 := auth.Reverse(x, -1)
+	_, _, _, e3 := auth.Clear(x, 0, false)
+	_, _, e4 := auth.Expire(x, 0)
 	if e1 != api.ErrState || e2 != e1 || e3 != e1 || e4 != e1 {
 		t.Error(e1, e2, e3, e4)
 	}
@@ -110,8 +111,8 @@ func TestReverse(t *testing.T) {
 func TestClear(t *testing.T) {
 	clear := func(a api.Auth, amount int64, final bool, used, released int64, state, parts int) api.Auth {
 		t.Helper()
-		x, u, r, e := Clear(a, amount, final)
-		if u != used || r != released || x.State != state || x.Parts != parts || Check(x) != api.OK || e != api.OK || Open(a)-Open(x) != u+r {
+		x, u, r, e := auth.Clear(a, amount, final)
+		if u != used || r != released || x.State != state || x.Parts != parts || auth.Check(x) != api.OK || e != api.OK || auth.Open(a)-auth.Open(x) != u+r {
 			t.Error(x, u, r, e)
 		}
 		return x
@@ -125,38 +126,38 @@ func TestClear(t *testing.T) {
 		t.Error(y)
 	}
 	for _, amount := range []int64{0, -1, api.MaxAmount + 1} {
-		if x, u, r, e := Clear(a, amount, true); x != (api.Auth{}) || u != 0 || r != 0 || e != api.ErrRange {
+		if x, u, r, e := auth.Clear(a, amount, true); x != (api.Auth{}) || u != 0 || r != 0 || e != api.ErrRange {
 			t.Error(x, u, r, e)
 		}
 	}
 	for i := range 8 {
 		a = clear(a, 1, false, 1, 0, api.AuthOpen, i+1)
 	}
-	if x, u, r, e := Clear(a, 1, true); x != (api.Auth{}) || u != 0 || r != 0 || e != api.ErrLimit {
+	if x, u, r, e := auth.Clear(a, 1, true); x != (api.Auth{}) || u != 0 || r != 0 || e != api.ErrLimit {
 		t.Error(x, u, r, e)
 	}
 }
 
 func TestExpire(t *testing.T) {
 	a := thousand(t)
-	a, _, _, _ = Clear(a, 400, false)
-	if x, n, e := Expire(a, 89); x != (api.Auth{}) || n != 0 || e != api.ErrTime {
+	a, _, _, _ = auth.Clear(a, 400, false)
+	if x, n, e := auth.Expire(a, 89); x != (api.Auth{}) || n != 0 || e != api.ErrTime {
 		t.Error(x, n, e)
 	}
-	if x, n, e := Expire(a, 90); n != 600 || x.State != api.AuthExpired || x.Expired != 600 || Check(x) != api.OK || e != api.OK {
+	if x, n, e := auth.Expire(a, 90); n != 600 || x.State != api.AuthExpired || x.Expired != 600 || auth.Check(x) != api.OK || e != api.OK {
 		t.Error(x, n, e)
 	}
 }
 
 func TestText(t *testing.T) {
 	for n, want := range map[int]string{1: "open", 2: "cleared", 3: "reversed", 4: "expired", 0: "", 5: "", -1: ""} {
-		if Name(n) != want {
-			t.Error(n, Name(n))
+		if auth.Name(n) != want {
+			t.Error(n, auth.Name(n))
 		}
 	}
 	const text = "000001000007/EUR/1000/0/400/0/50/90/1"
-	a, e := Decode(text)
-	if a != (api.Auth{Id: "000001000007", Currency: "EUR", Approved: 1000, Cleared: 400, State: api.AuthOpen, At: 50, Until: 90, Parts: 1}) || e != api.OK || Encode(a) != text {
+	a, e := auth.Decode(text)
+	if a != (api.Auth{Id: "000001000007", Currency: "EUR", Approved: 1000, Cleared: 400, State: api.AuthOpen, At: 50, Until: 90, Parts: 1}) || e != api.OK || auth.Encode(a) != text {
 		t.Error(a, e)
 	}
 	for s, want := range map[string]api.Errno{
@@ -164,7 +165,7 @@ func TestText(t *testing.T) {
 		"/eur/1000/0/0/0/50/90/0": api.ErrName, "a/eur/0/0/0/0/50/90/0": api.ErrCurrency, "a/EUR/0/0/0/0/50/90/0": api.ErrRange, "a/EUR/1/-1/0/0/50/90/0": api.ErrRange, "a/EUR/1/2/0/0/50/90/0": api.ErrBalance, "a/EUR/1/1/0/0/50/50/0": api.ErrTime, "a/EUR/1/1/0/0/50/51/1": api.ErrRange,
 		"a/EUR/2/0/0/1/50/51/0": api.ErrState, "a/EUR/9223372036854775807/-9223372036854775808/0/0/50/51/0": api.ErrRange,
 	} {
-		if a, e := Decode(s); a != (api.Auth{}) || e != want {
+		if a, e := auth.Decode(s); a != (api.Auth{}) || e != want {
 			t.Error(s, a, e)
 		}
 	}

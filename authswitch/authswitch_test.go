@@ -1,10 +1,11 @@
-package authswitch
+package authswitch_test
 
 import (
 	"strconv"
 	"testing"
 
 	"cardnet/api"
+	"cardnet/authswitch"
 	"cardnet/message"
 	"cardnet/plain"
 	"cardnet/route"
@@ -18,8 +19,8 @@ const r1, r2 = "000203000001", "000203000002"
 var ranges = []api.Range{{Low: "400000", High: "400999", Issuer: "homebank", Product: "gold"}}
 var limits = []standin.Limit{{Issuer: "homebank", Each: 1000, Day: 5000, Count: 5}}
 
-func start(t *testing.T, b ...route.Backup) *Switch {
-	s, e := New(ranges, b, limits, 30, 60)
+func start(t *testing.T, b ...route.Backup) *authswitch.Switch {
+	s, e := authswitch.New(ranges, b, limits, 30, 60)
 	if e != api.OK {
 		t.Fatal(e)
 	}
@@ -53,8 +54,13 @@ func answer(m api.Message, code string, parts ...string) api.Message {
 	return with(r, parts...)
 }
 
+func value(m api.Message, n int) string {
+	s, _ := message.Get(m, n)
+	return s
+}
+
 // show returns messages in short: to whom, the type, and the elements 37, 56, 39, 4 and 38.
-func show(out []Out) string {
+func show(out []authswitch.Out) string {
 	s := ""
 	for _, o := range out {
 		if message.Check(o.Message) != api.OK {
@@ -65,7 +71,7 @@ func show(out []Out) string {
 	return s
 }
 
-func handle(t *testing.T, s *Switch, at int, from string, m api.Message, want string) {
+func handle(t *testing.T, s *authswitch.Switch, at int, from string, m api.Message, want string) {
 	t.Helper()
 	out, e := s.Handle(at, from, m)
 	if show(out) != want || e != api.OK {
@@ -73,21 +79,21 @@ func handle(t *testing.T, s *Switch, at int, from string, m api.Message, want st
 	}
 }
 
-func poll(t *testing.T, s *Switch, at int, want string) {
+func poll(t *testing.T, s *authswitch.Switch, at int, want string) {
 	t.Helper()
 	if out := s.Poll(at); show(out) != want {
 		t.Errorf("got  %q\nwant %q", show(out), want)
 	}
 }
 
-func decided(t *testing.T, s *Switch, ref, code string, by int) {
+func decided(t *testing.T, s *authswitch.Switch, ref, code string, by int) {
 	t.Helper()
 	if c, n, ok := s.Decision(ref); c != code || n != by || ok != (by > 0) {
 		t.Error(c, n, ok)
 	}
 }
 
-func next(t *testing.T, s *Switch, want int, found bool, waiting int) {
+func next(t *testing.T, s *authswitch.Switch, want int, found bool, waiting int) {
 	t.Helper()
 	if n, ok := s.Next(); n != want || ok != found || s.Waiting() != waiting {
 		t.Error(n, ok, s.Waiting())
@@ -104,7 +110,7 @@ func TestNew(t *testing.T) {
 	}{
 		{ranges, nil, limits, 1, 1, 0}, {[]api.Range{{}}, nil, []standin.Limit{{}}, 0, 0, api.ErrFormat}, {ranges, []route.Backup{{Issuer: "x", Party: "y"}}, nil, 0, 0, api.ErrNone}, {ranges, nil, []standin.Limit{{}}, 0, 0, api.ErrName}, {ranges, nil, limits, 0, 1, api.ErrRange}, {ranges, nil, limits, 1, 0, api.ErrRange},
 	} {
-		if s, e := New(c.l, c.b, c.s, c.timeout, c.retry); e != c.want || (s == nil) != (e != api.OK) {
+		if s, e := authswitch.New(c.l, c.b, c.s, c.timeout, c.retry); e != c.want || (s == nil) != (e != api.OK) {
 			t.Error(i, e)
 		}
 	}
@@ -237,8 +243,19 @@ func TestReversals(t *testing.T) {
 	handle(t, s, 200, "shopbank", request("000203000004", 1000), "homebank 100 000004  1000 ;")
 	s.Poll(230)
 	handle(t, s, 231, "shopbank", reversal(420, "000203000010", "000203000004"), "shopbank 430 000010000203000004 00 0001 ;")
-	if n, k := s.limits.Used(card, 0); n != 0 || k != 0 {
-		t.Error(n, k)
+	for i := range 6 {
+		// With the one that was given back, these would be one too many.
+		code := "00"
+		if i == 5 {
+			code = "91"
+		}
+		ref := plain.Digits(int64(203000020+i), 12)
+		at := 300 + 40*i
+		if _, e := s.Handle(at, "shopbank", request(ref, 1000)); e != api.OK {
+			t.Error(e)
+		}
+		s.Poll(at + 30)
+		decided(t, s, ref, code, 3)
 	}
 }
 
@@ -268,20 +285,19 @@ func TestTokens(t *testing.T) {
 }
 
 func TestNone(t *testing.T) {
-	var s *Switch
+	var s *authswitch.Switch
 	s.Vault(nil)
 	if out, e := s.Handle(0, "a", request(r1, 1)); len(out) != 0 || e != api.ErrNone || len(s.Poll(0)) != 0 {
 		t.Error(out, e)
 	}
 	next(t, s, 0, false, 0)
 	decided(t, s, r1, "", 0)
-	zero := new(Switch)
+	zero := new(authswitch.Switch)
 	zero.Handle(0, "a", request(r1, 1))
 	zero.Handle(0, "a", reversal(420, r1, r1))
 	zero.Poll(0)
-	out := []Out{}
 	s = start(t)
-	out, _ = s.Handle(0, "a", request(r1, 1))
+	out, _ := s.Handle(0, "a", request(r1, 1))
 	out[0].Message.Elements[0].Value = "changed"
 	if out, _ = s.Handle(1, "homebank", answer(request(r1, 1), "00")); value(out[0].Message, 2) != card {
 		t.Error("shared memory")

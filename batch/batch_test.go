@@ -1,4 +1,4 @@
-package batch
+package batch_test
 
 import (
 	"reflect"
@@ -8,6 +8,8 @@ import (
 	"testing"
 
 	"cardnet/api"
+	"cardnet/batch"
+	"cardnet/checksum"
 )
 
 func rec(id string, kind int, amount int64) api.Record {
@@ -19,15 +21,18 @@ func sample() api.Batch {
 }
 
 // seal completes the header and the record lines of a file with a trailer and its check line.
-func seal(s string) string { return s + "C|" + crcOf(s) + "\n" }
+func seal(s string) string {
+	digits := "0000000" + strconv.FormatUint(uint64(checksum.Crc(s)), 16)
+	return s + "C|" + digits[len(digits)-8:] + "\n"
+}
 
 func TestSum(t *testing.T) {
 	l := []api.Record{rec("a", 1, 100), rec("b", 2, 30), rec("c", 3, 5), rec("d", 4, 7), rec("e", 0, 99), rec("f", 1, -1), rec("g", 1, api.MaxAmount+1), rec("h", 1, api.MaxAmount), {Card: "99x9999999"}}
-	if s := Sum(l); s != (Totals{9, 107 + api.MaxAmount, 35, (77*8 + 9999999) % 100000000}) {
+	if s := batch.Sum(l); s != (batch.Totals{9, 107 + api.MaxAmount, 35, (77*8 + 9999999) % 100000000}) {
 		t.Error(s)
 	}
-	if Sum(nil) != (Totals{}) {
-		t.Error(Sum(nil))
+	if batch.Sum(nil) != (batch.Totals{}) {
+		t.Error(batch.Sum(nil))
 	}
 }
 
@@ -42,11 +47,11 @@ func TestCheck(t *testing.T) {
 	} {
 		b := sample()
 		c.change(&b)
-		s, e := Encode(b)
-		if Check(b) != c.want || e != c.want || (s == "") != (e != api.OK) {
-			t.Error(i, Check(b), e)
+		s, e := batch.Encode(b)
+		if batch.Check(b) != c.want || e != c.want || (s == "") != (e != api.OK) {
+			t.Error(i, batch.Check(b), e)
 		}
-		if x, rejects, e := Decode(s); c.want == api.OK && (x.Id != b.Id || x.Sender != b.Sender || x.Date != b.Date || !slices.Equal(x.Records, b.Records) || len(rejects) != 0 || e != api.OK) {
+		if x, rejects, e := batch.Decode(s); c.want == api.OK && (x.Id != b.Id || x.Sender != b.Sender || x.Date != b.Date || !slices.Equal(x.Records, b.Records) || len(rejects) != 0 || e != api.OK) {
 			t.Error(i, x, rejects, e)
 		}
 	}
@@ -54,20 +59,20 @@ func TestCheck(t *testing.T) {
 
 func TestText(t *testing.T) {
 	b := sample()
-	s, _ := Encode(b)
+	s, _ := batch.Encode(b)
 	lines := "H|F20-1|shop|20\nR|1|a||shop|home|m|4000000000000077|100|EUR|12|5411|0\nR|2|b||shop|home|m|4000000000000077|30|EUR|12|5411|0\nT|2|100|30|154\n"
 	if s != seal(lines) {
 		t.Error(s)
 	}
 	b.Records = nil
-	if s, _ := Encode(b); s != seal("H|F20-1|shop|20\nT|0|0|0|0\n") {
+	if s, _ := batch.Encode(b); s != seal("H|F20-1|shop|20\nT|0|0|0|0\n") {
 		t.Error(s)
 	}
 	// Every changed byte is found.
 	for i := range len(s) {
 		for _, c := range []byte("0a1|\nHRTC\x00") {
 			if x := s[:i] + string(rune(c)) + s[i+1:]; x != s {
-				if b, rejects, e := Decode(x); e == api.OK || b.Id != "" || len(rejects) != 0 {
+				if b, rejects, e := batch.Decode(x); e == api.OK || b.Id != "" || len(rejects) != 0 {
 					t.Error(i, x)
 				}
 			}
@@ -86,7 +91,7 @@ func TestDecodeErrors(t *testing.T) {
 		{"H|a|b|1\nT|0|0|0|0\nC|12345678\n", api.ErrChecksum}, {seal("H|-|-|-1\nT|1|0|0|0\n"), api.ErrChecksum}, {seal("H|a|b|1\nT|0|0|0|-1\n"), api.ErrChecksum}, {seal(long), api.ErrLong}, {seal(strings.Replace(long, "F20-1", "a b", 1)), api.ErrLong}, {seal("H|a b|b|-1\nT|0|0|0|0\n"), api.ErrName}, {seal("H|a|b-c|1\nT|0|0|0|0\n"), api.ErrName}, {seal("H|a|b|-1\nT|0|0|0|0\n"), api.ErrTime}, {seal("H|a|b|100000\nT|0|0|0|0\n"), api.ErrTime},
 		{seal("H|a|b|1\nT|0|0|0|0\n"), 0},
 	} {
-		if b, rejects, e := Decode(c.s); e != c.want || e != api.OK && (b.Id != "" || len(rejects) != 0) {
+		if b, rejects, e := batch.Decode(c.s); e != c.want || e != api.OK && (b.Id != "" || len(rejects) != 0) {
 			t.Error(i, b, rejects, e)
 		}
 	}
@@ -97,7 +102,7 @@ func TestRejects(t *testing.T) {
 	lines := "H|F|shop|20\n" + strings.Replace(good, "77|100", "78|100", 1) + good + strings.Replace(good, "shop", "other", 1) + good + "R|junk\n" + strings.Replace(good, "R|1|a", "R|9|z", 1) + strings.Replace(good, "|100|", "|-5|", 1) + strings.Replace(good, "R|1|a", "R|1|b", 1) + "R|x|y||shop|home|m|4000000000000077|7|EUR|12|5411|0\n"
 	hash := 78 + 77*3 + 77 + 77 + 77
 	s := seal(lines + "T|9|500|0|" + strconv.Itoa(hash) + "\n")
-	b, rejects, e := Decode(s)
+	b, rejects, e := batch.Decode(s)
 	want := []api.Reject{{Index: 0, Id: "a", Code: api.ErrCard}, {Index: 2, Id: "a", Code: api.ErrName}, {Index: 3, Id: "a", Code: api.ErrExists}, {Index: 4, Id: "", Code: api.ErrFormat}, {Index: 5, Id: "z", Code: api.ErrRange}, {Index: 6, Id: "a", Code: api.ErrRange}, {Index: 8, Id: "y", Code: api.ErrFormat}}
 	if e != api.OK || !reflect.DeepEqual(rejects, want) || len(b.Records) != 2 || b.Records[0].Id != "a" || b.Records[1].Id != "b" {
 		t.Error(b, rejects, e)
@@ -108,7 +113,7 @@ func TestMerge(t *testing.T) {
 	a, b := sample(), sample()
 	b.Id = "F20-2"
 	b.Records = []api.Record{rec("c", 1, 5)}
-	m, e := Merge("M", []api.Batch{a, b})
+	m, e := batch.Merge("M", []api.Batch{a, b})
 	if m.Id != "M" || m.Sender != "shop" || m.Date != 20 || len(m.Records) != 3 || m.Records[2].Id != "c" || e != api.OK {
 		t.Error(m, e)
 	}
@@ -130,7 +135,7 @@ func TestMerge(t *testing.T) {
 		{"", nil, api.ErrShort}, {"", []api.Batch{a, other(func(x *api.Batch) { x.Date, x.Sender = -1, "y" })}, api.ErrTime}, {"", []api.Batch{a, other(func(x *api.Batch) { x.Sender, x.Date, x.Records = "y", 21, nil })}, api.ErrName}, {"", []api.Batch{a, other(func(x *api.Batch) { x.Date = 21 })}, api.ErrTime},
 		{"", []api.Batch{a, b}, api.ErrName}, {"M", []api.Batch{a, a}, api.ErrExists},
 	} {
-		if m, e := Merge(c.id, c.l); m.Sender != "" || len(m.Records) != 0 || e != c.want {
+		if m, e := batch.Merge(c.id, c.l); m.Sender != "" || len(m.Records) != 0 || e != c.want {
 			t.Error(i, m, e)
 		}
 	}

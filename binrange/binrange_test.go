@@ -1,4 +1,4 @@
-package binrange
+package binrange_test
 
 import (
 	"slices"
@@ -6,6 +6,7 @@ import (
 	"testing"
 
 	"cardnet/api"
+	"cardnet/binrange"
 	"cardnet/pan"
 )
 
@@ -29,7 +30,7 @@ func TestCheck(t *testing.T) {
 		{[]api.Range{{Low: "4", High: "4", Issuer: "a", Product: ""}}, api.ErrName}, {[]api.Range{{Low: "5", High: "4"}}, api.ErrRange},
 		{[]api.Range{rg("40", "41"), rg("41", "42"), rg("x", "x")}, api.ErrFormat}, {[]api.Range{rg("40", "40"), rg("41", "41"), rg("40", "40")}, api.ErrExists},
 	} {
-		if e := Check(c.l); e != c.want {
+		if e := binrange.Check(c.l); e != c.want {
 			t.Error(i, e)
 		}
 	}
@@ -44,7 +45,7 @@ func TestOverlap(t *testing.T) {
 		{rg("41", "40"), rg("40", "40"), false}, {rg("40", "40"), rg("x", "x"), false}, {rg("", ""), rg("4", "4"), false}, {rg("40", "40"), rg("41", "41"), false}, {rg("4999", "5000"), rg("5", "5"), true},
 		{api.Range{Low: "4", High: "5"}, rg("45", "45"), true},
 	} {
-		if Overlap(c.a, c.b) != c.want || Overlap(c.b, c.a) != c.want {
+		if binrange.Overlap(c.a, c.b) != c.want || binrange.Overlap(c.b, c.a) != c.want {
 			t.Error(i)
 		}
 	}
@@ -54,15 +55,15 @@ func TestFind(t *testing.T) {
 	l := []api.Range{full("4", "4", "bankone", "basic"), full("4000", "4099", "banktwo", "gold"), full("400000", "400999", "three", "x")}
 	for prefix, want := range map[string]string{"4050": "banktwo", "41": "bankone", "400001": "three", "401": "banktwo", "5": "", "3999": ""} {
 		n, _ := pan.Make(prefix, 1, 16)
-		if r, ok := Find(l, n); r.Issuer != want || ok != (want != "") || !ok && r != (api.Range{}) {
+		if r, ok := binrange.Find(l, n); r.Issuer != want || ok != (want != "") || !ok && r != (api.Range{}) {
 			t.Error(prefix, r, ok)
 		}
 	}
 	n, _ := pan.Make("41", 1, 16)
-	if r, ok := Find(l, n[:15]); ok || r != (api.Range{}) {
+	if r, ok := binrange.Find(l, n[:15]); ok || r != (api.Range{}) {
 		t.Error(r)
 	}
-	if r, ok := Find(append(l, rg("9", "8")), n); ok || r != (api.Range{}) {
+	if r, ok := binrange.Find(append(l, rg("9", "8")), n); ok || r != (api.Range{}) {
 		t.Error(r)
 	}
 }
@@ -76,7 +77,7 @@ func TestSortMerge(t *testing.T) {
 		return s
 	}
 	given := []api.Range{rg("4", "4"), rg("40", "41"), rg("40", "4"), rg("39", "39"), rg("", "x"), {Low: "39", High: "39", Product: "b"}, rg("4000", "4"), rg("40", "40")}
-	if s := lows(Sort(given)); s != "39-39gold 39-39b 4000-4gold 40-40gold 40-41gold 40-4gold 4-4gold -xgold " || lows(Sort(Sort(given))) != s || given[0].Low != "4" {
+	if s := lows(binrange.Sort(given)); s != "39-39gold 39-39b 4000-4gold 40-40gold 40-41gold 40-4gold 4-4gold -xgold " || lows(binrange.Sort(binrange.Sort(given))) != s || given[0].Low != "4" {
 		t.Error(s)
 	}
 	for i, c := range []struct {
@@ -88,15 +89,15 @@ func TestSortMerge(t *testing.T) {
 		{[]api.Range{rg("09", "09"), rg("10", "10"), rg("11", "11")}, "09-11gold "}, {[]api.Range{rg("3", "3"), rg("40", "40")}, "3-3gold 40-40gold "}, {nil, ""}, {[]api.Range{rg("40", "40"), rg("42", "42")}, "40-40gold 42-42gold "},
 		{[]api.Range{rg("9999999998", "9999999999"), rg("0", "0")}, "0-0gold 9999999998-9999999999gold "},
 	} {
-		l, e := Merge(c.l)
+		l, e := binrange.Merge(c.l)
 		if lows(l) != c.want || e != api.OK {
 			t.Error(i, l, e)
 		}
-		if again, e := Merge(l); !slices.Equal(again, l) || e != api.OK {
+		if again, e := binrange.Merge(l); !slices.Equal(again, l) || e != api.OK {
 			t.Error(i, again, e)
 		}
 	}
-	if l, e := Merge([]api.Range{rg("40", "40"), rg("40", "40")}); len(l) != 0 || e != api.ErrExists {
+	if l, e := binrange.Merge([]api.Range{rg("40", "40"), rg("40", "40")}); len(l) != 0 || e != api.ErrExists {
 		t.Error(l, e)
 	}
 }
@@ -104,16 +105,16 @@ func TestSortMerge(t *testing.T) {
 func TestText(t *testing.T) {
 	l := []api.Range{full("400000", "400099", "bankone", "gold"), full("007", "008", "A_1", "b")}
 	const text = "400000-400099 bankone gold;\n007-008 A_1 b;\n"
-	if Format(l) != text || Format([]api.Range{rg("5", "4")}) != "" || Format(nil) != "" {
-		t.Error(Format(l))
+	if binrange.Format(l) != text || binrange.Format([]api.Range{rg("5", "4")}) != "" || binrange.Format(nil) != "" {
+		t.Error(binrange.Format(l))
 	}
 	for _, s := range []string{text, "#x;\n 400000\t-\n400099#\nbankone gold;007 -008A_1 b;# end"} {
-		if x, e, at := Parse(s); !slices.Equal(x, l) || e != api.OK || at != 0 {
+		if x, e, at := binrange.Parse(s); !slices.Equal(x, l) || e != api.OK || at != 0 {
 			t.Error(s, x, e, at)
 		}
 	}
 	for _, s := range []string{"", " \n\t#"} {
-		if x, e, at := Parse(s); len(x) != 0 || e != api.OK || at != 0 {
+		if x, e, at := binrange.Parse(s); len(x) != 0 || e != api.OK || at != 0 {
 			t.Error(s, x, e, at)
 		}
 	}
@@ -127,7 +128,7 @@ func TestText(t *testing.T) {
 		{" 41-40 a b;", api.ErrRange, 1}, {"4-4 a b; 400-41 a b;", api.ErrFormat, 9}, {"4-4 a b; 5-5 aaaaaaaaaaaaaaaaa b;", api.ErrName, 9}, {"4-5 a b; 7-7 a b; 5-6 a b;", api.ErrExists, 18},
 		{strings.Repeat("4-4 a b;", 65), api.ErrLong, 512}, {strings.Repeat("4-4 a b;", 64), api.ErrExists, 8}, {"5-4 a b; 4-4 a b x", api.ErrFormat, 17}, {"01234567890-1 a b;", api.ErrFormat, 0},
 	} {
-		if x, e, at := Parse(c.s); len(x) != 0 || e != c.e || at != c.at {
+		if x, e, at := binrange.Parse(c.s); len(x) != 0 || e != c.e || at != c.at {
 			t.Error(c.s, x, e, at)
 		}
 	}

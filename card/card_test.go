@@ -1,16 +1,17 @@
-package card
+package card_test
 
 import (
 	"math"
 	"testing"
 
 	"cardnet/api"
+	"cardnet/card"
 )
 
 const number = "4000000000000077"
 
-func active(t *testing.T, amount int64, count int) *Card {
-	c, e := New(number, 100, amount, count)
+func active(t *testing.T, amount int64, count int) *card.Card {
+	c, e := card.New(number, 100, amount, count)
 	if e != api.OK || c.State() != api.CardIssued || c.Number() != number || c.Expiry() != 100 || c.Do(1) != api.OK {
 		t.Fatal(c, e)
 	}
@@ -29,7 +30,7 @@ func TestNew(t *testing.T) {
 		{number, -1, -1, 0, api.ErrTime}, {number, api.MaxDate + 1, 0, 0, api.ErrTime}, {number, 0, -1, 0, api.ErrRange}, {number, 0, api.MaxAmount + 1, 0, api.ErrRange},
 		{number, 0, 0, -1, api.ErrRange}, {number, 0, 0, 1001, api.ErrRange},
 	} {
-		if x, e := New(c.number, c.expiry, c.amount, c.count); e != c.want || (x == nil) != (e != api.OK) {
+		if x, e := card.New(c.number, c.expiry, c.amount, c.count); e != c.want || (x == nil) != (e != api.OK) {
 			t.Error(i, x, e)
 		}
 	}
@@ -39,7 +40,7 @@ func TestLifeCycle(t *testing.T) {
 	want := map[[2]int]int{{api.CardIssued, 1}: api.CardActive, {api.CardActive, 2}: api.CardBlocked, {api.CardBlocked, 3}: api.CardActive, {api.CardIssued, 4}: api.CardClosed, {api.CardActive, 4}: api.CardClosed, {api.CardBlocked, 4}: api.CardClosed}
 	for state := 0; state <= 5; state++ {
 		for event := 0; event <= 5; event++ {
-			next, e := Next(state, event)
+			next, e := card.Next(state, event)
 			code := api.ErrState
 			if state == 0 || state == 5 || event == 0 || event == 5 {
 				code = api.ErrRange
@@ -74,7 +75,7 @@ func TestUsable(t *testing.T) {
 	if e := c.Usable(-1); e != api.ErrCard || c.Use(5, 1) != api.ErrCard {
 		t.Error(e)
 	}
-	if x, _ := New(number, 100, 1, 1); x.Usable(5) != api.ErrCard {
+	if x, _ := card.New(number, 100, 1, 1); x.Usable(5) != api.ErrCard {
 		t.Error("a card that is not active")
 	}
 }
@@ -127,7 +128,7 @@ func TestUses(t *testing.T) {
 }
 
 func TestNone(t *testing.T) {
-	var c *Card
+	var c *card.Card
 	if c.Do(1) != api.ErrNone || c.Usable(1) != api.ErrNone || c.Use(1, 1) != api.ErrNone || c.Undo(1, 1) != api.ErrNone || c.State() != 0 || c.Number() != "" || c.Expiry() != 0 {
 		t.Error("nil card")
 	}

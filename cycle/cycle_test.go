@@ -1,4 +1,4 @@
-package cycle
+package cycle_test
 
 import (
 	"math"
@@ -7,6 +7,7 @@ import (
 
 	"cardnet/api"
 	"cardnet/calendar"
+	"cardnet/cycle"
 )
 
 const day = 86400
@@ -15,9 +16,9 @@ func eur(n int64) api.Money { return api.Money{Amount: n, Currency: "EUR"} }
 
 func pos(party string, n int64) api.Position { return api.Position{Party: party, Net: eur(n)} }
 
-func start(t *testing.T, holidays ...int) *Cycles {
+func start(t *testing.T, holidays ...int) *cycle.Cycles {
 	k, _ := calendar.New(holidays)
-	c, e := New(k, 3600, []string{"a", "b"})
+	c, e := cycle.New(k, 3600, []string{"a", "b"})
 	if e != api.OK {
 		t.Fatal(e)
 	}
@@ -32,7 +33,7 @@ func TestNew(t *testing.T) {
 		parties []string
 		want    api.Errno
 	}{{k, 0, nil, 0}, {k, 86400, nil, 0}, {nil, -1, []string{""}, api.ErrNone}, {k, -1, []string{""}, api.ErrRange}, {k, 86401, []string{""}, api.ErrRange}, {k, 0, []string{""}, api.ErrName}} {
-		if x, e := New(c.k, c.cutoff, c.parties); e != c.want || (x == nil) != (e != api.OK) {
+		if x, e := cycle.New(c.k, c.cutoff, c.parties); e != c.want || (x == nil) != (e != api.OK) {
 			t.Error(i, e)
 		}
 	}
@@ -130,7 +131,7 @@ func TestSettle(t *testing.T) {
 			t.Error(x, l, e)
 		}
 	}
-	var none *Cycles
+	var none *cycle.Cycles
 	d, e1 := none.Of(0)
 	f, e2 := none.Move(0, "a", "b", eur(1))
 	_, e3 := none.Close(0)
@@ -138,6 +139,6 @@ func TestSettle(t *testing.T) {
 	if d != 0 || f != 0 || e1 != api.ErrNone || e2 != e1 || e3 != e1 || e4 != e1 || none.Closed(0) || len(none.Positions(0)) != 0 || len(none.Open()) != 0 {
 		t.Error("nil cycles")
 	}
-	new(Cycles).Move(0, "a", "b", eur(1))
-	new(Cycles).Close(0)
+	new(cycle.Cycles).Move(0, "a", "b", eur(1))
+	new(cycle.Cycles).Close(0)
 }

@@ -1,4 +1,4 @@
-package disk
+package disk_test
 
 import (
 	"math"
@@ -6,17 +6,18 @@ import (
 	"testing"
 
 	"cardnet/api"
+	"cardnet/disk"
 )
 
-func start(t *testing.T, blocks int) *Disk {
-	d, e := New(blocks)
+func start(t *testing.T, blocks int) *disk.Disk {
+	d, e := disk.New(blocks)
 	if e != api.OK {
 		t.Fatal(e)
 	}
 	return d
 }
 
-func read(t *testing.T, d *Disk, want ...string) {
+func read(t *testing.T, d *disk.Disk, want ...string) {
 	t.Helper()
 	for n, s := range want {
 		if got, e := d.Read(n); got != s || e != api.OK {
@@ -27,7 +28,7 @@ func read(t *testing.T, d *Disk, want ...string) {
 
 func TestWrite(t *testing.T) {
 	for n, want := range map[int]api.Errno{0: api.ErrRange, 1: 0, 4096: 0, 4097: api.ErrRange, -1: api.ErrRange} {
-		if d, e := New(n); e != want || (d == nil) != (e != api.OK) || d.Blocks() != map[bool]int{true: n, false: 0}[e == api.OK] {
+		if d, e := disk.New(n); e != want || (d == nil) != (e != api.OK) || d.Blocks() != map[bool]int{true: n, false: 0}[e == api.OK] {
 			t.Error(n, e)
 		}
 	}
@@ -123,7 +124,7 @@ func TestArm(t *testing.T) {
 	if d.Flush() != api.OK {
 		t.Error("a crash disarms")
 	}
-	var none *Disk
+	var none *disk.Disk
 	if s, e := none.Read(0); s != "" || e != api.ErrNone || none.Write(0, "") != e || none.Flush() != e || none.Crash(0) != e || none.Arm(0, 0) != e || none.Recover() != e || none.Blocks() != 0 || none.Pending() != 0 || none.Down() {
 		t.Error("nil disk")
 	}

@@ -1,4 +1,4 @@
-package dispute
+package dispute_test
 
 import (
 	"slices"
@@ -6,6 +6,7 @@ import (
 	"testing"
 
 	"cardnet/api"
+	"cardnet/dispute"
 )
 
 func rec(id string) api.Record {
@@ -18,8 +19,8 @@ func reasons() []api.Reason {
 	return []api.Reason{{Code: "fraud", FileDays: 120, RepresentDays: 45, PrearbDays: 30, AnswerDays: 20, Claim: []string{"letter"}, Defence: []string{"receipt"}}, {Code: "late", FileDays: 1, RepresentDays: 1, PrearbDays: 1, AnswerDays: 1}}
 }
 
-func start(t *testing.T) *Desk {
-	d, e := New(reasons())
+func start(t *testing.T) *dispute.Desk {
+	d, e := dispute.New(reasons())
 	if e != api.OK {
 		t.Fatal(e)
 	}
@@ -36,11 +37,11 @@ func TestNext(t *testing.T) {
 			} else if want[[2]int{stage, event}] != 0 {
 				code = api.OK
 			}
-			if n, e := Next(stage, event); n != want[[2]int{stage, event}] || e != code {
+			if n, e := dispute.Next(stage, event); n != want[[2]int{stage, event}] || e != code {
 				t.Error(stage, event, n, e)
 			}
 		}
-		if n := Turn(stage); n != []int{0, 1, 2, 1, 3, 0, 0, 0}[stage] {
+		if n := dispute.Turn(stage); n != []int{0, 1, 2, 1, 3, 0, 0, 0}[stage] {
 			t.Error(stage, n)
 		}
 	}
@@ -154,15 +155,15 @@ func TestExpire(t *testing.T) {
 	if d.Disputed("p") != 3 {
 		t.Error(d.Disputed("p"))
 	}
-	var none *Desk
+	var none *dispute.Desk
 	if _, ok := none.Get("a"); ok || none.Open("a", rec("p"), "fraud", 1, 100, items) != api.ErrNone || none.Step("a", 1, 1, nil) != api.ErrNone || len(none.Expire(1)) != 0 || len(none.Cases()) != 0 || len(none.History("a")) != 0 || none.Disputed("p") != 0 {
 		t.Error("nil desk")
 	}
-	if _, e := New([]api.Reason{{}}); e != api.ErrName {
+	if _, e := dispute.New([]api.Reason{{}}); e != api.ErrName {
 		t.Error(e)
 	}
 	l := reasons()
-	d, _ = New(l)
+	d, _ = dispute.New(l)
 	l[0].Claim[0] = "changed"
 	if e := d.Open("a", rec("p"), "fraud", 1, 100, items); e != api.OK {
 		t.Error(e)

@@ -1,4 +1,4 @@
-package element
+package element_test
 
 import (
 	"slices"
@@ -6,36 +6,37 @@ import (
 	"testing"
 
 	"cardnet/api"
+	"cardnet/element"
 )
 
 func TestDictionary(t *testing.T) {
 	all := []int{2, 3, 4, 7, 11, 14, 18, 32, 37, 38, 39, 41, 42, 48, 49, 52, 54, 55, 56, 59, 70, 95, 100}
-	if !slices.Equal(All(), all) {
-		t.Error(All())
+	if !slices.Equal(element.All(), all) {
+		t.Error(element.All())
 	}
 	specs := "card 1 19 2,process 1 6 0,amount 1 12 0,sent 1 13 0,trace 1 6 0,expiry 1 5 0,category 1 4 0,acquirer 2 16 2,reference 1 12 0,approval 1 6 0,response 1 2 0,terminal 2 8 0,merchant 2 16 2,extra 2 255 3,currency 2 3 0,cryptogram 3 16 0,partial 1 12 0,counter 1 6 0,original 1 12 0,nonce 2 8 0,network 1 3 0,raise 1 12 0,receiver 2 16 2"
 	for i, want := range strings.Split(specs, ",") {
-		x, ok := Find(all[i])
+		x, ok := element.Find(all[i])
 		name, _, _ := strings.Cut(want, " ")
-		n, found := ByName(name)
+		n, found := element.ByName(name)
 		got := x.Name + " " + strings.Join([]string{itoa(x.Kind), itoa(x.Length), itoa(x.Var)}, " ")
 		if !ok || !found || n != all[i] || x.Number != n || got != want {
 			t.Error(want, got, n)
 		}
 	}
 	for _, n := range []int{0, 1, 5, 128, -2} {
-		if x, ok := Find(n); ok || x != (Spec{}) {
+		if x, ok := element.Find(n); ok || x != (element.Spec{}) {
 			t.Error(n, x)
 		}
 	}
 	for _, s := range []string{"", "Card", "none"} {
-		if n, ok := ByName(s); ok || n != 0 {
+		if n, ok := element.ByName(s); ok || n != 0 {
 			t.Error(s, n)
 		}
 	}
-	l := All()
+	l := element.All()
 	l[0] = 99
-	if All()[0] != 2 {
+	if element.All()[0] != 2 {
 		t.Error("shared memory")
 	}
 }
@@ -61,10 +62,10 @@ func TestCheck(t *testing.T) {
 		{52, "0123456789abcdef", 0}, {52, "0123456789ABCDEF", api.ErrFormat}, {52, "0123456789abcdeg", api.ErrFormat}, {59, "1234567", api.ErrShort}, {5, "1", api.ErrNone},
 		{59, "1234567 ", api.ErrFormat}, {42, "\x1f", api.ErrFormat},
 	} {
-		if e := Check(c.n, c.v); e != c.want {
+		if e := element.Check(c.n, c.v); e != c.want {
 			t.Error(i, e)
 		}
-		if s, e := Encode(c.n, c.v); e != c.want || e != api.OK && s != "" {
+		if s, e := element.Encode(c.n, c.v); e != c.want || e != api.OK && s != "" {
 			t.Error(i, s, e)
 		}
 	}
@@ -78,10 +79,10 @@ func TestText(t *testing.T) {
 		{2, "4111111111111111", "164111111111111111"}, {41, "T1", "T1      "}, {41, "12345678", "12345678"}, {39, "05", "05"}, {42, "SHOP1", "05SHOP1"}, {48, "x", "001x"},
 		{52, "0123456789abcdef", "0123456789abcdef"},
 	} {
-		if s, e := Encode(c.n, c.v); s != c.encoded || e != api.OK {
+		if s, e := element.Encode(c.n, c.v); s != c.encoded || e != api.OK {
 			t.Error(i, s, e)
 		}
-		if v, rest, e := Decode(c.n, c.encoded+" rest"); v != c.v || rest != " rest" || e != api.OK {
+		if v, rest, e := element.Decode(c.n, c.encoded+" rest"); v != c.v || rest != " rest" || e != api.OK {
 			t.Error(i, v, rest, e)
 		}
 	}
@@ -94,7 +95,7 @@ func TestText(t *testing.T) {
 		{42, "02a ", api.ErrFormat}, {48, "256" + strings.Repeat("x", 256), api.ErrLong}, {48, "25", api.ErrShort}, {41, "T1     ", api.ErrShort}, {41, "        ", api.ErrShort}, {41, " T      ", api.ErrFormat},
 		{39, "0", api.ErrShort}, {39, "0a", api.ErrFormat}, {52, "0123456789ABCDEF", api.ErrFormat}, {2, "20", api.ErrLong}, {2, "-1", api.ErrFormat},
 	} {
-		if v, rest, e := Decode(c.n, c.s); v != "" || rest != "" || e != c.want {
+		if v, rest, e := element.Decode(c.n, c.s); v != "" || rest != "" || e != c.want {
 			t.Error(i, v, rest, e)
 		}
 	}
@@ -105,11 +106,11 @@ func TestRequired(t *testing.T) {
 		100: {2, 3, 4, 7, 11, 32, 37, 41, 42, 49}, 110: {37, 39}, 130: {37, 39}, 120: {2, 3, 4, 7, 11, 32, 37, 39, 41, 42, 49},
 		400: {2, 4, 11, 32, 37, 49, 56}, 420: {2, 4, 11, 32, 37, 49, 56}, 410: {37, 39, 56}, 430: {37, 39, 56}, 800: {11, 70}, 810: {11, 39}, 0: nil, 200: nil, -100: nil,
 	} {
-		if !slices.Equal(Required(kind), want) {
-			t.Error(kind, Required(kind))
+		if !slices.Equal(element.Required(kind), want) {
+			t.Error(kind, element.Required(kind))
 		}
 		for _, n := range want {
-			if _, ok := Find(n); !ok {
+			if _, ok := element.Find(n); !ok {
 				t.Error(n)
 			}
 		}

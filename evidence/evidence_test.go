@@ -1,4 +1,4 @@
-package evidence
+package evidence_test
 
 import (
 	"math"
@@ -8,6 +8,7 @@ import (
 
 	"cardnet/api"
 	"cardnet/checksum"
+	"cardnet/evidence"
 )
 
 func TestCheck(t *testing.T) {
@@ -18,11 +19,11 @@ func TestCheck(t *testing.T) {
 		{api.Item{Kind: "letter", Size: 1}, 0}, {api.Item{Kind: "A_9", Size: 1000000}, 0}, {api.Item{Kind: "a-b"}, api.ErrName}, {api.Item{Kind: "", Size: 1}, api.ErrName}, {api.Item{Kind: "9a", Size: 1}, api.ErrName}, {api.Item{Kind: "\u00e4", Size: 1}, api.ErrName}, {api.Item{Kind: "a\xff", Size: 1}, api.ErrName},
 		{api.Item{Kind: strings.Repeat("a", 17), Size: 1}, api.ErrName}, {api.Item{Kind: strings.Repeat("a", 16), Size: 1}, 0}, {api.Item{Kind: "a"}, api.ErrRange}, {api.Item{Kind: "a", Size: 1000001}, api.ErrRange}, {api.Item{Kind: "a", Size: -1}, api.ErrRange},
 	} {
-		if e := Check(c.x); e != c.want {
+		if e := evidence.Check(c.x); e != c.want {
 			t.Error(i, e)
 		}
 	}
-	if x, e := Describe("letter", "abc"); x != (api.Item{Kind: "letter", Size: 3, Hash: checksum.Hash("abc")}) || e != api.OK {
+	if x, e := evidence.Describe("letter", "abc"); x != (api.Item{Kind: "letter", Size: 3, Hash: checksum.Hash("abc")}) || e != api.OK {
 		t.Error(x, e)
 	}
 	long := strings.Repeat("x", 4001)
@@ -30,18 +31,18 @@ func TestCheck(t *testing.T) {
 		kind, contents string
 		want           api.Errno
 	}{{"", "", api.ErrName}, {"a", "", api.ErrShort}, {"a", long, api.ErrLong}, {"a-", long, api.ErrName}} {
-		if x, e := Describe(c.kind, c.contents); x != (api.Item{}) || e != c.want {
+		if x, e := evidence.Describe(c.kind, c.contents); x != (api.Item{}) || e != c.want {
 			t.Error(i, x, e)
 		}
 	}
-	if x, e := Describe("a", long[1:]); x.Size != 4000 || e != api.OK {
+	if x, e := evidence.Describe("a", long[1:]); x.Size != 4000 || e != api.OK {
 		t.Error(x, e)
 	}
 }
 
 func TestFolder(t *testing.T) {
-	f := New()
-	letter, _ := Describe("letter", "abc")
+	f := evidence.New()
+	letter, _ := evidence.Describe("letter", "abc")
 	photo := api.Item{Kind: "photo", Size: 7, Hash: math.MaxUint64}
 	if f.Digest() != 0 || f.Add(letter) != api.OK || f.Add(letter) != api.ErrExists || f.Add(api.Item{Kind: "letter"}) != api.ErrRange {
 		t.Error("Add")
@@ -56,7 +57,7 @@ func TestFolder(t *testing.T) {
 	if len(f.Missing([]string{"photo"})) != 0 {
 		t.Error("complete")
 	}
-	g := New()
+	g := evidence.New()
 	g.Add(photo)
 	g.Add(letter)
 	if f.Digest() != g.Digest() || f.Digest() != checksum.Hash("photo/7/18446744073709551615")+checksum.Hash("letter/3/16654208175385433931") {
@@ -73,7 +74,7 @@ func TestFolder(t *testing.T) {
 	if f.Add(letter) != api.ErrFull || len(f.Items()) != 16 || f.Add(api.Item{}) != api.ErrName {
 		t.Error("room")
 	}
-	var none *Folder
+	var none *evidence.Folder
 	if none.Add(letter) != api.ErrNone || len(none.Items()) != 0 || len(none.Missing([]string{"a"})) != 0 || none.Verify("letter", "abc") || none.Digest() != 0 {
 		t.Error("nil folder")
 	}

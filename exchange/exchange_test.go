@@ -1,4 +1,4 @@
-package exchange
+package exchange_test
 
 import (
 	"math"
@@ -8,10 +8,11 @@ import (
 	"testing"
 
 	"cardnet/api"
+	"cardnet/exchange"
 )
 
-func start(t *testing.T) *Exchange {
-	x, e := New(30)
+func start(t *testing.T) *exchange.Exchange {
+	x, e := exchange.New(30)
 	if e != api.OK {
 		t.Fatal(e)
 	}
@@ -20,7 +21,7 @@ func start(t *testing.T) *Exchange {
 
 func TestNew(t *testing.T) {
 	for n, want := range map[int]api.Errno{0: api.ErrRange, 1: 0, 100000: 0, 100001: api.ErrRange, -5: api.ErrRange} {
-		if x, e := New(n); e != want || (x == nil) != (e != api.OK) {
+		if x, e := exchange.New(n); e != want || (x == nil) != (e != api.OK) {
 			t.Error(n, e)
 		}
 	}
@@ -127,7 +128,7 @@ func TestOutcome(t *testing.T) {
 }
 
 func TestNone(t *testing.T) {
-	var x *Exchange
+	var x *exchange.Exchange
 	if n, e := x.Reply(0, "a", ""); n != 0 || e != api.ErrNone || x.Begin(0, "a", "") != api.ErrNone || len(x.Lost(5)) != 0 || len(x.Waiting()) != 0 {
 		t.Error(n, e)
 	}
@@ -140,7 +141,7 @@ func TestNone(t *testing.T) {
 	if n, ok := x.Next(); n != 0 || ok {
 		t.Error(n, ok)
 	}
-	new(Exchange).Begin(0, "a", "")
+	new(exchange.Exchange).Begin(0, "a", "")
 	if len(start(t).Lost(math.MinInt)) != 0 {
 		t.Error("a time that is none")
 	}

@@ -1,10 +1,11 @@
-package expr
+package expr_test
 
 import (
 	"slices"
 	"testing"
 
 	"cardnet/api"
+	"cardnet/expr"
 )
 
 func op(o int, args ...api.Expr) api.Expr { return api.Expr{Op: o, Args: args} }
@@ -61,10 +62,10 @@ func TestCheck(t *testing.T) {
 		{api.Expr{Op: api.XName, Name: "card", N: 1}, 0, api.ErrFormat}, {api.Expr{Op: api.XName, Name: "card", Text: "x"}, 0, api.ErrFormat}, {api.Expr{Op: api.XCount, Name: "card", N: 1, Text: "x"}, 0, api.ErrFormat}, {api.Expr{Op: api.XNot, N: 1, Args: []api.Expr{name("token")}}, 0, api.ErrFormat},
 		{op(api.XAnd, name("none"), op(api.XNot, num(1))), 0, api.ErrNone}, {op(api.XAnd, op(api.XNot, num(1)), name("none")), 0, api.ErrType}, {op(api.XAdd, str(""), name("none")), 0, api.ErrNone},
 	} {
-		if n, code := Check(c.e, features); n != c.want || code != c.code {
+		if n, code := expr.Check(c.e, features); n != c.want || code != c.code {
 			t.Error(i, n, code)
 		}
-		if v, code := Eval(c.e, features, nil); code != c.code || code == api.OK && v.Kind != c.want || code != api.OK && v != (api.Feature{}) {
+		if v, code := expr.Eval(c.e, features, nil); code != c.code || code == api.OK && v.Kind != c.want || code != api.OK && v != (api.Feature{}) {
 			t.Error(i, v, code)
 		}
 	}
@@ -80,10 +81,10 @@ func TestFeatures(t *testing.T) {
 		{[]api.Feature{{Name: "a", Kind: api.TBool, N: -1}}, api.ErrRange}, {[]api.Feature{{Name: "a", Kind: api.TNumber, N: 1<<62 + 1}}, api.ErrRange}, {[]api.Feature{{Name: "a", Kind: api.TText, N: 1<<62 + 1, Text: "\x00"}}, 0}, {[]api.Feature{{Name: "a", Kind: 4}}, api.ErrRange},
 		{[]api.Feature{ok, ok, {Name: "-"}}, api.ErrExists},
 	} {
-		if n, code := Check(num(1), c.l); code != c.want || code != api.OK && n != 0 {
+		if n, code := expr.Check(num(1), c.l); code != c.want || code != api.OK && n != 0 {
 			t.Error(i, n, code)
 		}
-		if _, code := Check(deep(9), c.l); c.want != api.OK && code != c.want {
+		if _, code := expr.Check(deep(9), c.l); c.want != api.OK && code != c.want {
 			t.Error(i, code)
 		}
 	}
@@ -91,7 +92,7 @@ func TestFeatures(t *testing.T) {
 
 func TestEval(t *testing.T) {
 	n := func(n int64) api.Feature { return api.Feature{Kind: api.TNumber, N: n} }
-	yes, no := truth(true), truth(false)
+	yes, no := api.Feature{Kind: api.TBool, N: 1}, api.Feature{Kind: api.TBool}
 	tok, big := name("token"), name("big")
 	bad := op(api.XLt, op(api.XAdd, big, num(1)), num(0))
 	for i, c := range []struct {
@@ -102,46 +103,46 @@ func TestEval(t *testing.T) {
 		{op(api.XAdd, name("amount"), num(1)), n(6), 0}, {op(api.XAdd, big, num(1)), api.Feature{}, api.ErrRange}, {op(api.XAdd, big, big), api.Feature{}, api.ErrRange}, {op(api.XSub, op(api.XNeg, big), big), api.Feature{}, api.ErrRange}, {op(api.XSub, op(api.XNeg, big), num(1)), api.Feature{}, api.ErrRange},
 		{op(api.XSub, num(1), num(3)), n(-2), 0}, {op(api.XNeg, big), n(-1 << 62), 0}, {op(api.XMul, num(-3), num(4)), n(-12), 0}, {op(api.XMul, num(-3), num(-4)), n(12), 0}, {op(api.XMul, num(1<<31), num(1<<31)), n(1 << 62), 0}, {op(api.XMul, num(1<<31), num(-1<<31)), n(-1 << 62), 0},
 		{op(api.XMul, num(1<<31+1), num(1<<31)), api.Feature{}, api.ErrRange}, {op(api.XMul, big, big), api.Feature{}, api.ErrRange}, {op(api.XMul, num(0), op(api.XNeg, big)), n(0), 0},
-		{name("card"), text("c1"), 0}, {tok, yes, 0}, {op(api.XNot, tok), no, 0}, {op(api.XEq, name("card"), str("c1")), yes, 0}, {op(api.XNe, name("card"), str("c1")), no, 0}, {op(api.XEq, tok, op(api.XEq, num(1), num(1))), yes, 0},
+		{name("card"), api.Feature{Kind: api.TText, Text: "c1"}, 0}, {tok, yes, 0}, {op(api.XNot, tok), no, 0}, {op(api.XEq, name("card"), str("c1")), yes, 0}, {op(api.XNe, name("card"), str("c1")), no, 0}, {op(api.XEq, tok, op(api.XEq, num(1), num(1))), yes, 0},
 		{op(api.XLt, num(1), num(1)), no, 0}, {op(api.XLe, num(1), num(1)), yes, 0}, {op(api.XLt, num(-1), num(1)), yes, 0}, {op(api.XLe, num(2), num(1)), no, 0},
 		{op(api.XAnd, op(api.XNot, tok), bad), no, 0}, {op(api.XAnd, tok, bad), api.Feature{}, api.ErrRange}, {op(api.XOr, tok, bad), yes, 0}, {op(api.XOr, op(api.XNot, tok), tok), yes, 0}, {op(api.XAnd, tok, op(api.XNot, tok)), no, 0}, {op(api.XAnd, bad, op(api.XNot, tok)), api.Feature{}, api.ErrRange},
 		{op(api.XIn, num(5), name("amount"), op(api.XAdd, big, big)), yes, 0}, {op(api.XIn, num(6), name("amount"), op(api.XAdd, big, big)), api.Feature{}, api.ErrRange}, {op(api.XIn, str("x"), str("y"), str("x")), yes, 0}, {op(api.XIn, str("x"), str("y")), no, 0},
 		{count("card", 60), n(3), 0}, {sum("card", 60), n(180), 0}, {op(api.XNot, bad), api.Feature{}, api.ErrRange},
 	} {
-		if v, code := Eval(c.e, features, &fixed{n: 3}); v != c.want || code != c.code {
+		if v, code := expr.Eval(c.e, features, &fixed{n: 3}); v != c.want || code != c.code {
 			t.Error(i, v, code)
 		}
-		if v, code := Eval(Fold(c.e), features, &fixed{n: 3}); v != c.want || code != c.code {
+		if v, code := expr.Eval(expr.Fold(c.e), features, &fixed{n: 3}); v != c.want || code != c.code {
 			t.Error(i, "folded", v, code)
 		}
 	}
-	if v, code := Eval(op(api.XAdd, count("card", 1), sum("card", 1)), features, nil); v != n(0) || code != api.OK {
+	if v, code := expr.Eval(op(api.XAdd, count("card", 1), sum("card", 1)), features, nil); v != n(0) || code != api.OK {
 		t.Error(v, code)
 	}
 	for _, e := range []api.Expr{count("card", 1), sum("card", 1)} {
-		if v, code := Eval(e, features, &fixed{n: 1<<62 + 1}); v != (api.Feature{}) || code != api.ErrRange {
+		if v, code := expr.Eval(e, features, &fixed{n: 1<<62 + 1}); v != (api.Feature{}) || code != api.ErrRange {
 			t.Error(v, code)
 		}
 	}
 	s := &fixed{}
-	if Eval(op(api.XOr, tok, op(api.XLt, count("card", 1), num(1))), features, s); len(s.asked) != 0 {
+	if expr.Eval(op(api.XOr, tok, op(api.XLt, count("card", 1), num(1))), features, s); len(s.asked) != 0 {
 		t.Error("the second argument was evaluated")
 	}
 }
 
 func TestNames(t *testing.T) {
 	e := op(api.XAnd, op(77, name("z"), name("a"), name("z")), op(api.XLt, count("c", 60), sum("b", 600)), api.Expr{Op: api.XNumber, Name: "unused", N: 9999}, count("c", -5))
-	if l := Names(e); !slices.Equal(l, []string{"a", "b", "c", "z"}) {
+	if l := expr.Names(e); !slices.Equal(l, []string{"a", "b", "c", "z"}) {
 		t.Error(l)
 	}
-	if l, n := Windows(e); !slices.Equal(l, []string{"b", "c"}) || n != 600 {
+	if l, n := expr.Windows(e); !slices.Equal(l, []string{"b", "c"}) || n != 600 {
 		t.Error(l, n)
 	}
-	if l, n := Windows(op(1, count("c", -5))); len(l) != 1 || n != 0 || len(Names(num(1))) != 0 {
+	if l, n := expr.Windows(op(1, count("c", -5))); len(l) != 1 || n != 0 || len(expr.Names(num(1))) != 0 {
 		t.Error(l, n)
 	}
-	if Levels(num(1)) != 1 || Levels(e) != 3 || Levels(op(api.XIn, num(1), deep(4), num(2))) != 5 {
-		t.Error(Levels(e))
+	if expr.Levels(num(1)) != 1 || expr.Levels(e) != 3 || expr.Levels(op(api.XIn, num(1), deep(4), num(2))) != 5 {
+		t.Error(expr.Levels(e))
 	}
 }
 
@@ -154,17 +155,17 @@ func TestFold(t *testing.T) {
 		{op(api.XIn, a, op(api.XAdd, num(1), num(1)), str("x")), op(api.XIn, a, num(2), str("x"))}, {count("card", 5), count("card", 5)}, {op(api.XNot, op(api.XNeg, op(99))), op(api.XNot, op(api.XNeg, op(99)))},
 		{op(api.XAnd, deep(8), op(api.XLt, num(1), num(2))), op(api.XAnd, deep(8), op(api.XLt, num(1), num(2)))},
 	} {
-		f := Fold(c.e)
-		if !Same(f, c.want) || !Same(Fold(f), f) || Levels(f) > Levels(c.e) || !slices.Equal(Names(f), Names(c.e)) {
+		f := expr.Fold(c.e)
+		if !expr.Same(f, c.want) || !expr.Same(expr.Fold(f), f) || expr.Levels(f) > expr.Levels(c.e) || !slices.Equal(expr.Names(f), expr.Names(c.e)) {
 			t.Error(i, f)
 		}
-		n1, code1 := Check(c.e, features)
-		if n2, code2 := Check(f, features); n1 != n2 || code1 != code2 {
+		n1, code1 := expr.Check(c.e, features)
+		if n2, code2 := expr.Check(f, features); n1 != n2 || code1 != code2 {
 			t.Error(i, n1, n2, code1, code2)
 		}
 	}
 	e := op(api.XLt, a, num(1))
-	f := Fold(e)
+	f := expr.Fold(e)
 	f.Args[0].Name = "changed"
 	if e.Args[0].Name != "amount" {
 		t.Error("shared memory")
@@ -180,11 +181,11 @@ func TestSame(t *testing.T) {
 		{op(api.XAnd, name("a"), num(1)), true}, {op(api.XOr, name("a"), num(1)), false}, {op(api.XAnd, name("b"), num(1)), false}, {op(api.XAnd, name("a"), num(2)), false}, {op(api.XAnd, name("a")), false}, {op(api.XAnd, str("a"), num(1)), false},
 		{api.Expr{Op: api.XAnd, Text: "x", Args: e.Args}, false},
 	} {
-		if Same(e, c.x) != c.want || Same(c.x, e) != c.want {
+		if expr.Same(e, c.x) != c.want || expr.Same(c.x, e) != c.want {
 			t.Error(i)
 		}
 	}
-	if !Same(num(1), api.Expr{Op: api.XNumber, N: 1, Args: []api.Expr{}}) {
+	if !expr.Same(num(1), api.Expr{Op: api.XNumber, N: 1, Args: []api.Expr{}}) {
 		t.Error("no arguments")
 	}
 }

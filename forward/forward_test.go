@@ -1,4 +1,4 @@
-package forward
+package forward_test
 
 import (
 	"slices"
@@ -7,10 +7,11 @@ import (
 	"testing"
 
 	"cardnet/api"
+	"cardnet/forward"
 )
 
-func start(t *testing.T) *Queue {
-	q, e := New(10)
+func start(t *testing.T) *forward.Queue {
+	q, e := forward.New(10)
 	if e != api.OK {
 		t.Fatal(e)
 	}
@@ -19,7 +20,7 @@ func start(t *testing.T) *Queue {
 
 func TestNew(t *testing.T) {
 	for n, want := range map[int]api.Errno{0: api.ErrRange, 1: 0, 100000: 0, 100001: api.ErrRange, -5: api.ErrRange} {
-		if q, e := New(n); e != want || (q == nil) != (e != api.OK) {
+		if q, e := forward.New(n); e != want || (q == nil) != (e != api.OK) {
 			t.Error(n, e)
 		}
 	}
@@ -52,7 +53,7 @@ func TestPoll(t *testing.T) {
 	q := start(t)
 	q.Put(0, "k", "text")
 	q.Put(4, "j", "other")
-	poll := func(at int, want ...Item) {
+	poll := func(at int, want ...forward.Item) {
 		t.Helper()
 		if l := q.Poll(at); !slices.Equal(l, want) {
 			t.Error(l)
@@ -67,24 +68,24 @@ func TestPoll(t *testing.T) {
 	next(0, true)
 	poll(-1)
 	poll(api.MaxTime + 1)
-	poll(0, Item{"k", "text", 1})
+	poll(0, forward.Item{"k", "text", 1})
 	next(4, true)
-	poll(9, Item{"j", "other", 1})
-	poll(10, Item{"k", "text", 2})
-	poll(30, Item{"k", "text", 3}, Item{"j", "other", 2})
+	poll(9, forward.Item{"j", "other", 1})
+	poll(10, forward.Item{"k", "text", 2})
+	poll(30, forward.Item{"k", "text", 3}, forward.Item{"j", "other", 2})
 	for i, c := range []struct{ got, want api.Errno }{{q.Hold("x", -1), api.ErrNone}, {q.Hold("k", -1), api.ErrTime}, {q.Hold("k", api.MaxTime+1), api.ErrTime}, {q.Hold("k", 50), 0}, {q.Hold("j", 5), 0}, {q.Ack("x"), api.ErrNone}} {
 		if c.got != c.want {
 			t.Error(i, c.got)
 		}
 	}
 	next(40, true)
-	poll(40, Item{"j", "other", 3})
+	poll(40, forward.Item{"j", "other", 3})
 	if q.Ack("j") != api.OK || q.Ack("j") != api.ErrNone || q.Hold("j", 60) != api.ErrNone || !q.Known("j") {
 		t.Error("Ack")
 	}
 	next(50, true)
 	poll(49)
-	poll(50, Item{"k", "text", 4})
+	poll(50, forward.Item{"k", "text", 4})
 	// Times may also descend.
 	poll(20)
 	q.Ack("k")
@@ -96,12 +97,12 @@ func TestPoll(t *testing.T) {
 }
 
 func TestNone(t *testing.T) {
-	var q *Queue
+	var q *forward.Queue
 	if q.Put(0, "k", "") != api.ErrNone || q.Ack("k") != api.ErrNone || q.Hold("k", 0) != api.ErrNone || len(q.Poll(0)) != 0 || len(q.Waiting()) != 0 || q.Known("k") {
 		t.Error("nil queue")
 	}
 	if n, ok := q.Next(); n != 0 || ok {
 		t.Error(n, ok)
 	}
-	new(Queue).Put(0, "k", "")
+	new(forward.Queue).Put(0, "k", "")
 }

@@ -1,4 +1,4 @@
-package fraud
+package fraud_test
 
 import (
 	"slices"
@@ -7,6 +7,7 @@ import (
 	"testing"
 
 	"cardnet/api"
+	"cardnet/fraud"
 	"cardnet/ruletext"
 )
 
@@ -18,8 +19,8 @@ func rules(t *testing.T, s string) []api.Rule {
 	return l
 }
 
-func engine(t *testing.T, s string, refer, decline int) *Engine {
-	x, e := New(rules(t, s), refer, decline)
+func engine(t *testing.T, s string, refer, decline int) *fraud.Engine {
+	x, e := fraud.New(rules(t, s), refer, decline)
 	if e != api.OK {
 		t.Fatal(e)
 	}
@@ -32,11 +33,11 @@ func sale(card string, amount int64) []api.Feature {
 
 const text = "rule many when 2 <= count(card, 60): refer score 30; rule large when 1000 < amount: pass score 80;"
 
-func judge(t *testing.T, x *Engine, at int, l []api.Feature, want string) {
+func judge(t *testing.T, x *fraud.Engine, at int, l []api.Feature, want string) {
 	t.Helper()
 	v, e := x.Judge(at, l)
-	if Explain(v) != want || e != api.OK {
-		t.Error(Explain(v), e, want)
+	if fraud.Explain(v) != want || e != api.OK {
+		t.Error(fraud.Explain(v), e, want)
 	}
 }
 
@@ -74,7 +75,7 @@ func TestActions(t *testing.T) {
 		{"rule a when sum(merchant, 9) <= 0 and not token: decline;", "decline 0 a", 5, 6},
 	} {
 		x := engine(t, c.s, c.refer, c.decline)
-		judge(t, x, 5, Features(api.Message{}), c.want)
+		judge(t, x, 5, fraud.Features(api.Message{}), c.want)
 	}
 	// A rule whose evaluation returns an error does not fire.
 	x := engine(t, "rule a when amount * 4000000000000000 < 5 or 1 = 1: pass;", 5, 6)
@@ -96,12 +97,12 @@ func TestNew(t *testing.T) {
 		{with(func(r *api.Rule) { r.When = bad }), 0, 1, api.ErrRange}, {nil, 2, 1, api.ErrRange}, {nil, 1, 1000001, api.ErrRange}, {with(func(r *api.Rule) { r.When = bad }), 1, 1, api.ErrNone}, {with(func(r *api.Rule) { r.When = api.Expr{} }), 1, 1, api.ErrFormat},
 		{with(func(r *api.Rule) { r.When = api.Expr{Op: api.XNumber, N: 1} }), 1, 1, api.ErrType}, {append(with(func(r *api.Rule) { r.When = bad }), api.Rule{Name: "b", Action: 7}), 1, 1, api.ErrRange},
 	} {
-		if x, e := New(c.l, c.refer, c.decline); e != c.want || (x == nil) != (e != api.OK) {
+		if x, e := fraud.New(c.l, c.refer, c.decline); e != c.want || (x == nil) != (e != api.OK) {
 			t.Error(i, e)
 		}
 	}
 	l := rules(t, text)
-	x, _ := New(l, 50, 100)
+	x, _ := fraud.New(l, 50, 100)
 	l[0].When.Args[0].N = 0
 	judge(t, x, 0, sale("c", 1), "pass 0")
 }
@@ -152,24 +153,24 @@ func TestRoom(t *testing.T) {
 	if x.Undo(0, sale("c", 1), 1) != api.ErrNone || x.Undo(1, sale("c", 1), 1) != api.OK {
 		t.Error("what is remembered")
 	}
-	var none *Engine
+	var none *fraud.Engine
 	if v, e := none.Judge(0, nil); v.Fired != nil || e != api.ErrNone || none.Record(0, nil, 0) != e || none.Undo(0, nil, 0) != e || len(none.Tracked()) != 0 {
 		t.Error("nil engine")
 	}
-	new(Engine).Record(0, sale("c", 1), 1)
+	new(fraud.Engine).Record(0, sale("c", 1), 1)
 }
 
 func TestExplainFeatures(t *testing.T) {
 	for s, v := range map[string]api.Verdict{"pass 0": {}, "decline -5 a b": {Action: 2, Score: -5, Fired: []string{"a", "b"}}, "refer 7": {Action: 1, Score: 7}} {
-		if Explain(v) != s {
-			t.Error(Explain(v))
+		if fraud.Explain(v) != s {
+			t.Error(fraud.Explain(v))
 		}
 	}
-	if Explain(api.Verdict{Action: 3}) != "" || Explain(api.Verdict{Action: -1}) != "" {
+	if fraud.Explain(api.Verdict{Action: 3}) != "" || fraud.Explain(api.Verdict{Action: -1}) != "" {
 		t.Error("another action")
 	}
 	el := func(n int, s string) api.Element { return api.Element{Number: n, Value: s} }
-	l := Features(api.Message{Elements: []api.Element{el(2, "c"), el(4, "000000001000"), el(7, "x"), el(18, "5411"), el(32, "acq"), el(41, "t1"), el(42, "m1"), el(49, "EUR"), el(52, "")}})
+	l := fraud.Features(api.Message{Elements: []api.Element{el(2, "c"), el(4, "000000001000"), el(7, "x"), el(18, "5411"), el(32, "acq"), el(41, "t1"), el(42, "m1"), el(49, "EUR"), el(52, "")}})
 	s := ""
 	for _, f := range l {
 		s += f.Name + ":" + strconv.Itoa(f.Kind) + ":" + f.Text + strconv.FormatInt(f.N, 10) + " "
@@ -177,7 +178,7 @@ func TestExplainFeatures(t *testing.T) {
 	if s != "card:2:c0 merchant:2:m10 acquirer:2:acq0 currency:2:EUR0 terminal:2:t10 amount:1:1000 category:1:5411 sent:1:0 token:3:1 " {
 		t.Error(s)
 	}
-	if l := Features(api.Message{}); len(l) != 9 || l[8].N != 0 || l[0].Text != "" {
+	if l := fraud.Features(api.Message{}); len(l) != 9 || l[8].N != 0 || l[0].Text != "" {
 		t.Error(l)
 	}
 }

@@ -1,4 +1,4 @@
-package intake
+package intake_test
 
 import (
 	"slices"
@@ -9,6 +9,7 @@ import (
 	"cardnet/api"
 	"cardnet/batch"
 	"cardnet/checksum"
+	"cardnet/intake"
 )
 
 func rec(id string, amount int64) api.Record {
@@ -50,8 +51,8 @@ func file(t *testing.T, id string, date int, l ...api.Record) string {
 	return body + "C|" + crc + "\n"
 }
 
-func start(t *testing.T) *Intake {
-	x, e := New([]string{"shop", "other"})
+func start(t *testing.T) *intake.Intake {
+	x, e := intake.New([]string{"shop", "other"})
 	if e != api.OK {
 		t.Fatal(e)
 	}
@@ -71,13 +72,13 @@ func TestNew(t *testing.T) {
 		l    []string
 		want api.Errno
 	}{{nil, 0}, {make([]string, 17), api.ErrLong}, {[]string{"a", "a", ""}, api.ErrExists}, {[]string{"a-b"}, api.ErrName}} {
-		if x, e := New(c.l); e != c.want || (x == nil) != (e != api.OK) {
+		if x, e := intake.New(c.l); e != c.want || (x == nil) != (e != api.OK) {
 			t.Error(i, e)
 		}
 	}
 }
 
-func accept(t *testing.T, x *Intake, text, want string, rejects ...api.Reject) {
+func accept(t *testing.T, x *intake.Intake, text, want string, rejects ...api.Reject) {
 	t.Helper()
 	l, r, e := x.Accept(30, text)
 	if ids(l) != want || !slices.Equal(r, rejects) || e != api.OK {
@@ -137,9 +138,9 @@ func TestErrors(t *testing.T) {
 	if _, _, e := x.Accept(6, file(t, "F", 6)); e != api.ErrDuplicate {
 		t.Error(e)
 	}
-	var none *Intake
+	var none *intake.Intake
 	if _, _, e := none.Accept(6, ""); e != api.ErrNone || len(none.Files()) != 0 || none.Seen("a", "b") || len(none.Open("a")) != 0 || none.Totals("a") != (batch.Totals{}) {
 		t.Error("nil intake")
 	}
-	new(Intake).Accept(6, file(t, "F", 6, rec("a", 1)))
+	new(intake.Intake).Accept(6, file(t, "F", 6, rec("a", 1)))
 }

@@ -1,4 +1,4 @@
-package issuer
+package issuer_test
 
 import (
 	"slices"
@@ -6,6 +6,7 @@ import (
 	"testing"
 
 	"cardnet/api"
+	"cardnet/issuer"
 	"cardnet/message"
 	"cardnet/plain"
 	"cardnet/ruletext"
@@ -15,8 +16,8 @@ const mine, other = "4000000000000077", "4000000000000002"
 const r1, r2, r3 = "000010000001", "000010000002", "000010000003"
 const day = 86400
 
-func host(t *testing.T) *Host {
-	h, e := New("homebank", "EUR", 7)
+func host(t *testing.T) *issuer.Host {
+	h, e := issuer.New("homebank", "EUR", 7)
 	if e != api.OK {
 		t.Fatal(e)
 	}
@@ -58,7 +59,7 @@ func reversal(kind int, ref, original string) api.Message {
 }
 
 // send handles a message, and checks the code of the reply and its elements 4 and 38.
-func send(t *testing.T, h *Host, at int, m api.Message, code, amount, approval string) {
+func send(t *testing.T, h *issuer.Host, at int, m api.Message, code, amount, approval string) {
 	t.Helper()
 	r, e := h.Handle(at, m)
 	got, _ := message.Get(r, 39)
@@ -72,7 +73,7 @@ func send(t *testing.T, h *Host, at int, m api.Message, code, amount, approval s
 	}
 }
 
-func state(t *testing.T, h *Host, number string, balance, held int64) {
+func state(t *testing.T, h *issuer.Host, number string, balance, held int64) {
 	t.Helper()
 	if b, n, ok := h.Account(number); b != balance || n != held || !ok {
 		t.Error(b, n, ok)
@@ -85,7 +86,7 @@ func TestNewIssue(t *testing.T) {
 		days           int
 		want           api.Errno
 	}{{"a", "EUR", 1, 0}, {"a", "EUR", 365, 0}, {"a-b", "eur", 0, api.ErrName}, {"a", "eur", 0, api.ErrCurrency}, {"a", "EUR", 0, api.ErrRange}, {"a", "EUR", 366, api.ErrRange}} {
-		if h, e := New(c.name, c.currency, c.days); e != c.want || (h == nil) != (e != api.OK) {
+		if h, e := issuer.New(c.name, c.currency, c.days); e != c.want || (h == nil) != (e != api.OK) {
 			t.Error(i, e)
 		}
 	}
@@ -324,7 +325,7 @@ func TestExpire(t *testing.T) {
 }
 
 func TestRoom(t *testing.T) {
-	h, _ := New("homebank", "EUR", 7)
+	h, _ := issuer.New("homebank", "EUR", 7)
 	h.Issue(mine, 100, 1000, 0, 100000, 1000)
 	for i := range 65 {
 		id := plain.Digits(int64(i+1), 12)
@@ -334,11 +335,11 @@ func TestRoom(t *testing.T) {
 		}
 		send(t, h, i, request(id, 1), code, "", approval)
 	}
-	var none *Host
+	var none *issuer.Host
 	if r, e := none.Handle(0, request(r1, 1)); r.Type != 0 || e != api.ErrNone || none.Post(0, api.Record{}) != e || none.Issue("", 0, 0, 0, 0, 0) != e || none.Card("", 1) != e || none.Rules(nil, 1, 1) != e || len(none.Expire(0)) != 0 || len(none.Auths()) != 0 {
 		t.Error("nil host")
 	}
-	zero := new(Host)
+	zero := new(issuer.Host)
 	zero.Handle(0, reversal(420, r1, r2))
 	if _, ok := none.Auth(r1); ok {
 		t.Error("nil host")

@@ -1,32 +1,35 @@
-package journal
+package journal_test
 
 import (
 	"slices"
+	"strconv"
 	"strings"
 	"testing"
 
 	"cardnet/api"
 	"cardnet/checksum"
 	"cardnet/disk"
+	"cardnet/journal"
+	"cardnet/plain"
 )
 
-func open(t *testing.T, d *disk.Disk) *Journal {
+func open(t *testing.T, d *disk.Disk) *journal.Journal {
 	t.Helper()
-	j, e := Open(d)
+	j, e := journal.Open(d)
 	if e != api.OK {
 		t.Fatal(e)
 	}
 	return j
 }
 
-func fresh(t *testing.T, blocks int) (*disk.Disk, *Journal) {
+func fresh(t *testing.T, blocks int) (*disk.Disk, *journal.Journal) {
 	t.Helper()
 	d, _ := disk.New(blocks)
 	return d, open(t, d)
 }
 
 // keep commits a group of records.
-func keep(t *testing.T, j *Journal, records ...string) {
+func keep(t *testing.T, j *journal.Journal, records ...string) {
 	t.Helper()
 	for _, r := range records {
 		if e := j.Append(r); e != api.OK {
@@ -38,23 +41,29 @@ func keep(t *testing.T, j *Journal, records ...string) {
 	}
 }
 
+// chained returns a block after a hash.
+func chained(prev uint64, rest string) string {
+	digits := strings.Repeat("0", 16) + strconv.FormatUint(checksum.Chain(prev, rest), 16)
+	return digits[len(digits)-16:] + rest
+}
+
 func TestBlocks(t *testing.T) {
-	one, e := Blocks(0, []string{"a"})
-	if len(one) != 1 || one[0] != hashText(checksum.Chain(0, ".050001a"))+".050001a" || e != api.OK {
+	one, e := journal.Blocks(0, []string{"a"})
+	if len(one) != 1 || one[0] != chained(0, ".050001a") || e != api.OK {
 		t.Error(one, e)
 	}
 	long := strings.Repeat("x", 100)
-	l, e := Blocks(7, []string{long})
+	l, e := journal.Blocks(7, []string{long})
 	h := checksum.Chain(7, "+450100"+long[:41])
 	g := checksum.Chain(h, "+45"+long[:45])
-	want := []string{hashText(h) + "+450100" + long[:41], hashText(g) + "+45" + long[:45], hashText(checksum.Chain(g, ".14"+long[:14])) + ".14" + long[:14]}
+	want := []string{chained(7, "+450100"+long[:41]), chained(h, "+45"+long[:45]), chained(g, ".14"+long[:14])}
 	if !slices.Equal(l, want) || e != api.OK {
 		t.Error(l, e)
 	}
-	if l, e := Blocks(0, []string{"", ""}); len(l) != 1 || !strings.HasSuffix(l[0], ".0800000000") || e != api.OK {
+	if l, e := journal.Blocks(0, []string{"", ""}); len(l) != 1 || !strings.HasSuffix(l[0], ".0800000000") || e != api.OK {
 		t.Error(l, e)
 	}
-	if l, e := Blocks(0, []string{strings.Repeat("x", 86)}); len(l) != 2 || len(l[1]) != disk.Size || e != api.OK {
+	if l, e := journal.Blocks(0, []string{strings.Repeat("x", 86)}); len(l) != 2 || len(l[1]) != disk.Size || e != api.OK {
 		t.Error(l, e)
 	}
 	many := make([]string, 257)
@@ -63,7 +72,7 @@ func TestBlocks(t *testing.T) {
 		l    []string
 		want api.Errno
 	}{{nil, api.ErrState}, {many, api.ErrFull}, {many[:256], 0}, {tooLong, api.ErrLong}, {slices.Repeat(tooLong, 257), api.ErrFull}, {[]string{strings.Repeat("x", 4000)}, 0}} {
-		if l, e := Blocks(0, c.l); e != c.want || (len(l) == 0) != (e != api.OK) {
+		if l, e := journal.Blocks(0, c.l); e != c.want || (len(l) == 0) != (e != api.OK) {
 			t.Error(i, e)
 		}
 	}
@@ -128,7 +137,7 @@ func TestCrash(t *testing.T) {
 			if e != api.ErrDown || j.Append("z") != api.ErrDown || j.Commit() != api.ErrDown || j.Pending() != 0 || j.Groups() != 1 {
 				t.Error(steps, mask, e)
 			}
-			if x, e := Open(d); x != nil || e != api.ErrDown {
+			if x, e := journal.Open(d); x != nil || e != api.ErrDown {
 				t.Error(x, e)
 			}
 			d.Recover()
@@ -146,7 +155,9 @@ func TestCrash(t *testing.T) {
 }
 
 func TestForeignBlocks(t *testing.T) {
-	block := func(prev uint64, mark, payload string) string { s, _ := chained(prev, mark, payload); return s }
+	block := func(prev uint64, mark, payload string) string {
+		return chained(prev, mark+plain.Digits(int64(len(payload)), 2)+payload)
+	}
 	full := strings.Repeat("0000", 11)
 	for i, c := range []struct {
 		blocks []string
@@ -167,15 +178,15 @@ func TestForeignBlocks(t *testing.T) {
 }
 
 func TestNone(t *testing.T) {
-	if j, e := Open(nil); j != nil || e != api.ErrNone {
+	if j, e := journal.Open(nil); j != nil || e != api.ErrNone {
 		t.Error(j, e)
 	}
-	var j *Journal
+	var j *journal.Journal
 	j.Drop()
 	if j.Append("") != api.ErrNone || j.Commit() != api.ErrNone || len(j.Records()) != 0 || j.Groups() != 0 || j.Pending() != 0 || j.Room() != 0 || j.Head() != 0 {
 		t.Error("nil journal")
 	}
-	new(Journal).Append("")
+	new(journal.Journal).Append("")
 	// A journal that has stopped stays so.
 	d, k := fresh(t, 3)
 	k.Append("a")

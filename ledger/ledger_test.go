@@ -1,4 +1,4 @@
-package ledger
+package ledger_test
 
 import (
 	"reflect"
@@ -9,6 +9,7 @@ import (
 
 	"cardnet/api"
 	"cardnet/checksum"
+	"cardnet/ledger"
 )
 
 func p(account string, n int64, currency string) api.Posting {
@@ -17,8 +18,8 @@ func p(account string, n int64, currency string) api.Posting {
 
 func entry(id string, l ...api.Posting) api.Entry { return api.Entry{Id: id, Date: 20, Postings: l} }
 
-func start(t *testing.T) *Ledger {
-	l, e := New([]string{"c:1", "a", "b"})
+func start(t *testing.T) *ledger.Ledger {
+	l, e := ledger.New([]string{"c:1", "a", "b"})
 	if e != api.OK {
 		t.Fatal(e)
 	}
@@ -34,7 +35,7 @@ func TestNew(t *testing.T) {
 		l    []string
 		want api.Errno
 	}{{nil, 0}, {many[:512], 0}, {many, api.ErrLong}, {[]string{"a b"}, api.ErrName}, {[]string{""}, api.ErrName}, {[]string{strings.Repeat("a", 41)}, api.ErrName}, {[]string{strings.Repeat("a", 40), "_-:9"}, 0}, {[]string{"a", "a", ""}, api.ErrExists}} {
-		if l, e := New(c.l); e != c.want || (l == nil) != (e != api.OK) {
+		if l, e := ledger.New(c.l); e != c.want || (l == nil) != (e != api.OK) {
 			t.Error(i, e)
 		}
 	}
@@ -121,9 +122,9 @@ func TestRoom(t *testing.T) {
 	if l.Post(entry("x", p("a", 0, "EUR"))) != api.ErrFull || l.Post(entry("x", p("a", 1, "EUR"))) != api.ErrBalance || l.Reverse("e0", "x", 20) != api.ErrFull || l.Reverse("e0", "x", 20) != api.ErrFull {
 		t.Error("room")
 	}
-	var none *Ledger
+	var none *ledger.Ledger
 	if _, ok := none.Entry("x"); ok || none.Post(entry("x")) != api.ErrNone || none.Reverse("a", "b", 0) != api.ErrNone || none.Balance("a", "EUR") != 0 || len(none.Entries()) != 0 || len(none.Trial("EUR")) != 0 || len(none.Statement("a")) != 0 || none.Digest() != 0 {
 		t.Error("nil ledger")
 	}
-	new(Ledger).Post(entry("x", p("a", 0, "EUR")))
+	new(ledger.Ledger).Post(entry("x", p("a", 0, "EUR")))
 }

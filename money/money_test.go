@@ -1,4 +1,4 @@
-package money
+package money_test
 
 import (
 	"math"
@@ -6,6 +6,7 @@ import (
 	"testing"
 
 	"cardnet/api"
+	"cardnet/money"
 )
 
 func usd(n int64) api.Money { return api.Money{Amount: n, Currency: "USD"} }
@@ -16,7 +17,7 @@ func TestCheck(t *testing.T) {
 		usd(math.MinInt64): api.ErrRange, {Currency: "US"}: api.ErrCurrency, {Currency: "USDD"}: api.ErrCurrency,
 		{Currency: "US1"}: api.ErrCurrency, {Amount: math.MaxInt64, Currency: "usd"}: api.ErrCurrency, {}: api.ErrCurrency,
 	} {
-		if e := Check(m); e != want {
+		if e := money.Check(m); e != want {
 			t.Error(m, e)
 		}
 	}
@@ -40,9 +41,9 @@ func TestAddSubCmp(t *testing.T) {
 		{eur, bad, 0, 0, 0, [3]api.Errno{api.ErrRange, api.ErrRange, api.ErrRange}},
 		{eur, usd(1), 0, 0, 0, [3]api.Errno{api.ErrCurrency, api.ErrCurrency, api.ErrCurrency}},
 	} {
-		x, e0 := Add(c.a, c.b)
-		y, e1 := Sub(c.a, c.b)
-		n, e2 := Cmp(c.a, c.b)
+		x, e0 := money.Add(c.a, c.b)
+		y, e1 := money.Sub(c.a, c.b)
+		n, e2 := money.Cmp(c.a, c.b)
 		if x.Amount != c.sum || y.Amount != c.dif || n != c.order || [3]api.Errno{e0, e1, e2} != c.e {
 			t.Error(i, x, y, n, e0, e1, e2)
 		}
@@ -66,7 +67,7 @@ func TestScale(t *testing.T) {
 		{api.MaxTotal, 1 << 40, 1 << 40, [4]int64{api.MaxTotal, api.MaxTotal, api.MaxTotal, api.MaxTotal}},
 	} {
 		for mode := api.Down; mode <= api.HalfEven; mode++ {
-			x, e := Scale(usd(c.n), c.num, c.den, mode)
+			x, e := money.Scale(usd(c.n), c.num, c.den, mode)
 			if x != usd(c.want[mode-1]) || e != api.OK {
 				t.Error(i, mode, x, e)
 			}
@@ -83,7 +84,7 @@ func TestScale(t *testing.T) {
 		{usd(1), 1, 1, 5, api.ErrRange}, {usd(api.MaxTotal), 2, 1, 1, api.ErrRange}, {usd(api.MaxTotal), 1 << 40, 1, 1, api.ErrRange},
 		{api.Money{Currency: "x"}, 1, 0, 9, api.ErrCurrency}, {usd(api.MaxTotal), 1<<40 - 1, 1<<40 - 2, api.Up, api.ErrRange},
 	} {
-		if x, e := Scale(c.m, c.num, c.den, c.mode); e != c.want || x != (api.Money{}) {
+		if x, e := money.Scale(c.m, c.num, c.den, c.mode); e != c.want || x != (api.Money{}) {
 			t.Error(i, x, e)
 		}
 	}
@@ -102,7 +103,7 @@ func TestSplit(t *testing.T) {
 		{2, []int64{1, 2, 2}, []int64{0, 1, 1}},
 		{api.MaxTotal, []int64{1 << 40, 1 << 40}, []int64{api.MaxTotal / 2, api.MaxTotal / 2}},
 	} {
-		l, e := Split(usd(c.n), c.w)
+		l, e := money.Split(usd(c.n), c.w)
 		got := []int64{}
 		for _, m := range l {
 			got = append(got, m.Amount)
@@ -115,48 +116,48 @@ func TestSplit(t *testing.T) {
 		}
 	}
 	for i, w := range [][]int64{nil, {0}, {-1, 2}, {1<<40 + 1}, make([]int64, 65)} {
-		if l, e := Split(usd(1), w); e != api.ErrRange || len(l) != 0 {
+		if l, e := money.Split(usd(1), w); e != api.ErrRange || len(l) != 0 {
 			t.Error(i, l, e)
 		}
 	}
 	many := slices.Repeat([]int64{1}, 65)
-	if _, e := Split(usd(1), many); e != api.ErrRange {
+	if _, e := money.Split(usd(1), many); e != api.ErrRange {
 		t.Error(e)
 	}
-	if l, e := Split(usd(65), many[:64]); e != api.OK || l[0].Amount != 2 || l[63].Amount != 1 {
+	if l, e := money.Split(usd(65), many[:64]); e != api.OK || l[0].Amount != 2 || l[63].Amount != 1 {
 		t.Error(l, e)
 	}
-	if _, e := Split(api.Money{}, nil); e != api.ErrCurrency {
+	if _, e := money.Split(api.Money{}, nil); e != api.ErrCurrency {
 		t.Error(e)
 	}
 }
 
 func TestSum(t *testing.T) {
-	if m, e := Sum("USD", []api.Money{usd(1), usd(-3)}); m != usd(-2) || e != api.OK {
+	if m, e := money.Sum("USD", []api.Money{usd(1), usd(-3)}); m != usd(-2) || e != api.OK {
 		t.Error(m, e)
 	}
-	if m, e := Sum("USD", nil); m != usd(0) || e != api.OK {
+	if m, e := money.Sum("USD", nil); m != usd(0) || e != api.OK {
 		t.Error(m, e)
 	}
-	if m, e := Sum("usd", nil); m != (api.Money{}) || e != api.ErrCurrency {
+	if m, e := money.Sum("usd", nil); m != (api.Money{}) || e != api.ErrCurrency {
 		t.Error(m, e)
 	}
-	if m, e := Sum("USD", []api.Money{usd(api.MaxTotal), usd(1), {}}); m != (api.Money{}) || e != api.ErrRange {
+	if m, e := money.Sum("USD", []api.Money{usd(api.MaxTotal), usd(1), {}}); m != (api.Money{}) || e != api.ErrRange {
 		t.Error(m, e)
 	}
-	if m, e := Sum("USD", []api.Money{usd(1), {Amount: 1, Currency: "EUR"}}); m != (api.Money{}) || e != api.ErrCurrency {
+	if m, e := money.Sum("USD", []api.Money{usd(1), {Amount: 1, Currency: "EUR"}}); m != (api.Money{}) || e != api.ErrCurrency {
 		t.Error(m, e)
 	}
 }
 
 func TestExponent(t *testing.T) {
 	for c, want := range map[string]int{"JPY": 0, "KRW": 0, "VND": 0, "CLP": 0, "ISK": 0, "BHD": 3, "KWD": 3, "JOD": 3, "OMR": 3, "TND": 3, "EUR": 2, "ZZZ": 2} {
-		if n, ok := Exponent(c); n != want || !ok {
+		if n, ok := money.Exponent(c); n != want || !ok {
 			t.Error(c, n, ok)
 		}
 	}
 	for _, c := range []string{"", "jpy", "BHDD"} {
-		if n, ok := Exponent(c); n != 0 || ok {
+		if n, ok := money.Exponent(c); n != 0 || ok {
 			t.Error(c, n, ok)
 		}
 	}
@@ -168,10 +169,10 @@ func TestText(t *testing.T) {
 		"-1234 JPY": {Amount: -1234, Currency: "JPY"}, "0 JPY": {Currency: "JPY"}, "0.001 BHD": {Amount: 1, Currency: "BHD"},
 		"45035996273704.96 USD": usd(api.MaxTotal),
 	} {
-		if Format(m) != s {
-			t.Error(Format(m), s)
+		if money.Format(m) != s {
+			t.Error(money.Format(m), s)
 		}
-		if x, e := Parse(s); x != m || e != api.OK {
+		if x, e := money.Parse(s); x != m || e != api.OK {
 			t.Error(s, x, e)
 		}
 	}
@@ -182,11 +183,11 @@ func TestText(t *testing.T) {
 		"1.-0 USD": api.ErrFormat, "1..0 USD": api.ErrFormat, "USD": api.ErrFormat, " USD": api.ErrFormat,
 		"45035996273704.97 USD": api.ErrRange, "-45035996273704.97 USD": api.ErrRange, "99999999999999999999999 JPY": api.ErrRange,
 	} {
-		if x, e := Parse(s); x != (api.Money{}) || e != want {
+		if x, e := money.Parse(s); x != (api.Money{}) || e != want {
 			t.Error(s, x, e)
 		}
 	}
-	if Format(usd(api.MaxTotal+1)) != "" || Format(api.Money{Amount: 1, Currency: "x"}) != "" {
+	if money.Format(usd(api.MaxTotal+1)) != "" || money.Format(api.Money{Amount: 1, Currency: "x"}) != "" {
 		t.Error("Format of what is not valid")
 	}
 }

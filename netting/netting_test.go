@@ -1,4 +1,4 @@
-package netting
+package netting_test
 
 import (
 	"math"
@@ -7,6 +7,7 @@ import (
 	"testing"
 
 	"cardnet/api"
+	"cardnet/netting"
 )
 
 func pos(party string, n int64, currency string) api.Position {
@@ -29,13 +30,13 @@ func TestCheck(t *testing.T) {
 		{nil, 0}, {many[:512], 0}, {many, api.ErrLong}, {[]api.Position{pos("a-b", 1, "x")}, api.ErrName}, {[]api.Position{pos("a", 1, "x")}, api.ErrCurrency}, {[]api.Position{pos("a", api.MaxTotal+1, "EUR")}, api.ErrRange}, {[]api.Position{pos("a", math.MinInt64, "EUR")}, api.ErrRange},
 		{[]api.Position{pos("a", 1, "EUR"), pos("a", -1, "EUR"), pos("", 0, "")}, api.ErrExists}, {[]api.Position{pos("a", 1, "EUR"), pos("a", -1, "USD")}, api.ErrBalance}, {[]api.Position{pos("a", 1, "EUR"), pos("b", -1, "EUR"), pos("a", 0, "USD")}, 0}, {[]api.Position{pos("a", 1, "EUR"), pos("a", 1, "USD"), pos("a-", 1, "USD")}, api.ErrName},
 	} {
-		if e := Check(c.l); e != c.want {
+		if e := netting.Check(c.l); e != c.want {
 			t.Error(i, e)
 		}
-		if x, e := Settle(c.l); e != c.want || len(x) != 0 && e != api.OK {
+		if x, e := netting.Settle(c.l); e != c.want || len(x) != 0 && e != api.OK {
 			t.Error(i, x, e)
 		}
-		if Valid(c.l, nil) && c.want != api.OK {
+		if netting.Valid(c.l, nil) && c.want != api.OK {
 			t.Error(i)
 		}
 	}
@@ -53,12 +54,12 @@ func TestSettle(t *testing.T) {
 		{[]api.Position{pos("a", 0, "EUR")}, nil},
 	} {
 		given := slices.Clone(c.l)
-		x, e := Settle(c.l)
-		if !slices.Equal(x, c.want) || e != api.OK || !Valid(c.l, x) || !slices.Equal(given, c.l) {
+		x, e := netting.Settle(c.l)
+		if !slices.Equal(x, c.want) || e != api.OK || !netting.Valid(c.l, x) || !slices.Equal(given, c.l) {
 			t.Error(i, x, e)
 		}
 		slices.Reverse(given)
-		if y, _ := Settle(given); !slices.Equal(x, y) {
+		if y, _ := netting.Settle(given); !slices.Equal(x, y) {
 			t.Error(i, y)
 		}
 	}
@@ -76,7 +77,7 @@ func TestApply(t *testing.T) {
 		{[]api.Position{pos("a", api.MaxTotal, "EUR")}, []api.Transfer{pay("a", "b", 1, "EUR")}, nil, api.ErrRange}, {[]api.Position{pos("b", -api.MaxTotal, "EUR")}, []api.Transfer{pay("a", "b", 1, "EUR")}, nil, api.ErrRange}, {[]api.Position{pos("a", api.MaxTotal, "EUR")}, []api.Transfer{pay("a", "a", 1, "EUR")}, nil, api.ErrRange}, {nil, []api.Transfer{pay("a", "a", 1, "EUR")}, nil, 0},
 		{[]api.Position{pos("a", 1, "EUR")}, nil, []api.Position{pos("a", 1, "EUR")}, 0},
 	} {
-		if l, e := Apply(c.l, c.t); !slices.Equal(l, c.want) || e != c.e {
+		if l, e := netting.Apply(c.l, c.t); !slices.Equal(l, c.want) || e != c.e {
 			t.Error(i, l, e)
 		}
 	}
@@ -91,15 +92,15 @@ func TestValidVolume(t *testing.T) {
 		{[]api.Transfer{pay("a", "b", 5, "EUR")}, true}, {[]api.Transfer{pay("a", "b", 3, "EUR"), pay("a", "b", 2, "EUR")}, true}, {[]api.Transfer{pay("a", "b", 4, "EUR")}, false}, {nil, false}, {[]api.Transfer{pay("b", "a", -5, "EUR")}, false}, {[]api.Transfer{pay("a", "b", 5, "EUR"), pay("a", "a", 1, "EUR")}, false},
 		{[]api.Transfer{pay("a", "b", 5, "EUR"), pay("a", "b", 0, "EUR")}, false}, {[]api.Transfer{pay("a", "b", 5, "EUR"), pay("a", "-", 1, "EUR")}, false}, {[]api.Transfer{pay("a", "c", 5, "EUR"), pay("c", "b", 5, "EUR")}, true},
 	} {
-		if Valid(l, c.t) != c.want {
+		if netting.Valid(l, c.t) != c.want {
 			t.Error(i)
 		}
 	}
-	if !Valid(nil, nil) {
+	if !netting.Valid(nil, nil) {
 		t.Error("nothing to settle")
 	}
 	x := []api.Transfer{pay("a", "b", 5, "EUR"), pay("", "", 7, "EUR"), pay("a", "b", -3, "EUR"), pay("a", "b", 9, "USD"), pay("a", "b", api.MaxTotal+1, "EUR"), pay("a", "b", 9, "x")}
-	if Volume(x, "EUR") != 12 || Volume(x, "x") != 0 || Volume(append(x, pay("a", "b", api.MaxTotal, "EUR"), pay("a", "b", api.MaxTotal, "EUR")), "EUR") != api.MaxTotal {
-		t.Error(Volume(x, "EUR"))
+	if netting.Volume(x, "EUR") != 12 || netting.Volume(x, "x") != 0 || netting.Volume(append(x, pay("a", "b", api.MaxTotal, "EUR"), pay("a", "b", api.MaxTotal, "EUR")), "EUR") != api.MaxTotal {
+		t.Error(netting.Volume(x, "EUR"))
 	}
 }

@@ -1,4 +1,4 @@
-package pan
+package pan_test
 
 import (
 	"math"
@@ -6,26 +6,27 @@ import (
 	"testing"
 
 	"cardnet/api"
+	"cardnet/pan"
 )
 
 func TestLuhn(t *testing.T) {
 	for s, want := range map[string]bool{"79927398713": true, "79927398710": false, "": false, "0": true, "18": true, "81": false, "4111111111111111": true, "411111111111111a": false, "0\xff": false, "\u0660": false, strings.Repeat("0", 100): true} {
-		if Luhn(s) != want {
+		if pan.Luhn(s) != want {
 			t.Error(s)
 		}
 	}
 	// Every replaced digit and every exchange of neighbours but 0 and 9 is found.
 	s := "4000000000900077"
-	d, _ := CheckDigit(s[:15])
+	d, _ := pan.CheckDigit(s[:15])
 	s = s[:15] + string(d)
 	for i := range s {
 		for c := byte('0'); c <= '9'; c++ {
-			if x := s[:i] + string(c) + s[i+1:]; Luhn(x) != (x == s) {
+			if x := s[:i] + string(c) + s[i+1:]; pan.Luhn(x) != (x == s) {
 				t.Error(x)
 			}
 		}
 		if i > 0 && s[i] != s[i-1] && int(s[i])+int(s[i-1]) != '0'+'9' {
-			if x := s[:i-1] + string(s[i]) + string(s[i-1]) + s[i+1:]; Luhn(x) {
+			if x := s[:i-1] + string(s[i]) + string(s[i-1]) + s[i+1:]; pan.Luhn(x) {
 				t.Error(x)
 			}
 		}
@@ -34,12 +35,12 @@ func TestLuhn(t *testing.T) {
 
 func TestCheckDigit(t *testing.T) {
 	for s, want := range map[string]byte{"7992739871": '3', "0": '0', "411111111111111": '1', "000000000000000000": '0', "5": '9'} {
-		if d, e := CheckDigit(s); d != want || e != api.OK || !Luhn(s+string(d)) {
+		if d, e := pan.CheckDigit(s); d != want || e != api.OK || !pan.Luhn(s+string(d)) {
 			t.Error(s, d, e)
 		}
 	}
 	for s, want := range map[string]api.Errno{"": api.ErrShort, strings.Repeat("1", 19): api.ErrLong, "12a": api.ErrFormat, strings.Repeat("a", 19): api.ErrLong} {
-		if d, e := CheckDigit(s); d != 0 || e != want {
+		if d, e := pan.CheckDigit(s); d != 0 || e != want {
 			t.Error(s, d, e)
 		}
 	}
@@ -50,7 +51,7 @@ func TestCheck(t *testing.T) {
 		"4111111111111111": api.OK, "4111111111111112": api.ErrChecksum, "79927398713": api.ErrShort, "": api.ErrShort,
 		"000000000000": api.OK, strings.Repeat("0", 19): api.OK, strings.Repeat("0", 20): api.ErrLong, "41111111111111 1": api.ErrFormat,
 	} {
-		if e := Check(s); e != want {
+		if e := pan.Check(s); e != want {
 			t.Error(s, e)
 		}
 	}
@@ -64,11 +65,11 @@ func TestMakeIndex(t *testing.T) {
 	}{
 		{"400000", 7, 16, "4000000000000077"}, {"400000", 0, 16, "4000000000000002"}, {"1234567890", 9, 12, "123456789098"}, {"9", 99999999999999999, 19, ""},
 	} {
-		s, e := Make(c.prefix, c.n, c.length)
+		s, e := pan.Make(c.prefix, c.n, c.length)
 		if e != api.OK || c.want != "" && s != c.want || len(s) != c.length {
 			t.Error(i, s, e)
 		}
-		if n, ok := Index(c.prefix, s); n != c.n || !ok {
+		if n, ok := pan.Index(c.prefix, s); n != c.n || !ok {
 			t.Error(i, n, ok)
 		}
 	}
@@ -79,12 +80,12 @@ func TestMakeIndex(t *testing.T) {
 		{"400000", 7, 11}, {"400000", 7, 20}, {"", 7, 16}, {"12345678901", 7, 16}, {"4a", 7, 16}, {"400000", -1, 16}, {"400000", 1000000000, 16},
 		{"1234567890", 10, 12}, {"4", math.MaxInt, 19}, {"4", math.MinInt, 19},
 	} {
-		if s, e := Make(c.prefix, c.n, c.length); s != "" || e != api.ErrRange {
+		if s, e := pan.Make(c.prefix, c.n, c.length); s != "" || e != api.ErrRange {
 			t.Error(i, s, e)
 		}
 	}
 	for _, c := range [][2]string{{"400000", "4000000000000078"}, {"400001", "4000000000000077"}, {"", "4000000000000077"}, {"40000000000", "4000000000000077"}, {"400000", "40000077"}, {"400000", ""}} {
-		if n, ok := Index(c[0], c[1]); n != 0 || ok {
+		if n, ok := pan.Index(c[0], c[1]); n != 0 || ok {
 			t.Error(c, n, ok)
 		}
 	}
@@ -92,8 +93,8 @@ func TestMakeIndex(t *testing.T) {
 
 func TestMaskWithinGroup(t *testing.T) {
 	for s, want := range map[string]string{"4000000000000077": "400000******0077", "000000000000": "000000**0000", "4000000000000078": "****************", "": "", "ab": "**"} {
-		if Mask(s) != want {
-			t.Error(s, Mask(s))
+		if pan.Mask(s) != want {
+			t.Error(s, pan.Mask(s))
 		}
 	}
 	for i, c := range []struct {
@@ -104,20 +105,20 @@ func TestMaskWithinGroup(t *testing.T) {
 		{"41", "4", "40", false}, {"41", "", "", false}, {"4", "40", "41", false}, {"", "", "", false}, {"41", "4a", "42", false}, {"41", "40", "4b", false},
 		{"4x", "4", "4", false}, {"41", "41", "41", true}, {"45", "46", "44", false},
 	} {
-		if Within(c.s, c.low, c.high) != c.want {
+		if pan.Within(c.s, c.low, c.high) != c.want {
 			t.Error(i)
 		}
 	}
 	for s, want := range map[string]string{"": "", "abc": "abc", "abcd": "abcd", "abcde": "abcd e", "4000000000000077": "4000 0000 0000 0077"} {
-		if Group(s) != want {
-			t.Error(s, Group(s))
+		if pan.Group(s) != want {
+			t.Error(s, pan.Group(s))
 		}
 	}
 }
 
 func TestStrip(t *testing.T) {
-	for _, s := range []string{"4000-0000 0000 0077", "4000000000000077", "4-0-0-0-0-0-0-0-0-0-0-0-0-0-7-7", Group("4000000000000077")} {
-		if x, e := Strip(s); x != "4000000000000077" || e != api.OK {
+	for _, s := range []string{"4000-0000 0000 0077", "4000000000000077", "4-0-0-0-0-0-0-0-0-0-0-0-0-0-7-7", pan.Group("4000000000000077")} {
+		if x, e := pan.Strip(s); x != "4000000000000077" || e != api.OK {
 			t.Error(s, x, e)
 		}
 	}
@@ -125,7 +126,7 @@ func TestStrip(t *testing.T) {
 		"": api.ErrShort, "4000--0000": api.ErrFormat, "-4000": api.ErrFormat, "4000 ": api.ErrFormat, "4000_0000": api.ErrFormat, "4000 -0000": api.ErrFormat,
 		"4000 0000": api.ErrShort, "4000 0000 0000 0078": api.ErrChecksum, "4000 0000 0000 0000 0000": api.ErrLong, " ": api.ErrFormat, "4\xff0": api.ErrFormat,
 	} {
-		if x, e := Strip(s); x != "" || e != want {
+		if x, e := pan.Strip(s); x != "" || e != want {
 			t.Error(s, x, e)
 		}
 	}

@@ -1,4 +1,4 @@
-package paynet
+package paynet_test
 
 import (
 	"math"
@@ -11,6 +11,7 @@ import (
 	"cardnet/assess"
 	"cardnet/feetext"
 	"cardnet/matching"
+	"cardnet/paynet"
 )
 
 const day = 86400
@@ -23,29 +24,29 @@ func percent(t *testing.T, name string) []api.FeeRule {
 	return l
 }
 
-func setup(t *testing.T) Setup {
-	return Setup{
-		Banks:     []Bank{{Name: "homebank", Low: "400000", High: "400999", Cards: 2, Balance: 10000, Daily: 100000, Each: 1000, Day: 5000, Count: 5}},
+func setup(t *testing.T) paynet.Setup {
+	return paynet.Setup{
+		Banks:     []paynet.Bank{{Name: "homebank", Low: "400000", High: "400999", Cards: 2, Balance: 10000, Daily: 100000, Each: 1000, Day: 5000, Count: 5}},
 		Acquirers: []string{"shopbank"}, Currency: "EUR", Latency: 1, Timeout: 60, Retry: 30, Days: 7, Cutoff: 64800,
 		Tables:  assess.Tables{Interchange: percent(t, "i"), Scheme: percent(t, "s"), Merchant: percent(t, "m")},
 		Reasons: []api.Reason{{Code: "fraud", FileDays: 120, RepresentDays: 45, PrearbDays: 30, AnswerDays: 30, Claim: []string{"letter"}, Defence: []string{"receipt"}}},
 	}
 }
 
-func start(t *testing.T, change func(s *Setup)) *Net {
+func start(t *testing.T, change func(s *paynet.Setup)) *paynet.Net {
 	t.Helper()
 	s := setup(t)
 	change(&s)
-	n, e := New(s)
+	n, e := paynet.New(s)
 	if e != api.OK {
 		t.Fatal(e)
 	}
 	return n
 }
 
-func plainly(s *Setup) {}
+func plainly(s *paynet.Setup) {}
 
-func buy(t *testing.T, n *Net, card string, amount int64) string {
+func buy(t *testing.T, n *paynet.Net, card string, amount int64) string {
 	t.Helper()
 	ref, e := n.Purchase(0, acquirer.Purchase{Merchant: "m1", Terminal: "t1", Card: card, Amount: amount, Currency: "EUR", Category: 5411})
 	if e != api.OK {
@@ -54,21 +55,21 @@ func buy(t *testing.T, n *Net, card string, amount int64) string {
 	return ref
 }
 
-func advance(t *testing.T, n *Net, to int) {
+func advance(t *testing.T, n *paynet.Net, to int) {
 	t.Helper()
 	if e := n.Advance(to); e != api.OK || n.Now() != to {
 		t.Error(e, n.Now())
 	}
 }
 
-func holder(t *testing.T, n *Net, card string, balance, held int64) {
+func holder(t *testing.T, n *paynet.Net, card string, balance, held int64) {
 	t.Helper()
 	if b, h, ok := n.Holder(card); b != balance || h != held || !ok {
 		t.Error(b, h, ok)
 	}
 }
 
-func sale(t *testing.T, n *Net, ref string, state int, approved int64) {
+func sale(t *testing.T, n *paynet.Net, ref string, state int, approved int64) {
 	t.Helper()
 	if s, ok := n.Sale(ref); s.State != state || s.Approved != approved || !ok {
 		t.Error(s, ok)
@@ -76,7 +77,7 @@ func sale(t *testing.T, n *Net, ref string, state int, approved int64) {
 }
 
 // sold returns a sale that was captured and cleared as a whole.
-func sold(t *testing.T, n *Net, card string, amount int64) string {
+func sold(t *testing.T, n *paynet.Net, card string, amount int64) string {
 	t.Helper()
 	ref := buy(t, n, card, amount)
 	advance(t, n, n.Now()+10)
@@ -90,22 +91,22 @@ func sold(t *testing.T, n *Net, card string, amount int64) string {
 }
 
 func TestNew(t *testing.T) {
-	second := Bank{Name: "other", Low: "5", High: "5", Cards: 8, Balance: api.MaxAmount}
+	second := paynet.Bank{Name: "other", Low: "5", High: "5", Cards: 8, Balance: api.MaxAmount}
 	for i, c := range []struct {
-		change func(s *Setup)
+		change func(s *paynet.Setup)
 		want   api.Errno
 	}{
-		{plainly, 0}, {func(s *Setup) { s.Banks = append(s.Banks, second) }, 0}, {func(s *Setup) { s.Banks, s.Currency = nil, "" }, api.ErrRange}, {func(s *Setup) { s.Acquirers = nil }, api.ErrRange}, {func(s *Setup) { s.Banks = make([]Bank, 5) }, api.ErrRange}, {func(s *Setup) { s.Acquirers = make([]string, 5) }, api.ErrRange}, {func(s *Setup) { s.Banks[0].Name, s.Currency = "a-b", "" }, api.ErrName},
-		{func(s *Setup) { s.Banks[0].Name = "network" }, api.ErrName}, {func(s *Setup) { s.Acquirers = []string{"homebank", ""} }, api.ErrExists}, {func(s *Setup) { s.Acquirers = []string{"network"} }, api.ErrName}, {func(s *Setup) { s.Currency, s.Banks[0].Cards = "eur", 0 }, api.ErrCurrency}, {func(s *Setup) { s.Banks[0].Cards, s.Tables.Scheme = 0, nil }, api.ErrRange}, {func(s *Setup) { s.Banks[0].Cards = 9 }, api.ErrRange},
-		{func(s *Setup) { s.Banks[0].Balance = -1 }, api.ErrRange}, {func(s *Setup) { s.Banks[0].Balance = api.MaxAmount + 1 }, api.ErrRange}, {func(s *Setup) { s.Tables.Scheme, s.Tolerance.Bps = nil, -1 }, api.ErrNone}, {func(s *Setup) { s.Tolerance.Bps, s.Reasons[0].Code = 10001, "" }, api.ErrRange}, {func(s *Setup) { s.Reasons[0].Code, s.Holidays = "", []int{-1} }, api.ErrName}, {func(s *Setup) { s.Holidays, s.Cutoff = make([]int, 401), -1 }, api.ErrLong},
-		{func(s *Setup) { s.Cutoff, s.Faults = -1, make([]api.Fault, 33) }, api.ErrRange}, {func(s *Setup) { s.Faults, s.Banks[0].Low = make([]api.Fault, 33), "x" }, api.ErrLong}, {func(s *Setup) { s.Latency = 0 }, api.ErrRange}, {func(s *Setup) { s.Banks[0].Low = "x" }, api.ErrFormat}, {func(s *Setup) { s.Timeout = 0 }, api.ErrRange}, {func(s *Setup) { s.Timeout = 100001 }, api.ErrRange}, {func(s *Setup) { s.Timeout = math.MaxInt }, api.ErrRange}, {func(s *Setup) { s.Retry = 0 }, api.ErrRange},
-		{func(s *Setup) { s.Days = 0 }, api.ErrRange}, {func(s *Setup) { s.Banks[0].Daily = -1 }, api.ErrRange}, {func(s *Setup) { s.Banks[0].Limit = -1 }, api.ErrRange}, {func(s *Setup) { s.Banks[0].Each = -1 }, api.ErrRange}, {func(s *Setup) {
-			s.Banks = append(s.Banks, Bank{Name: "other", Low: "4000000", High: "4000009", Cards: 1})
-		}, api.ErrRoute}, {func(s *Setup) { s.Faults = []api.Fault{{Kind: 1, A: 0, B: 3}} }, api.ErrRange}, {func(s *Setup) { s.Faults = []api.Fault{{Kind: 1, A: 0, B: 2, Until: 9}} }, 0},
+		{plainly, 0}, {func(s *paynet.Setup) { s.Banks = append(s.Banks, second) }, 0}, {func(s *paynet.Setup) { s.Banks, s.Currency = nil, "" }, api.ErrRange}, {func(s *paynet.Setup) { s.Acquirers = nil }, api.ErrRange}, {func(s *paynet.Setup) { s.Banks = make([]paynet.Bank, 5) }, api.ErrRange}, {func(s *paynet.Setup) { s.Acquirers = make([]string, 5) }, api.ErrRange}, {func(s *paynet.Setup) { s.Banks[0].Name, s.Currency = "a-b", "" }, api.ErrName},
+		{func(s *paynet.Setup) { s.Banks[0].Name = "network" }, api.ErrName}, {func(s *paynet.Setup) { s.Acquirers = []string{"homebank", ""} }, api.ErrExists}, {func(s *paynet.Setup) { s.Acquirers = []string{"network"} }, api.ErrName}, {func(s *paynet.Setup) { s.Currency, s.Banks[0].Cards = "eur", 0 }, api.ErrCurrency}, {func(s *paynet.Setup) { s.Banks[0].Cards, s.Tables.Scheme = 0, nil }, api.ErrRange}, {func(s *paynet.Setup) { s.Banks[0].Cards = 9 }, api.ErrRange},
+		{func(s *paynet.Setup) { s.Banks[0].Balance = -1 }, api.ErrRange}, {func(s *paynet.Setup) { s.Banks[0].Balance = api.MaxAmount + 1 }, api.ErrRange}, {func(s *paynet.Setup) { s.Tables.Scheme, s.Tolerance.Bps = nil, -1 }, api.ErrNone}, {func(s *paynet.Setup) { s.Tolerance.Bps, s.Reasons[0].Code = 10001, "" }, api.ErrRange}, {func(s *paynet.Setup) { s.Reasons[0].Code, s.Holidays = "", []int{-1} }, api.ErrName}, {func(s *paynet.Setup) { s.Holidays, s.Cutoff = make([]int, 401), -1 }, api.ErrLong},
+		{func(s *paynet.Setup) { s.Cutoff, s.Faults = -1, make([]api.Fault, 33) }, api.ErrRange}, {func(s *paynet.Setup) { s.Faults, s.Banks[0].Low = make([]api.Fault, 33), "x" }, api.ErrLong}, {func(s *paynet.Setup) { s.Latency = 0 }, api.ErrRange}, {func(s *paynet.Setup) { s.Banks[0].Low = "x" }, api.ErrFormat}, {func(s *paynet.Setup) { s.Timeout = 0 }, api.ErrRange}, {func(s *paynet.Setup) { s.Timeout = 100001 }, api.ErrRange}, {func(s *paynet.Setup) { s.Timeout = math.MaxInt }, api.ErrRange}, {func(s *paynet.Setup) { s.Retry = 0 }, api.ErrRange},
+		{func(s *paynet.Setup) { s.Days = 0 }, api.ErrRange}, {func(s *paynet.Setup) { s.Banks[0].Daily = -1 }, api.ErrRange}, {func(s *paynet.Setup) { s.Banks[0].Limit = -1 }, api.ErrRange}, {func(s *paynet.Setup) { s.Banks[0].Each = -1 }, api.ErrRange}, {func(s *paynet.Setup) {
+			s.Banks = append(s.Banks, paynet.Bank{Name: "other", Low: "4000000", High: "4000009", Cards: 1})
+		}, api.ErrRoute}, {func(s *paynet.Setup) { s.Faults = []api.Fault{{Kind: 1, A: 0, B: 3}} }, api.ErrRange}, {func(s *paynet.Setup) { s.Faults = []api.Fault{{Kind: 1, A: 0, B: 2, Until: 9}} }, 0},
 	} {
 		s := setup(t)
 		c.change(&s)
-		if n, e := New(s); e != c.want || (n == nil) != (e != api.OK) {
+		if n, e := paynet.New(s); e != c.want || (n == nil) != (e != api.OK) {
 			t.Error(i, e)
 		}
 	}
@@ -182,7 +183,7 @@ func TestExample(t *testing.T) {
 }
 
 func TestStandIn(t *testing.T) {
-	n := start(t, func(s *Setup) { s.Faults = []api.Fault{{Kind: api.FCut, A: 0, B: 1, From: 0, Until: 100}} })
+	n := start(t, func(s *paynet.Setup) { s.Faults = []api.Fault{{Kind: api.FCut, A: 0, B: 1, From: 0, Until: 100}} })
 	card, _ := n.Card(0, 0)
 	ref := buy(t, n, card, 1000)
 	advance(t, n, 31)
@@ -202,7 +203,7 @@ func TestStandIn(t *testing.T) {
 
 func TestReversals(t *testing.T) {
 	// The replies of the switch are lost for a while: the acquirer reverses.
-	n := start(t, func(s *Setup) { s.Faults = []api.Fault{{Kind: api.FLose, A: 0, B: 2, From: 0, Until: 70}} })
+	n := start(t, func(s *paynet.Setup) { s.Faults = []api.Fault{{Kind: api.FLose, A: 0, B: 2, From: 0, Until: 70}} })
 	card, _ := n.Card(0, 1)
 	ref := buy(t, n, card, 1000)
 	advance(t, n, 59)
@@ -273,8 +274,8 @@ func TestPurchases(t *testing.T) {
 	ref := sold(t, n, token, 700)
 	sale(t, n, ref, 2, 700)
 	holder(t, n, card, 9300, 0)
-	if _, _, ok := n.Holder(token); ok || n.booked[ref+"-1"].Card != card || n.booked[ref+"-1"].Issuer != "homebank" {
-		t.Error(n.booked)
+	if _, _, ok := n.Holder(token); ok || n.Balance("holder:homebank") != -700 {
+		t.Error(n.Balance("holder:homebank"))
 	}
 	if l := n.Sales(); len(l) != 1 || l[0].Purchase.Card != token {
 		t.Error(l)
@@ -302,7 +303,7 @@ func TestAdvance(t *testing.T) {
 }
 
 func TestRejects(t *testing.T) {
-	n := start(t, func(s *Setup) { s.Tolerance = matching.Tolerance{Bps: 1500} })
+	n := start(t, func(s *paynet.Setup) { s.Tolerance = matching.Tolerance{Bps: 1500} })
 	card, _ := n.Card(0, 0)
 	a, b := buy(t, n, card, 1000), buy(t, n, card, 1000)
 	advance(t, n, 10)
@@ -346,7 +347,7 @@ func TestRejects(t *testing.T) {
 }
 
 func TestFiles(t *testing.T) {
-	n := start(t, func(s *Setup) { s.Banks[0].Balance = 1000000 })
+	n := start(t, func(s *paynet.Setup) { s.Banks[0].Balance = 1000000 })
 	card, _ := n.Card(0, 0)
 	e := api.OK
 	cleared := 0
@@ -410,7 +411,7 @@ func TestDisputes(t *testing.T) {
 }
 
 func TestNone(t *testing.T) {
-	var n *Net
+	var n *paynet.Net
 	_, e1 := n.Tokenize("", api.Domain{})
 	_, e2 := n.Purchase(0, acquirer.Purchase{})
 	_, e3 := n.Clear()
@@ -427,7 +428,7 @@ func TestNone(t *testing.T) {
 	if ok1 || ok2 || ok3 || ok4 || n.Now() != 0 || n.Currency() != "" || len(n.Sales()) != 0 || n.Shop("") != 0 || n.Balance("") != 0 || n.Total() != 0 || len(n.Auths()) != 0 || len(n.Positions(0)) != 0 || n.Quiet() || len(n.Log()) != 0 {
 		t.Error("nil network")
 	}
-	z := new(Net)
+	z := new(paynet.Net)
 	z.Advance(5)
 	z.Clear()
 	z.Settle(0)

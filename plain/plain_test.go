@@ -1,20 +1,21 @@
-package plain
+package plain_test
 
 import (
 	"reflect"
 	"testing"
 
 	"cardnet/api"
+	"cardnet/plain"
 )
 
 func TestNumber(t *testing.T) {
 	for s, want := range map[string]int64{"0": 0, "-1": -1, "9223372036854775807": 1<<63 - 1, "-9223372036854775808": -1 << 63} {
-		if n, ok := Number(s); n != want || !ok {
+		if n, ok := plain.Number(s); n != want || !ok {
 			t.Error(s, n, ok)
 		}
 	}
 	for _, s := range []string{"", "-", "+1", "01", "-0", "1 ", "1_0", "0x1", "9223372036854775808"} {
-		if n, ok := Number(s); n != 0 || ok {
+		if n, ok := plain.Number(s); n != 0 || ok {
 			t.Error(s, n, ok)
 		}
 	}
@@ -26,24 +27,24 @@ func TestForms(t *testing.T) {
 		"": {}, "ABC": {true, true, true}, "_a": {false, true, false}, "aaaaaaaaaaaaaaaaa": {}, "a b": {}, "AB1": {true, true, false},
 		"aaaaaaaaaaaaaaaa": {true, true, false}, "\xc3\xa4": {},
 	} {
-		if got := [3]bool{IsName(s), IsId(s), IsCurrency(s)}; got != want {
+		if got := [3]bool{plain.IsName(s), plain.IsId(s), plain.IsCurrency(s)}; got != want {
 			t.Error(s, got)
 		}
 	}
-	if IsDigits("") || !IsDigits("09") || IsDigits("0a") || !IsHex("0f") || IsHex("0F") || Digits(7, 3) != "007" {
+	if plain.IsDigits("") || !plain.IsDigits("09") || plain.IsDigits("0a") || !plain.IsHex("0f") || plain.IsHex("0F") || plain.Digits(7, 3) != "007" {
 		t.Error("digits")
 	}
-	if IsDate(-1) || !IsDate(api.MaxDate) || IsDate(api.MaxDate+1) || IsTime(-1) || !IsTime(api.MaxTime) || IsTime(api.MaxTime+1) {
+	if plain.IsDate(-1) || !plain.IsDate(api.MaxDate) || plain.IsDate(api.MaxDate+1) || plain.IsTime(-1) || !plain.IsTime(api.MaxTime) || plain.IsTime(api.MaxTime+1) {
 		t.Error("dates and times")
 	}
-	if IsAmount(0, 1) || !IsAmount(0, 0) || !IsAmount(api.MaxAmount, 1) || IsAmount(api.MaxAmount+1, 0) {
+	if plain.IsAmount(0, 1) || !plain.IsAmount(0, 0) || !plain.IsAmount(api.MaxAmount, 1) || plain.IsAmount(api.MaxAmount+1, 0) {
 		t.Error("amounts")
 	}
 }
 
 func TestCloneExpr(t *testing.T) {
 	e := api.Expr{Op: api.XNot, Args: []api.Expr{{Op: api.XName, Name: "a"}}}
-	c := CloneExpr(e)
+	c := plain.CloneExpr(e)
 	if !reflect.DeepEqual(c, e) {
 		t.Error(c)
 	}

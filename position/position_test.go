@@ -1,4 +1,4 @@
-package position
+package position_test
 
 import (
 	"math"
@@ -6,6 +6,7 @@ import (
 	"testing"
 
 	"cardnet/api"
+	"cardnet/position"
 )
 
 func eur(n int64) api.Money { return api.Money{Amount: n, Currency: "EUR"} }
@@ -18,8 +19,8 @@ func rt(from, to string, num, den int64) api.Rate {
 	return api.Rate{From: from, To: to, Num: num, Den: den}
 }
 
-func book(t *testing.T) *Book {
-	b, e := New([]string{"c", "a", "b", "d"})
+func book(t *testing.T) *position.Book {
+	b, e := position.New([]string{"c", "a", "b", "d"})
 	if e != api.OK {
 		t.Fatal(e)
 	}
@@ -31,7 +32,7 @@ func TestNew(t *testing.T) {
 		l    []string
 		want api.Errno
 	}{{nil, 0}, {make([]string, 17), api.ErrLong}, {[]string{"a", "a", ""}, api.ErrExists}, {[]string{"a-b"}, api.ErrName}} {
-		if b, e := New(c.l); e != c.want || (b == nil) != (e != api.OK) {
+		if b, e := position.New(c.l); e != c.want || (b == nil) != (e != api.OK) {
 			t.Error(i, e)
 		}
 	}
@@ -136,16 +137,16 @@ func TestSum(t *testing.T) {
 		for _, n := range c.l {
 			l = append(l, pos("", n, "EUR"))
 		}
-		if n := Sum(l, "EUR"); n != c.want {
+		if n := position.Sum(l, "EUR"); n != c.want {
 			t.Error(i, n)
 		}
 	}
 }
 
 func TestNone(t *testing.T) {
-	var b *Book
+	var b *position.Book
 	if l, e := b.Convert(nil, "EUR", ""); len(l) != 0 || e != api.ErrNone || b.Move("a", "b", eur(1)) != e || b.Net("a", "EUR") != 0 || len(b.List()) != 0 || len(b.Currencies()) != 0 {
 		t.Error("nil book")
 	}
-	new(Book).Move("a", "b", eur(1))
+	new(position.Book).Move("a", "b", eur(1))
 }

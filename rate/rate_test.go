@@ -1,10 +1,11 @@
-package rate
+package rate_test
 
 import (
 	"math"
 	"testing"
 
 	"cardnet/api"
+	"cardnet/rate"
 )
 
 func r(from, to string, num, den int64) api.Rate {
@@ -20,7 +21,7 @@ func TestCheck(t *testing.T) {
 		r("USD", "EUR", 1, 0): api.ErrRange, r("USD", "EUR", big+1, 1): api.ErrRange, r("USD", "EUR", 1, big+1): api.ErrRange,
 		r("USD", "EUR", -1, 1): api.ErrRange,
 	} {
-		if e := Check(x); e != want {
+		if e := rate.Check(x); e != want {
 			t.Error(x, e)
 		}
 	}
@@ -28,7 +29,7 @@ func TestCheck(t *testing.T) {
 
 func TestReduce(t *testing.T) {
 	for _, c := range [][4]int64{{6, 4, 3, 2}, {7, 7, 1, 1}, {0, 4, 0, 4}, {4, 0, 4, 0}, {-6, 4, -6, 4}, {5, 3, 5, 3}, {math.MaxInt64, math.MaxInt64, 1, 1}} {
-		if a, b := Reduce(c[0], c[1]); a != c[2] || b != c[3] {
+		if a, b := rate.Reduce(c[0], c[1]); a != c[2] || b != c[3] {
 			t.Error(c, a, b)
 		}
 	}
@@ -36,11 +37,11 @@ func TestReduce(t *testing.T) {
 
 func TestConvert(t *testing.T) {
 	x := r("USD", "JPY", 3021, 20)
-	if m, e := Convert(api.Money{Amount: 1000, Currency: "USD"}, x, api.HalfEven); m != (api.Money{Amount: 151050, Currency: "JPY"}) || e != api.OK {
+	if m, e := rate.Convert(api.Money{Amount: 1000, Currency: "USD"}, x, api.HalfEven); m != (api.Money{Amount: 151050, Currency: "JPY"}) || e != api.OK {
 		t.Error(m, e)
 	}
 	for mode, want := range map[int]int64{api.Down: 1, api.Up: 2, api.HalfUp: 2, api.HalfEven: 2} {
-		if m, e := Convert(api.Money{Amount: 3, Currency: "USD"}, r("USD", "EUR", 1, 2), mode); m.Amount != want || e != api.OK {
+		if m, e := rate.Convert(api.Money{Amount: 3, Currency: "USD"}, r("USD", "EUR", 1, 2), mode); m.Amount != want || e != api.OK {
 			t.Error(mode, m, e)
 		}
 	}
@@ -57,24 +58,24 @@ func TestConvert(t *testing.T) {
 		{api.Money{Currency: "USD"}, x, 0, api.ErrRange},
 		{api.Money{Amount: api.MaxTotal, Currency: "USD"}, x, 1, api.ErrRange},
 	} {
-		if m, e := Convert(c.m, c.x, c.mode); m != (api.Money{}) || e != c.want {
+		if m, e := rate.Convert(c.m, c.x, c.mode); m != (api.Money{}) || e != c.want {
 			t.Error(i, m, e)
 		}
 	}
 }
 
 func TestInverseCrossMarkup(t *testing.T) {
-	if x, e := Inverse(r("USD", "JPY", 6, 4)); x != r("JPY", "USD", 2, 3) || e != api.OK {
+	if x, e := rate.Inverse(r("USD", "JPY", 6, 4)); x != r("JPY", "USD", 2, 3) || e != api.OK {
 		t.Error(x, e)
 	}
-	if x, e := Inverse(r("USD", "USD", 6, 4)); x != (api.Rate{}) || e != api.ErrCurrency {
+	if x, e := rate.Inverse(r("USD", "USD", 6, 4)); x != (api.Rate{}) || e != api.ErrCurrency {
 		t.Error(x, e)
 	}
 	a, b := r("USD", "EUR", 9, 10), r("EUR", "GBP", 5, 6)
-	if x, e := Cross(a, b); x != r("USD", "GBP", 3, 4) || e != api.OK {
+	if x, e := rate.Cross(a, b); x != r("USD", "GBP", 3, 4) || e != api.OK {
 		t.Error(x, e)
 	}
-	if x, e := Cross(r("USD", "EUR", big, 3), r("EUR", "GBP", 3, big)); x != r("USD", "GBP", 1, 1) || e != api.OK {
+	if x, e := rate.Cross(r("USD", "EUR", big, 3), r("EUR", "GBP", 3, big)); x != r("USD", "GBP", 1, 1) || e != api.OK {
 		t.Error(x, e)
 	}
 	for i, c := range []struct {
@@ -85,24 +86,24 @@ func TestInverseCrossMarkup(t *testing.T) {
 		{a, r("EUR", "USD", 1, 1), api.ErrCurrency}, {r("USD", "EUR", big, 1), r("EUR", "GBP", 2, 1), api.ErrRange},
 		{r("USD", "EUR", 1, big), r("EUR", "GBP", 1, 3), api.ErrRange}, {r("USD", "EUR", big, 1), r("EUR", "GBP", big, 1), api.ErrRange},
 	} {
-		if x, e := Cross(c.a, c.b); x != (api.Rate{}) || e != c.want {
+		if x, e := rate.Cross(c.a, c.b); x != (api.Rate{}) || e != c.want {
 			t.Error(i, x, e)
 		}
 	}
 	for bps, want := range map[int]api.Rate{100: r("USD", "EUR", 909, 1000), 0: a, -9999: r("USD", "EUR", 9, 100000), 100000: r("USD", "EUR", 99, 10)} {
-		if x, e := Markup(a, bps); x != want || e != api.OK {
+		if x, e := rate.Markup(a, bps); x != want || e != api.OK {
 			t.Error(bps, x, e)
 		}
 	}
 	for _, bps := range []int{-10000, 100001, math.MinInt, math.MaxInt} {
-		if x, e := Markup(a, bps); x != (api.Rate{}) || e != api.ErrRange {
+		if x, e := rate.Markup(a, bps); x != (api.Rate{}) || e != api.ErrRange {
 			t.Error(bps, x, e)
 		}
 	}
-	if _, e := Markup(r("USD", "EUR", big, 1), 1); e != api.ErrRange {
+	if _, e := rate.Markup(r("USD", "EUR", big, 1), 1); e != api.ErrRange {
 		t.Error(e)
 	}
-	if _, e := Markup(api.Rate{}, -10000); e != api.ErrCurrency {
+	if _, e := rate.Markup(api.Rate{}, -10000); e != api.ErrCurrency {
 		t.Error(e)
 	}
 }
@@ -120,22 +121,22 @@ func TestFind(t *testing.T) {
 		{"USD", "JPY", "EUR", api.Rate{}, api.ErrNone}, {"USD", "GBP", "CHF", api.Rate{}, api.ErrNone},
 		{"CHF", "SEK", "EUR", api.Rate{}, api.ErrRange}, {"USD", "GBP", "USD", api.Rate{}, api.ErrNone},
 	} {
-		if x, e := Find(l, c.from, c.to, c.pivot); x != c.want || e != c.e {
+		if x, e := rate.Find(l, c.from, c.to, c.pivot); x != c.want || e != c.e {
 			t.Error(i, x, e)
 		}
 	}
 	// A stated rate counts before an inverse one, wherever it stands.
-	if x, _ := Find([]api.Rate{r("USD", "EUR", 2, 1), r("EUR", "USD", 3, 1)}, "EUR", "USD", ""); x != r("EUR", "USD", 3, 1) {
+	if x, _ := rate.Find([]api.Rate{r("USD", "EUR", 2, 1), r("EUR", "USD", 3, 1)}, "EUR", "USD", ""); x != r("EUR", "USD", 3, 1) {
 		t.Error(x)
 	}
 }
 
 func TestText(t *testing.T) {
 	x := r("USD", "EUR", 18, 20)
-	if Format(x) != "USD/EUR 18/20" || Format(r("USD", "EUR", 0, 1)) != "" {
-		t.Error(Format(x))
+	if rate.Format(x) != "USD/EUR 18/20" || rate.Format(r("USD", "EUR", 0, 1)) != "" {
+		t.Error(rate.Format(x))
 	}
-	if y, e := Parse("USD/EUR 18/20"); y != x || e != api.OK {
+	if y, e := rate.Parse("USD/EUR 18/20"); y != x || e != api.OK {
 		t.Error(y, e)
 	}
 	for s, want := range map[string]api.Errno{
@@ -144,7 +145,7 @@ func TestText(t *testing.T) {
 		"USD/EUR -1/2": api.ErrRange, "USD/EUR 0/2": api.ErrRange, "usd/EUR 1/2": api.ErrCurrency, "USD/USD 0/2": api.ErrCurrency,
 		"USD/EUR 1099511627777/2": api.ErrRange, "USD/EUR 1/2 ": api.ErrFormat, "USD/EUR_1/2": api.ErrFormat,
 	} {
-		if y, e := Parse(s); y != (api.Rate{}) || e != want {
+		if y, e := rate.Parse(s); y != (api.Rate{}) || e != want {
 			t.Error(s, y, e)
 		}
 	}

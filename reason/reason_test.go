@@ -1,4 +1,4 @@
-package reason
+package reason_test
 
 import (
 	"reflect"
@@ -8,6 +8,7 @@ import (
 	"testing"
 
 	"cardnet/api"
+	"cardnet/reason"
 )
 
 func fraud() api.Reason {
@@ -38,14 +39,14 @@ func TestCheck(t *testing.T) {
 		first.Code = "first"
 		c.change(&r)
 		l := []api.Reason{first, r}
-		if e := Check(l); e != c.want || (Format(l) == "") != (e != api.OK) {
-			t.Error(i, e, Format(l))
+		if e := reason.Check(l); e != c.want || (reason.Format(l) == "") != (e != api.OK) {
+			t.Error(i, e, reason.Format(l))
 		}
-		if x, e, at := Parse(Format(l)); c.want == api.OK && (!reflect.DeepEqual(x, l) || e != api.OK || at != 0) {
+		if x, e, at := reason.Parse(reason.Format(l)); c.want == api.OK && (!reflect.DeepEqual(x, l) || e != api.OK || at != 0) {
 			t.Error(i, x, e, at)
 		}
 	}
-	if Check(numbered(32)) != api.OK || Check(numbered(33)) != api.ErrLong || Check(nil) != api.OK || Check(make([]api.Reason, 33)) != api.ErrLong {
+	if reason.Check(numbered(32)) != api.OK || reason.Check(numbered(33)) != api.ErrLong || reason.Check(nil) != api.OK || reason.Check(make([]api.Reason, 33)) != api.ErrLong {
 		t.Error("numbers of reasons")
 	}
 }
@@ -53,16 +54,16 @@ func TestCheck(t *testing.T) {
 func TestSteps(t *testing.T) {
 	r := fraud()
 	for stage, want := range map[int]int{0: 120, 1: 45, 2: 30, 3: 31} {
-		if n, e := Days(r, stage); n != want || e != api.OK {
+		if n, e := reason.Days(r, stage); n != want || e != api.OK {
 			t.Error(stage, n, e)
 		}
-		if n, e := Due(r, stage, 100); n != 100+want || e != api.OK {
+		if n, e := reason.Due(r, stage, 100); n != 100+want || e != api.OK {
 			t.Error(stage, n, e)
 		}
 	}
 	for _, stage := range []int{-1, 4, 5, 6, 7} {
-		n, e := Days(r, stage)
-		m, f := Due(api.Reason{}, stage, -1)
+		n, e := reason.Days(r, stage)
+		m, f := reason.Due(api.Reason{}, stage, -1)
 		if n != 0 || m != 0 || e != api.ErrState || f != e {
 			t.Error(stage, n, e)
 		}
@@ -71,22 +72,22 @@ func TestSteps(t *testing.T) {
 		days, date int
 		want       api.Errno
 	}{{0, -1, api.ErrRange}, {1001, 0, api.ErrRange}, {1, -1, api.ErrTime}, {1, api.MaxDate, api.ErrTime}, {1000, api.MaxDate - 1000, 0}, {1000, 1 << 62, api.ErrTime}} {
-		n, e := Due(api.Reason{FileDays: c.days}, 0, c.date)
+		n, e := reason.Due(api.Reason{FileDays: c.days}, 0, c.date)
 		if e != c.want || e == api.OK && n != c.date+c.days || e != api.OK && n != 0 {
 			t.Error(i, n, e)
 		}
 	}
-	needs := Needs(r, api.DsChargeback)
-	if !slices.Equal(needs, r.Claim) || !slices.Equal(Needs(r, api.DsRepresented), r.Defence) || len(Needs(r, 0)) != 0 || len(Needs(r, 3)) != 0 {
+	needs := reason.Needs(r, api.DsChargeback)
+	if !slices.Equal(needs, r.Claim) || !slices.Equal(reason.Needs(r, api.DsRepresented), r.Defence) || len(reason.Needs(r, 0)) != 0 || len(reason.Needs(r, 3)) != 0 {
 		t.Error(needs)
 	}
 	needs[0] = "changed"
-	x, ok := Find([]api.Reason{{Code: "x"}, r, {Code: "fraud"}}, "fraud")
+	x, ok := reason.Find([]api.Reason{{Code: "x"}, r, {Code: "fraud"}}, "fraud")
 	if !reflect.DeepEqual(x, fraud()) || !ok {
 		t.Error(x, ok)
 	}
 	x.Claim[0] = "changed"
-	if x, ok := Find([]api.Reason{r}, "none"); !reflect.DeepEqual(x, api.Reason{}) || ok || r.Claim[0] != "letter" {
+	if x, ok := reason.Find([]api.Reason{r}, "none"); !reflect.DeepEqual(x, api.Reason{}) || ok || r.Claim[0] != "letter" {
 		t.Error(x, ok)
 	}
 }
@@ -94,15 +95,15 @@ func TestSteps(t *testing.T) {
 func TestText(t *testing.T) {
 	l := []api.Reason{fraud(), {Code: "late", FileDays: 1, RepresentDays: 2, PrearbDays: 3, AnswerDays: 1000}}
 	const text = "reason fraud 120 45 30 31 claim letter photo defence receipt;\nreason late 1 2 3 1000 claim defence;\n"
-	if Format(l) != text || Format(nil) != "" {
-		t.Error(Format(l))
+	if reason.Format(l) != text || reason.Format(nil) != "" {
+		t.Error(reason.Format(l))
 	}
 	for _, s := range []string{text, "#\n" + strings.ReplaceAll(text, " ", "\t ")} {
-		if x, e, at := Parse(s); !reflect.DeepEqual(x, l) || e != api.OK || at != 0 {
+		if x, e, at := reason.Parse(s); !reflect.DeepEqual(x, l) || e != api.OK || at != 0 {
 			t.Error(x, e, at)
 		}
 	}
-	full := Format(numbered(32))
+	full := reason.Format(numbered(32))
 	for _, c := range []struct {
 		s  string
 		e  api.Errno
@@ -112,11 +113,11 @@ func TestText(t *testing.T) {
 		{"reason a 1 2 3 4 claim x claim", api.ErrFormat, 25}, {"reason a 1 2 3 4 claim x;", api.ErrFormat, 24}, {"reason a 1 2 3 4 claim defence defence;", api.ErrFormat, 31}, {"reason a 1 2 3 4 claim defence x", api.ErrFormat, 32}, {"reason a 1 2 3 4 claim a b c d e f g h a defence;", api.ErrLong, 39}, {"reason a 1 2 3 4 claim defence a a;", api.ErrExists, 33},
 		{"reason a 1 2 3 4 claim defence; reason a 0", api.ErrExists, 39}, {"reason a 1 2 3 4 claim defence; 01", api.ErrFormat, 32}, {full + "reason", api.ErrLong, len(full)}, {full + "x", api.ErrFormat, len(full)}, {strings.Repeat(" ", 4001), api.ErrLong, 0}, {"reason a 1 2 3 4 claim defence;;", api.ErrFormat, 31},
 	} {
-		if x, e, at := Parse(c.s); len(x) != 0 || e != c.e || at != c.at {
+		if x, e, at := reason.Parse(c.s); len(x) != 0 || e != c.e || at != c.at {
 			t.Error(c.s, x, e, at)
 		}
 	}
-	if x, e, at := Parse(full); len(x) != 32 || e != api.OK || at != 0 {
+	if x, e, at := reason.Parse(full); len(x) != 32 || e != api.OK || at != 0 {
 		t.Error(len(x), e, at)
 	}
 }

@@ -1,10 +1,11 @@
-package record
+package record_test
 
 import (
 	"strings"
 	"testing"
 
 	"cardnet/api"
+	"cardnet/record"
 )
 
 func sample() api.Record {
@@ -25,18 +26,18 @@ func TestCheck(t *testing.T) {
 	} {
 		r := sample()
 		c.change(&r)
-		s, e := Encode(r)
-		if Check(r) != c.want || e != c.want || (s == "") != (e != api.OK) || e != api.OK && Debit(r) != 0 {
-			t.Error(i, Check(r), s, e, Debit(r))
+		s, e := record.Encode(r)
+		if record.Check(r) != c.want || e != c.want || (s == "") != (e != api.OK) || e != api.OK && record.Debit(r) != 0 {
+			t.Error(i, record.Check(r), s, e, record.Debit(r))
 		}
-		if x, e := Decode(s); c.want == api.OK && (x != r || e != api.OK) {
+		if x, e := record.Decode(s); c.want == api.OK && (x != r || e != api.OK) {
 			t.Error(i, x, e)
 		}
 	}
 }
 
 func TestDecode(t *testing.T) {
-	if s, e := Encode(sample()); s != text || e != api.OK {
+	if s, e := record.Encode(sample()); s != text || e != api.OK {
 		t.Error(s, e)
 	}
 	for _, c := range []struct {
@@ -47,11 +48,11 @@ func TestDecode(t *testing.T) {
 		{"5411|1", "5411|2", api.ErrFormat}, {"5411|1", "5411|", api.ErrFormat}, {"5411|1", "5411", api.ErrFormat}, {"5411|1", "5411|1|", api.ErrFormat}, {"77|", "78|", api.ErrCard}, {"SHOP1", "SHOP 1", api.ErrName}, {"|1000|", "|-1000|", api.ErrRange}, {"|1000|", "|99999999999999999999|", api.ErrFormat},
 	} {
 		s := strings.Replace(text, c.old, c.new, 1)
-		if r, e := Decode(s); r != (api.Record{}) || e != c.want {
+		if r, e := record.Decode(s); r != (api.Record{}) || e != c.want {
 			t.Error(s, r, e)
 		}
 	}
-	if _, e := Decode(""); e != api.ErrFormat {
+	if _, e := record.Decode(""); e != api.ErrFormat {
 		t.Error(e)
 	}
 }
@@ -59,13 +60,13 @@ func TestDecode(t *testing.T) {
 func TestDebitNameLess(t *testing.T) {
 	for kind, want := range map[int]int64{1: 1000, 2: -1000, 3: -1000, 4: 1000} {
 		r := sample()
-		if r.Kind = kind; Debit(r) != want {
-			t.Error(kind, Debit(r))
+		if r.Kind = kind; record.Debit(r) != want {
+			t.Error(kind, record.Debit(r))
 		}
 	}
 	for kind, want := range map[int]string{0: "", 1: "presentment", 2: "refund", 3: "chargeback", 4: "representment", 5: ""} {
-		if Name(kind) != want {
-			t.Error(kind, Name(kind))
+		if record.Name(kind) != want {
+			t.Error(kind, record.Name(kind))
 		}
 	}
 	rec := func(date int, acquirer, id string) api.Record {
@@ -74,7 +75,7 @@ func TestDebitNameLess(t *testing.T) {
 	l := []api.Record{rec(-1, "z", "z"), rec(1, "a", "b"), rec(1, "a", "c"), rec(1, "b", "a"), rec(2, "", "")}
 	for i, a := range l {
 		for j, b := range l {
-			if Less(a, b) != (i < j) {
+			if record.Less(a, b) != (i < j) {
 				t.Error(i, j)
 			}
 		}

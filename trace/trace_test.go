@@ -1,4 +1,4 @@
-package trace
+package trace_test
 
 import (
 	"math"
@@ -6,31 +6,32 @@ import (
 	"testing"
 
 	"cardnet/api"
+	"cardnet/trace"
 )
 
 func TestReference(t *testing.T) {
 	for s, c := range map[string][3]int{"000203000007": {20, 3, 7}, "999999999999": {99999, 9, 999999}, "000000000001": {0, 0, 1}} {
-		if x, e := Reference(c[0], c[1], c[2]); x != s || e != api.OK {
+		if x, e := trace.Reference(c[0], c[1], c[2]); x != s || e != api.OK {
 			t.Error(c, x, e)
 		}
-		if a, b, n, e := Split(s); [3]int{a, b, n} != c || e != api.OK {
+		if a, b, n, e := trace.Split(s); [3]int{a, b, n} != c || e != api.OK {
 			t.Error(s, a, b, n, e)
 		}
 	}
 	for _, c := range [][3]int{{-1, 3, 7}, {100000, 3, 7}, {20, -1, 7}, {20, 10, 7}, {20, 3, 0}, {20, 3, 1000000}, {20, 3, math.MinInt}} {
-		if s, e := Reference(c[0], c[1], c[2]); s != "" || e != api.ErrRange {
+		if s, e := trace.Reference(c[0], c[1], c[2]); s != "" || e != api.ErrRange {
 			t.Error(c, s, e)
 		}
 	}
 	for s, want := range map[string]api.Errno{"": api.ErrFormat, "00020300000": api.ErrFormat, "0002030000071": api.ErrFormat, "00020300000x": api.ErrFormat, "000203000000": api.ErrRange, "-00203000007": api.ErrFormat} {
-		if a, b, n, e := Split(s); a != 0 || b != 0 || n != 0 || e != want {
+		if a, b, n, e := trace.Split(s); a != 0 || b != 0 || n != 0 || e != want {
 			t.Error(s, a, b, n, e)
 		}
 	}
 }
 
 func TestSource(t *testing.T) {
-	s, e := NewSource(3)
+	s, e := trace.NewSource(3)
 	if e != api.OK {
 		t.Fatal(e)
 	}
@@ -48,11 +49,11 @@ func TestSource(t *testing.T) {
 		t.Error(n, ref, e)
 	}
 	for _, bad := range []int{-1, 10} {
-		if s, e := NewSource(bad); s != nil || e != api.ErrRange {
+		if s, e := trace.NewSource(bad); s != nil || e != api.ErrRange {
 			t.Error(s, e)
 		}
 	}
-	var none *Source
+	var none *trace.Source
 	if n, ref, e := none.Next(0); n != 0 || ref != "" || e != api.ErrNone {
 		t.Error(n, ref, e)
 	}
@@ -69,14 +70,14 @@ func TestKey(t *testing.T) {
 		{420, []api.Element{el(37, "r"), el(56, "s")}, "042/r/s"}, {430, []api.Element{el(37, "r"), el(37, "q"), el(56, "s")}, "042/r/s"}, {800, []api.Element{el(11, "000001")}, "080//"[:4] + "000001/"},
 		{0, nil, "000//"}, {9999, nil, "998//"}, {10, nil, "000//"}, {129, nil, "012//"}, {100, []api.Element{el(11, "t"), el(37, "")}, "010//"}, {-1, nil, ""}, {10000, nil, ""},
 	} {
-		if s := Key(api.Message{Type: c.kind, Elements: c.l}); s != c.want {
+		if s := trace.Key(api.Message{Type: c.kind, Elements: c.l}); s != c.want {
 			t.Error(i, s)
 		}
 	}
 }
 
 func TestWindow(t *testing.T) {
-	w, e := NewWindow(10)
+	w, e := trace.NewWindow(10)
 	if e != api.OK {
 		t.Fatal(e)
 	}
@@ -91,34 +92,34 @@ func TestWindow(t *testing.T) {
 			t.Error(i, s, ok, w.Len())
 		}
 	}
-	w, _ = NewWindow(10)
+	w, _ = trace.NewWindow(10)
 	w.Seen(math.MinInt, "a", "x")
 	if s, ok := w.Seen(math.MaxInt, "a", "y"); s != "" || ok {
 		t.Error(s, ok)
 	}
-	w, _ = NewWindow(10)
+	w, _ = trace.NewWindow(10)
 	w.Seen(100, "a", "x")
 	w.Seen(105, "b", "y")
 	if w.Forget(109) != 0 || w.Forget(110) != 1 || w.Len() != 1 || w.Forget(math.MaxInt) != 1 || w.Len() != 0 {
 		t.Error(w.Len())
 	}
 	for _, bad := range []int{0, -1, api.MaxTime + 1} {
-		if w, e := NewWindow(bad); w != nil || e != api.ErrRange {
+		if w, e := trace.NewWindow(bad); w != nil || e != api.ErrRange {
 			t.Error(w, e)
 		}
 	}
-	if _, e := NewWindow(api.MaxTime); e != api.OK {
+	if _, e := trace.NewWindow(api.MaxTime); e != api.OK {
 		t.Error(e)
 	}
-	var none *Window
+	var none *trace.Window
 	if s, ok := none.Seen(0, "a", "x"); s != "" || ok || none.Forget(0) != 0 || none.Len() != 0 {
 		t.Error("nil window")
 	}
-	new(Window).Seen(0, "a", "x")
+	new(trace.Window).Seen(0, "a", "x")
 }
 
 func TestWindowRoom(t *testing.T) {
-	w, _ := NewWindow(1000)
+	w, _ := trace.NewWindow(1000)
 	for i := range 256 {
 		w.Seen(i, strconv.Itoa(i), "v")
 	}

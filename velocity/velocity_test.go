@@ -1,4 +1,4 @@
-package velocity
+package velocity_test
 
 import (
 	"math"
@@ -6,10 +6,11 @@ import (
 	"testing"
 
 	"cardnet/api"
+	"cardnet/velocity"
 )
 
-func start(t *testing.T) *Windows {
-	w, e := New(100)
+func start(t *testing.T) *velocity.Windows {
+	w, e := velocity.New(100)
 	if e != api.OK {
 		t.Fatal(e)
 	}
@@ -18,7 +19,7 @@ func start(t *testing.T) *Windows {
 
 func TestNew(t *testing.T) {
 	for n, want := range map[int]api.Errno{0: api.ErrRange, 1: 0, 10000000: 0, 10000001: api.ErrRange, -1: api.ErrRange} {
-		if w, e := New(n); e != want || (w == nil) != (e != api.OK) {
+		if w, e := velocity.New(n); e != want || (w == nil) != (e != api.OK) {
 			t.Error(n, e)
 		}
 	}
@@ -89,12 +90,12 @@ func TestRoom(t *testing.T) {
 	if w.Add("k", 99, 1) != api.ErrFull || w.Len() != 1000 || w.Add("k", 100, 1) != api.OK || w.Len() != 501 || w.Count("k", 100, 100) != 501 {
 		t.Error(w.Len())
 	}
-	var none *Windows
+	var none *velocity.Windows
 	if none.Add("k", 1, 1) != api.ErrNone || none.Remove("k", 1, 1) != api.ErrNone || none.Count("k", 1, 1) != 0 || none.Sum("k", 1, 1) != 0 || none.Forget(1) != 0 || none.Len() != 0 {
 		t.Error("nil windows")
 	}
 	if n, ok := none.Last("k"); n != 0 || ok {
 		t.Error(n, ok)
 	}
-	new(Windows).Add("k", 1, 1)
+	new(velocity.Windows).Add("k", 1, 1)
 }

@@ -1,4 +1,4 @@
-package wire
+package wire_test
 
 import (
 	"math"
@@ -6,6 +6,7 @@ import (
 	"testing"
 
 	"cardnet/api"
+	"cardnet/wire"
 )
 
 func TestWriting(t *testing.T) {
@@ -18,7 +19,7 @@ func TestWriting(t *testing.T) {
 		{7, 3, "007", 0}, {0, 1, "0", 0}, {999, 3, "999", 0}, {1000, 3, "", api.ErrRange}, {-1, 3, "", api.ErrRange}, {1, 0, "", api.ErrRange},
 		{1, 16, "", api.ErrRange}, {999999999999999, 15, "999999999999999", 0}, {math.MinInt64, 15, "", api.ErrRange},
 	} {
-		if s, e := Num(c.n, c.width); s != c.want || e != c.e {
+		if s, e := wire.Num(c.n, c.width); s != c.want || e != c.e {
 			t.Error(i, s, e)
 		}
 	}
@@ -32,7 +33,7 @@ func TestWriting(t *testing.T) {
 		{"a\n", 4, "", api.ErrFormat}, {"\x7f", 4, "", api.ErrFormat}, {"a", 0, "", api.ErrRange}, {"a", 256, "", api.ErrRange}, {"\n\n\n", 2, "", api.ErrLong},
 		{strings.Repeat("~", 255), 255, strings.Repeat("~", 255), 0},
 	} {
-		if s, e := Alpha(c.s, c.width); s != c.want || e != c.e {
+		if s, e := wire.Alpha(c.s, c.width); s != c.want || e != c.e {
 			t.Error(i, s, e)
 		}
 	}
@@ -45,54 +46,54 @@ func TestWriting(t *testing.T) {
 		{"ab", 2, "02ab", 0}, {"", 3, "000", 0}, {"x", 1, "", api.ErrRange}, {"x", 4, "", api.ErrRange}, {strings.Repeat("x", 100), 2, "", api.ErrLong},
 		{strings.Repeat("x", 100), 3, "100" + strings.Repeat("x", 100), 0}, {strings.Repeat("x", 256), 3, "", api.ErrLong}, {"\x00\xff", 2, "02\x00\xff", 0},
 	} {
-		if s, e := Var(c.s, c.digits); s != c.want || e != c.e {
+		if s, e := wire.Var(c.s, c.digits); s != c.want || e != c.e {
 			t.Error(i, s, e)
 		}
 	}
-	if Hex("A\x0f\xff") != "410fff" || Hex("") != "" {
-		t.Error(Hex("A\x0f\xff"))
+	if wire.Hex("A\x0f\xff") != "410fff" || wire.Hex("") != "" {
+		t.Error(wire.Hex("A\x0f\xff"))
 	}
-	if s, e := Unhex("410fff"); s != "A\x0f\xff" || e != api.OK {
+	if s, e := wire.Unhex("410fff"); s != "A\x0f\xff" || e != api.OK {
 		t.Error(s, e)
 	}
 	for _, s := range []string{"4", "4G", "4F", "g0", "+1"} {
-		if x, e := Unhex(s); x != "" || e != api.ErrFormat {
+		if x, e := wire.Unhex(s); x != "" || e != api.ErrFormat {
 			t.Error(s, x, e)
 		}
 	}
 }
 
 func TestReading(t *testing.T) {
-	r := NewReader("007ab  03x|yz")
+	r := wire.NewReader("007ab  03x|yz")
 	if r.Num(3) != 7 || r.Alpha(4) != "ab" || r.Left() != 6 || r.End() != api.ErrLong || r.Var(2, 3) != "x|y" || r.Take(1) != "z" || r.Take(0) != "" || r.End() != api.OK || r.Err() != api.OK {
 		t.Error(r.Left(), r.Err())
 	}
 	for i, c := range []struct {
 		s    string
-		read func(r *Reader) bool
+		read func(r *wire.Reader) bool
 		e    api.Errno
 	}{
-		{"12", func(r *Reader) bool { return r.Num(3) == 0 }, api.ErrShort},
-		{"12", func(r *Reader) bool { return r.Num(0) == 0 }, api.ErrRange},
-		{"12", func(r *Reader) bool { return r.Num(16) == 0 }, api.ErrRange},
-		{"-1", func(r *Reader) bool { return r.Num(2) == 0 }, api.ErrFormat},
-		{"ab", func(r *Reader) bool { return r.Alpha(3) == "" }, api.ErrShort},
-		{"ab", func(r *Reader) bool { return r.Alpha(0) == "" }, api.ErrRange},
-		{"ab", func(r *Reader) bool { return r.Alpha(256) == "" }, api.ErrRange},
-		{"a\x1f", func(r *Reader) bool { return r.Alpha(2) == "" }, api.ErrFormat},
-		{"03abc", func(r *Reader) bool { return r.Var(2, 2) == "" }, api.ErrLong},
-		{"02a", func(r *Reader) bool { return r.Var(2, 2) == "" }, api.ErrShort},
-		{"0xab", func(r *Reader) bool { return r.Var(2, 2) == "" }, api.ErrFormat},
-		{"0", func(r *Reader) bool { return r.Var(2, 2) == "" }, api.ErrShort},
-		{"02ab", func(r *Reader) bool { return r.Var(1, 2) == "" }, api.ErrRange},
-		{"02ab", func(r *Reader) bool { return r.Var(4, 2) == "" }, api.ErrRange},
-		{"02ab", func(r *Reader) bool { return r.Var(2, -1) == "" }, api.ErrRange},
-		{"256" + strings.Repeat("x", 256), func(r *Reader) bool { return r.Var(3, 999) == "" }, api.ErrLong},
-		{"ab", func(r *Reader) bool { return r.Take(3) == "" }, api.ErrShort},
-		{"ab", func(r *Reader) bool { return r.Take(-1) == "" }, api.ErrRange},
-		{"ab", func(r *Reader) bool { return r.Take(math.MaxInt) == "" }, api.ErrShort},
+		{"12", func(r *wire.Reader) bool { return r.Num(3) == 0 }, api.ErrShort},
+		{"12", func(r *wire.Reader) bool { return r.Num(0) == 0 }, api.ErrRange},
+		{"12", func(r *wire.Reader) bool { return r.Num(16) == 0 }, api.ErrRange},
+		{"-1", func(r *wire.Reader) bool { return r.Num(2) == 0 }, api.ErrFormat},
+		{"ab", func(r *wire.Reader) bool { return r.Alpha(3) == "" }, api.ErrShort},
+		{"ab", func(r *wire.Reader) bool { return r.Alpha(0) == "" }, api.ErrRange},
+		{"ab", func(r *wire.Reader) bool { return r.Alpha(256) == "" }, api.ErrRange},
+		{"a\x1f", func(r *wire.Reader) bool { return r.Alpha(2) == "" }, api.ErrFormat},
+		{"03abc", func(r *wire.Reader) bool { return r.Var(2, 2) == "" }, api.ErrLong},
+		{"02a", func(r *wire.Reader) bool { return r.Var(2, 2) == "" }, api.ErrShort},
+		{"0xab", func(r *wire.Reader) bool { return r.Var(2, 2) == "" }, api.ErrFormat},
+		{"0", func(r *wire.Reader) bool { return r.Var(2, 2) == "" }, api.ErrShort},
+		{"02ab", func(r *wire.Reader) bool { return r.Var(1, 2) == "" }, api.ErrRange},
+		{"02ab", func(r *wire.Reader) bool { return r.Var(4, 2) == "" }, api.ErrRange},
+		{"02ab", func(r *wire.Reader) bool { return r.Var(2, -1) == "" }, api.ErrRange},
+		{"256" + strings.Repeat("x", 256), func(r *wire.Reader) bool { return r.Var(3, 999) == "" }, api.ErrLong},
+		{"ab", func(r *wire.Reader) bool { return r.Take(3) == "" }, api.ErrShort},
+		{"ab", func(r *wire.Reader) bool { return r.Take(-1) == "" }, api.ErrRange},
+		{"ab", func(r *wire.Reader) bool { return r.Take(math.MaxInt) == "" }, api.ErrShort},
 	} {
-		r := NewReader(c.s)
+		r := wire.NewReader(c.s)
 		if !c.read(r) || r.Err() != c.e || r.End() != c.e || r.Left() != len(c.s) {
 			t.Error(i, r.Err(), r.Left())
 		}
@@ -101,13 +102,13 @@ func TestReading(t *testing.T) {
 			t.Error(i, r.Err(), r.Left())
 		}
 	}
-	if s := NewReader("255"+strings.Repeat("x", 255)).Var(3, 255); len(s) != 255 {
+	if s := wire.NewReader("255"+strings.Repeat("x", 255)).Var(3, 255); len(s) != 255 {
 		t.Error(len(s))
 	}
-	if NewReader("  ").Alpha(2) != "" {
+	if wire.NewReader("  ").Alpha(2) != "" {
 		t.Error("spaces")
 	}
-	var none *Reader
+	var none *wire.Reader
 	if none.Num(1) != 0 || none.Alpha(1) != "" || none.Var(2, 1) != "" || none.Take(1) != "" || none.Left() != 0 || none.Err() != api.ErrNone || none.End() != api.ErrNone {
 		t.Error("nil reader")
 	}
