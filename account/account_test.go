@@ -155,3 +155,47 @@ func TestNone(t *testing.T) {
 	state(t, a, 0, 0, 0)
 	new(account.Account).Force("x", 1)
 }
+
+// TestExactBounds uses exactly what is permitted.
+func TestExactBounds(t *testing.T) {
+	a := open(t, 1000, 0)
+	if n, e := a.HoldUpTo("h", 2000, 1000); n != 1000 || e != api.OK {
+		t.Error(n, e)
+	}
+	if e := a.Release("h", 1); e != api.OK {
+		t.Error(e)
+	}
+	if e := a.Force("h", api.MaxAmount-999); e != api.OK {
+		t.Error(e)
+	}
+	if n, _ := a.Open("h"); n != api.MaxAmount || a.Force("h", 1) != api.ErrRange {
+		t.Error(n)
+	}
+	rich := open(t, api.MaxAmount, api.MaxAmount)
+	rich.Hold("r", 1)
+	if rich.Raise("r", api.MaxAmount-1) != api.OK || rich.Raise("r", 1) != api.ErrRange {
+		t.Error("Raise to the greatest hold")
+	}
+	for _, sign := range []int64{1, -1} {
+		b := open(t, 0, 0)
+		for range api.MaxTotal / api.MaxAmount {
+			b.Post(sign * api.MaxAmount)
+		}
+		rest := api.MaxTotal - sign*b.Balance()
+		if b.Post(sign*(rest+1)) != api.ErrRange || b.Post(sign*rest) != api.OK || b.Balance() != sign*api.MaxTotal || b.Post(sign) != api.ErrRange {
+			t.Error(sign, b.Balance())
+		}
+		b.Force("c", 1)
+		if e := b.Capture("c", 0, 1); sign < 0 && e != api.ErrRange || sign > 0 && e != api.OK {
+			t.Error(sign, e)
+		}
+	}
+	c := open(t, 0, 0)
+	for range api.MaxTotal / api.MaxAmount {
+		c.Post(-api.MaxAmount)
+	}
+	c.Force("c", 1)
+	if rest := api.MaxTotal + c.Balance(); c.Capture("c", 1, rest) != api.OK || c.Balance() != -api.MaxTotal {
+		t.Error(c.Balance())
+	}
+}

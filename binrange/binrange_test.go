@@ -133,3 +133,57 @@ func TestText(t *testing.T) {
 		}
 	}
 }
+
+func TestForms(t *testing.T) {
+	good := rg("40", "41")
+	for _, c := range [][2]string{{"4x", "41"}, {"40", "4x"}, {"x0", "41"}, {"", "41"}, {"40", ""}, {"40", "410"}, {"400", "41"}, {"01234567890", "12345678901"}, {"42", "41"}} {
+		bad := rg(c[0], c[1])
+		want := api.ErrFormat
+		if c[0] == "42" {
+			want = api.ErrRange
+		}
+		if e := binrange.Check([]api.Range{good, bad}); e != want {
+			t.Error(c, e)
+		}
+		for _, other := range []api.Range{rg("4", "4"), good, rg("0", "9"), rg("0000000000", "9999999999")} {
+			if binrange.Overlap(bad, other) || binrange.Overlap(other, bad) {
+				t.Error(c, other)
+			}
+		}
+	}
+}
+
+func TestMostSpecific(t *testing.T) {
+	n, _ := pan.Make("400001", 1, 16)
+	l := []api.Range{full("400000", "400999", "three", "x"), full("4000", "4099", "two", "x"), full("4", "4", "one", "x")}
+	for range 3 {
+		if r, ok := binrange.Find(l, n); r.Issuer != "three" || !ok {
+			t.Error(r)
+		}
+		l = append(l[1:], l[0])
+	}
+	// Ranges of different lengths are no neighbours, although one number follows the other.
+	two := []api.Range{rg("9", "9"), rg("10", "10")}
+	if l, e := binrange.Merge(two); len(l) != 2 || e != api.OK {
+		t.Error(l, e)
+	}
+}
+
+func TestTextBounds(t *testing.T) {
+	line := "4-4 a b;"
+	long := line + strings.Repeat(" ", 4000-len(line))
+	if l, e, _ := binrange.Parse(long); len(l) != 1 || e != api.OK {
+		t.Error(l, e)
+	}
+	if l, e, at := binrange.Parse(long + " "); len(l) != 0 || e != api.ErrLong || at != 0 {
+		t.Error(l, e, at)
+	}
+	for s, want := range map[string]int{"4 #x": 4, "4 #": 3, "4-4 a b#": 8, "4-4 a b #\n ": 11} {
+		if l, e, at := binrange.Parse(s); len(l) != 0 || e != api.ErrFormat || at != want {
+			t.Error(s, l, e, at)
+		}
+	}
+	if l, e, _ := binrange.Parse(line + "#"); len(l) != 1 || e != api.OK {
+		t.Error(l, e)
+	}
+}

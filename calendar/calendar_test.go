@@ -86,7 +86,7 @@ func TestDayStart(t *testing.T) {
 func TestParse(t *testing.T) {
 	for s, want := range map[string]api.Errno{
 		"": api.ErrShort, "1970-01-0": api.ErrShort, "1970-01-011": api.ErrLong, "1970/01-01": api.ErrFormat, "1970-01/01": api.ErrFormat,
-		"197a-01-01": api.ErrFormat, "1970-01--1": api.ErrFormat, "1970-13-01": api.ErrRange, "1969-12-31": api.ErrRange, "2243-10-17": api.ErrRange,
+		"197a-01-01": api.ErrFormat, "1970-x1-01": api.ErrFormat, "1970-0x-01": api.ErrFormat, "1970-01-x1": api.ErrFormat, "1970-01-0x": api.ErrFormat, "1970-01--1": api.ErrFormat, "1970-13-01": api.ErrRange, "1969-12-31": api.ErrRange, "2243-10-17": api.ErrRange,
 		"0000-00-00": api.ErrRange, "+970-01-01": api.ErrFormat,
 	} {
 		if d, e := calendar.Parse(s); d != 0 || e != want {

@@ -21,6 +21,11 @@ func TestMake(t *testing.T) {
 	if s, e := cryptogram.Make(7, card, 999999, api.Money{Amount: -5, Currency: "EUR"}, ""); s != keyed.Text(keyed.Mac(keyed.Derive(7, card), "999999/-5/EUR/")) || e != api.OK {
 		t.Error(s, e)
 	}
+	for _, nonce := range []string{"!", "~", "!~345678"} {
+		if s, e := cryptogram.Make(7, card, 1, hundred, nonce); s != keyed.Text(keyed.Mac(keyed.Derive(7, card), "1/100/EUR/"+nonce)) || e != api.OK {
+			t.Error(nonce, s, e)
+		}
+	}
 	for i, c := range []struct {
 		token   string
 		counter int

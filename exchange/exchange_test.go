@@ -146,3 +146,36 @@ func TestNone(t *testing.T) {
 		t.Error("a time that is none")
 	}
 }
+
+func TestPresentTime(t *testing.T) {
+	x := start(t)
+	long := strings.Repeat("x", 4000)
+	x.Begin(10, "a", "")
+	x.Begin(20, "b", "")
+	if n, e := x.Reply(25, "a", long); n != 1 || e != api.OK {
+		t.Error(n, e)
+	}
+	if s, e := x.Result("a"); s != long || e != api.OK {
+		t.Error(len(s), e)
+	}
+	if n, ok := x.Next(); n != 50 || !ok {
+		t.Error("an answered request has no deadline", n, ok)
+	}
+	if x.Begin(24, "c", "") != api.ErrTime || len(x.Lost(24)) != 0 {
+		t.Error("Reply sets the present time")
+	}
+	// What is late and then reported is lost once.
+	if n, e := x.Reply(60, "b", "late"); n != 2 || e != api.OK {
+		t.Error(n, e)
+	}
+	x.Begin(61, "d", "")
+	if n, ok := x.Next(); n != 50 || !ok || !slices.Equal(x.Waiting(), []string{"d"}) {
+		t.Error(n, ok, x.Waiting())
+	}
+	if l := x.Lost(62); !slices.Equal(l, []string{"b"}) {
+		t.Error(l)
+	}
+	if n, e := x.Reply(63, "b", "again"); n != 2 || e != api.OK || len(x.Lost(63)) != 0 {
+		t.Error(n, e)
+	}
+}

@@ -26,6 +26,8 @@ func TestScan(t *testing.T) {
 		"0 9007199254740992":        {no(0, 0), no(1<<53, 2), end(18)},
 		"\"\"":                      {txt("", 0), end(2)},
 		"aaaaaaaaaaaaaaaa":          {nm("aaaaaaaaaaaaaaaa", 0), end(16)},
+		"azAZ z Z A":                {nm("azAZ", 0), nm("z", 5), nm("Z", 7), nm("A", 9), end(10)},
+		"9 190":                     {no(9, 0), no(190, 2), end(5)},
 	} {
 		if l, e, at := lexer.Scan(s); !slices.Equal(l, want) || e != api.OK || at != 0 {
 			t.Error(s, l, e, at)

@@ -154,3 +154,54 @@ func TestRoom(t *testing.T) {
 		t.Error(n, ok)
 	}
 }
+
+func TestNow(t *testing.T) {
+	l, _ := link.New(3, 5, []api.Fault{fault(api.FCut, 0, 1, 0, 100, 0)})
+	l.Send(50, 1, 2, "a")
+	if n, e := l.Send(49, 1, 2, "b"); n != 0 || e != api.ErrTime {
+		t.Error(n, e)
+	}
+	l.Send(60, 2, 1, "c")
+	l.Send(60, 0, 2, "d")
+	l.Send(60, 2, 0, "e")
+	if n, ok := l.Next(); n != 55 || !ok {
+		t.Error(n, ok)
+	}
+	if n := l.Drop(2); n != 2 {
+		t.Error(n)
+	}
+	if n, ok := l.Next(); n != 65 || !ok {
+		t.Error(n, ok)
+	}
+	if s := texts(l.Receive(100)); s != "ce" {
+		t.Error(s)
+	}
+	for i, c := range [][2]int{{0, 2}, {2, 0}, {1, 2}, {2, 1}} {
+		if l.Cut(50, c[0], c[1]) {
+			t.Error(i)
+		}
+	}
+	if !l.Cut(50, 0, 1) || !l.Cut(50, 1, 0) {
+		t.Error("Cut")
+	}
+}
+
+// TestRoomAgain uses the room of what has arrived or was dropped.
+func TestRoomAgain(t *testing.T) {
+	l, _ := link.New(3, 5, nil)
+	for round := range 4 {
+		for i := range 256 {
+			if _, e := l.Send(round*10, 0, 1+i%2, "a"); e != api.OK {
+				t.Fatal(round, i, e)
+			}
+		}
+		if _, e := l.Send(round*10, 0, 1, "a"); e != api.ErrFull {
+			t.Error(e)
+		}
+		if round%2 == 0 {
+			l.Receive(round*10 + 5)
+		} else if l.Drop(1)+l.Drop(2) != 256 {
+			t.Error("Drop")
+		}
+	}
+}

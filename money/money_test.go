@@ -64,6 +64,9 @@ func TestScale(t *testing.T) {
 		{1001, -1, 4, [4]int64{-250, -251, -250, -250}},
 		{-1003, -1, 4, [4]int64{250, 251, 251, 251}},
 		{0, -5, 3, [4]int64{}},
+		{1000, 1, 3, [4]int64{333, 334, 333, 333}},
+		{5, 1, 4, [4]int64{1, 2, 1, 1}},
+		{7, -1 << 40, 1, [4]int64{-7 << 40, -7 << 40, -7 << 40, -7 << 40}},
 		{api.MaxTotal, 1 << 40, 1 << 40, [4]int64{api.MaxTotal, api.MaxTotal, api.MaxTotal, api.MaxTotal}},
 	} {
 		for mode := api.Down; mode <= api.HalfEven; mode++ {
@@ -97,6 +100,7 @@ func TestSplit(t *testing.T) {
 	}{
 		{100, []int64{1, 1, 1}, []int64{34, 33, 33}},
 		{5, []int64{1, 0, 2}, []int64{2, 0, 3}},
+		{0, []int64{7, 1}, []int64{0, 0}},
 		{-5, []int64{1, 0, 2}, []int64{-2, 0, -3}},
 		{10, []int64{3, 3, 4}, []int64{3, 3, 4}},
 		{11, []int64{1, 5, 5}, []int64{1, 5, 5}},
@@ -180,7 +184,7 @@ func TestText(t *testing.T) {
 		"": api.ErrShort, "01.00 USD": api.ErrFormat, "-0.00 USD": api.ErrFormat, "1.0 USD": api.ErrFormat, "1.000 USD": api.ErrFormat,
 		"1 USD": api.ErrFormat, ".50 USD": api.ErrFormat, "1.00  USD": api.ErrFormat, "1.00 USD ": api.ErrFormat, "1.5 JPY": api.ErrFormat,
 		"-0 JPY": api.ErrFormat, "00 JPY": api.ErrFormat, "--1 JPY": api.ErrFormat, "1.00 usd": api.ErrFormat, " 1.00 USD": api.ErrFormat,
-		"1.-0 USD": api.ErrFormat, "1..0 USD": api.ErrFormat, "USD": api.ErrFormat, " USD": api.ErrFormat,
+		"1.-0 USD": api.ErrFormat, "1..0 USD": api.ErrFormat, "USD": api.ErrFormat, " USD": api.ErrFormat, "1 usd": api.ErrFormat, "1": api.ErrFormat,
 		"45035996273704.97 USD": api.ErrRange, "-45035996273704.97 USD": api.ErrRange, "99999999999999999999999 JPY": api.ErrRange,
 	} {
 		if x, e := money.Parse(s); x != (api.Money{}) || e != want {

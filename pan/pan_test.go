@@ -10,7 +10,7 @@ import (
 )
 
 func TestLuhn(t *testing.T) {
-	for s, want := range map[string]bool{"79927398713": true, "79927398710": false, "": false, "0": true, "18": true, "81": false, "4111111111111111": true, "411111111111111a": false, "0\xff": false, "\u0660": false, strings.Repeat("0", 100): true} {
+	for s, want := range map[string]bool{"79927398713": true, "79927398710": false, "": false, "0": true, "18": true, "81": false, "4111111111111111": true, "411111111111111a": false, "0\xff": false, "&": false, ":": false, "\u0660": false, strings.Repeat("0", 100): true} {
 		if pan.Luhn(s) != want {
 			t.Error(s)
 		}
@@ -103,7 +103,7 @@ func TestMaskWithinGroup(t *testing.T) {
 	}{
 		{"4000000000000077", "399999", "400000", true}, {"4000000000000077", "400000", "400000", true}, {"41", "40", "40", false}, {"41", "42", "43", false},
 		{"41", "4", "40", false}, {"41", "", "", false}, {"4", "40", "41", false}, {"", "", "", false}, {"41", "4a", "42", false}, {"41", "40", "4b", false},
-		{"4x", "4", "4", false}, {"41", "41", "41", true}, {"45", "46", "44", false},
+		{"4x", "4", "4", false}, {"45", "4/", "46", false}, {"45", "44", "4:", false}, {"41", "41", "41", true}, {"45", "46", "44", false},
 	} {
 		if pan.Within(c.s, c.low, c.high) != c.want {
 			t.Error(i)
@@ -119,6 +119,12 @@ func TestMaskWithinGroup(t *testing.T) {
 func TestStrip(t *testing.T) {
 	for _, s := range []string{"4000-0000 0000 0077", "4000000000000077", "4-0-0-0-0-0-0-0-0-0-0-0-0-0-7-7", pan.Group("4000000000000077")} {
 		if x, e := pan.Strip(s); x != "4000000000000077" || e != api.OK {
+			t.Error(s, x, e)
+		}
+	}
+	for n := range 100 {
+		s, _ := pan.Make("49", n*1234567, 19)
+		if x, e := pan.Strip(pan.Group(s)); x != s || e != api.OK {
 			t.Error(s, x, e)
 		}
 	}

@@ -78,6 +78,12 @@ func TestInverseCrossMarkup(t *testing.T) {
 	if x, e := rate.Cross(r("USD", "EUR", big, 3), r("EUR", "GBP", 3, big)); x != r("USD", "GBP", 1, 1) || e != api.OK {
 		t.Error(x, e)
 	}
+	if x, e := rate.Cross(r("USD", "EUR", big/2, 1), r("EUR", "GBP", 2, big-1)); x != r("USD", "GBP", big, big-1) || e != api.OK {
+		t.Error(x, e)
+	}
+	if x, e := rate.Cross(r("USD", "EUR", 3, big/2), r("EUR", "GBP", 1, 2)); x != r("USD", "GBP", 3, big) || e != api.OK {
+		t.Error(x, e)
+	}
 	for i, c := range []struct {
 		a, b api.Rate
 		want api.Errno
@@ -118,7 +124,7 @@ func TestFind(t *testing.T) {
 		{"USD", "GBP", "EUR", r("USD", "GBP", 3, 4), 0}, {"EUR", "USD", "EUR", r("EUR", "USD", 10, 9), 0},
 		{"USD", "EUR", "", r("USD", "EUR", 9, 10), 0}, {"EUR", "GBP", "", r("EUR", "GBP", 10, 12), 0},
 		{"EUR", "EUR", "USD", api.Rate{}, api.ErrCurrency}, {"x", "x", "", api.Rate{}, api.ErrCurrency},
-		{"USD", "JPY", "EUR", api.Rate{}, api.ErrNone}, {"USD", "GBP", "CHF", api.Rate{}, api.ErrNone},
+		{"USD", "JPY", "EUR", api.Rate{}, api.ErrNone}, {"JPY", "USD", "EUR", api.Rate{}, api.ErrNone}, {"USD", "GBP", "CHF", api.Rate{}, api.ErrNone},
 		{"CHF", "SEK", "EUR", api.Rate{}, api.ErrRange}, {"USD", "GBP", "USD", api.Rate{}, api.ErrNone},
 	} {
 		if x, e := rate.Find(l, c.from, c.to, c.pivot); x != c.want || e != c.e {

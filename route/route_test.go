@@ -29,7 +29,7 @@ func TestNew(t *testing.T) {
 		want     api.Errno
 	}{
 		{ranges, backups, 1, 0}, {nil, nil, 100, 0}, {[]api.Range{{}}, []route.Backup{{}}, 0, api.ErrFormat}, {ranges, []route.Backup{{"-", "a"}}, 0, api.ErrName}, {ranges, []route.Backup{{"homebank", ""}}, 0, api.ErrName},
-		{ranges, []route.Backup{{"none", "none"}}, 0, api.ErrNone}, {ranges, []route.Backup{{"homebank", "homebank"}}, 0, api.ErrRange}, {ranges, []route.Backup{backups[0], backups[1], backups[0]}, 0, api.ErrExists},
+		{ranges, []route.Backup{{"none", "none"}}, 0, api.ErrNone}, {ranges, []route.Backup{{"homebank", "homebank"}}, 1, api.ErrRange}, {ranges, []route.Backup{backups[0], backups[1], backups[0]}, 0, api.ErrExists},
 		{ranges, backups, 0, api.ErrRange}, {ranges, backups, 101, api.ErrRange},
 	} {
 		if r, e := route.New(c.l, c.b, c.failures); e != c.want || (r == nil) != (e != api.OK) {

@@ -139,3 +139,23 @@ func TestWindowRoom(t *testing.T) {
 		t.Error("the entry 3 was removed")
 	}
 }
+
+func TestBounds(t *testing.T) {
+	for _, sender := range []int{0, 9} {
+		s, e := trace.NewSource(sender)
+		if _, ref, code := s.Next(0); e != api.OK || code != api.OK || ref != "00000"+strconv.Itoa(sender)+"000001" {
+			t.Error(sender, ref, e, code)
+		}
+	}
+	w, e := trace.NewWindow(1)
+	if e != api.OK {
+		t.Fatal(e)
+	}
+	w.Seen(5, "a", "x")
+	if _, ok := w.Seen(5, "a", "y"); !ok {
+		t.Error("an entry of the same time is remembered")
+	}
+	if _, ok := w.Seen(6, "a", "y"); ok {
+		t.Error("after a second it is not")
+	}
+}

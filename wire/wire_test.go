@@ -63,6 +63,35 @@ func TestWriting(t *testing.T) {
 	}
 }
 
+// TestBounds writes and reads fields of the least and the greatest widths and lengths.
+func TestBounds(t *testing.T) {
+	for _, width := range []int{1, 15} {
+		s, e := wire.Num(7, width)
+		if r := wire.NewReader(s); len(s) != width || e != api.OK || r.Num(width) != 7 || r.End() != api.OK {
+			t.Error(s, e)
+		}
+	}
+	for _, width := range []int{1, 255} {
+		s, e := wire.Alpha("a", width)
+		if r := wire.NewReader(s); len(s) != width || e != api.OK || r.Alpha(width) != "a" || r.End() != api.OK {
+			t.Error(s, e)
+		}
+	}
+	for length, digits := range map[int]int{0: 2, 99: 2, 100: 3, 255: 3} {
+		text := strings.Repeat("x", length)
+		s, e := wire.Var(text, digits)
+		if r := wire.NewReader(s); len(s) != length+digits || e != api.OK || r.Var(digits, length) != text || r.End() != api.OK {
+			t.Error(s, e)
+		}
+	}
+	for b := range 256 {
+		s := string([]byte{byte(b)})
+		if x, e := wire.Unhex(wire.Hex(s)); x != s || e != api.OK {
+			t.Error(b, x, e)
+		}
+	}
+}
+
 func TestReading(t *testing.T) {
 	r := wire.NewReader("007ab  03x|yz")
 	if r.Num(3) != 7 || r.Alpha(4) != "ab" || r.Left() != 6 || r.End() != api.ErrLong || r.Var(2, 3) != "x|y" || r.Take(1) != "z" || r.Take(0) != "" || r.End() != api.OK || r.Err() != api.OK {
