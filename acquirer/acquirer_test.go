@@ -304,3 +304,58 @@ func TestFiles(t *testing.T) {
 	}
 	next(t, none, 0, false)
 }
+
+func TestBounds(t *testing.T) {
+	h := start(t)
+	for i, c := range []struct {
+		change func(p *acquirer.Purchase)
+		want   api.Errno
+	}{
+		{func(p *acquirer.Purchase) { p.Terminal = "!" }, 0}, {func(p *acquirer.Purchase) { p.Terminal = "a ~" }, 0}, {func(p *acquirer.Purchase) { p.Terminal = "12345678" }, 0}, {func(p *acquirer.Purchase) { p.Terminal = "a\x7fb" }, api.ErrName}, {func(p *acquirer.Purchase) { p.Terminal = "a\x1fb" }, api.ErrName}, {func(p *acquirer.Purchase) { p.Card = strings.Repeat("1", 19) }, 0}, {func(p *acquirer.Purchase) { p.Card = strings.Repeat("1", 12) }, 0},
+		{func(p *acquirer.Purchase) { p.Least = p.Amount }, 0}, {func(p *acquirer.Purchase) { p.Category = 1 }, 0}, {func(p *acquirer.Purchase) { p.Category = 9999 }, 0}, {func(p *acquirer.Purchase) { p.Amount = api.MaxAmount }, 0}, {func(p *acquirer.Purchase) { p.Amount = 1 }, 0},
+	} {
+		p := buy(1000)
+		c.change(&p)
+		_, m, e := h.Purchase(i, p)
+		if e != c.want || e == api.OK && message.Check(m) != api.OK {
+			t.Error(i, e, m)
+		}
+	}
+	ref, _, _ := h.Purchase(50, buy(9))
+	if e := h.Receive(50, reply(110, ref, "10", "4", "000000000001")); e != api.OK {
+		t.Error(e)
+	}
+	state(t, h, ref, 2, 1, 0, 0)
+}
+
+// TestPresentTime lets each call move the present time.
+func TestPresentTime(t *testing.T) {
+	h := start(t)
+	a, b := sell(t, h, 0, 1000), sell(t, h, 0, 1000)
+	at := 10
+	past := func(what string) {
+		t.Helper()
+		if _, _, e := h.Purchase(at-1, buy(1)); e != api.ErrTime {
+			t.Error(what, e)
+		}
+		at += 10
+	}
+	h.Cancel(at, a)
+	past("Cancel")
+	h.Poll(at)
+	past("Poll")
+	h.Capture(at, b, 1000, true)
+	past("Capture")
+	if e := h.Refund(at, b, 1000); e != api.OK {
+		t.Error(e)
+	}
+	past("Refund")
+	h.Purchase(at, buy(1))
+	past("Purchase")
+	h.Receive(at, reply(110, b, "00"))
+	past("Receive")
+	h.Batch(1)
+	if _, _, e := h.Purchase(at-10, buy(1)); e != api.OK {
+		t.Error("a file has no time", e)
+	}
+}

@@ -86,7 +86,7 @@ func TestBalanced(t *testing.T) {
 		want bool
 	}{
 		{assess.Result{}, true}, {assess.Result{Cardholder: -3, Issuer: 1, Acquirer: 1, Shop: 1}, true}, {assess.Result{Cardholder: -3, Issuer: 1, Acquirer: 1, Shop: 1, Network: 1}, false}, {assess.Result{Cardholder: api.MaxTotal, Network: -api.MaxTotal}, true}, {assess.Result{Cardholder: api.MaxTotal + 1, Network: -api.MaxTotal - 1}, false},
-		{assess.Result{Cardholder: math.MinInt64, Issuer: math.MinInt64}, false}, {assess.Result{Interchange: api.FeeLine{Amount: math.MaxInt64}}, true},
+		{assess.Result{Cardholder: math.MinInt64, Issuer: math.MinInt64}, false}, {assess.Result{Cardholder: api.MaxTotal + 1, Issuer: -api.MaxTotal, Shop: -1}, false}, {assess.Result{Cardholder: -api.MaxTotal - 1, Issuer: api.MaxTotal, Shop: 1}, false}, {assess.Result{Interchange: api.FeeLine{Amount: math.MaxInt64}}, true},
 	} {
 		if assess.Balanced(c.x) != c.want {
 			t.Error(i)

@@ -170,3 +170,22 @@ func TestText(t *testing.T) {
 		}
 	}
 }
+
+func TestBounds(t *testing.T) {
+	a := thousand(t)
+	if x, e := auth.Raise(a, 1, api.MaxTime); x.Until != api.MaxTime || e != api.OK {
+		t.Error(x, e)
+	}
+	if x, n, e := auth.Reverse(a, 1000); n != 1000 || x.State != api.AuthReversed || e != api.OK {
+		t.Error(x, n, e)
+	}
+	if x, used, _, e := auth.Clear(a, api.MaxAmount, false); used != 1000 || x.State != api.AuthCleared || e != api.OK {
+		t.Error(x, used, e)
+	}
+	if x, n, e := auth.Expire(a, math.MaxInt); n != 1000 || x.State != api.AuthExpired || e != api.OK {
+		t.Error(x, n, e)
+	}
+	if x, e := auth.New("a", "EUR", api.MaxAmount, api.MaxTime-1, api.MaxTime); auth.Open(x) != api.MaxAmount || e != api.OK {
+		t.Error(x, e)
+	}
+}

@@ -227,6 +227,8 @@ func TestReversals(t *testing.T) {
 	handle(t, s, 10, "shopbank", reversal(420, "000203000008", r1), "shopbank 430 000008"+r1+" 00 0001 ;")
 	handle(t, s, 11, "shopbank", request(r1, 5), "shopbank 110 000001 05 0005 ;")
 	decided(t, s, r1, "05", 4)
+	// No route was chosen, so that nobody is told of another reversal.
+	handle(t, s, 11, "shopbank", reversal(420, "000203000007", r1), "shopbank 430 000007"+r1+" 00 0001 ;")
 	next(t, s, 0, false, 0)
 	// A reversal of a purchase that waits lets the issuer decide, and is passed on.
 	m := request(r2, 5)
@@ -272,7 +274,7 @@ func TestTokens(t *testing.T) {
 	if len(out) != 1 || value(out[0].Message, 2) != tok {
 		t.Error(out)
 	}
-	handle(t, s, 12, "shopbank", reversal(420, "000203000009", r1), "shopbank 430 000009"+r1+" 00 0001 ;")
+	handle(t, s, 12, "shopbank", with(reversal(420, "000203000009", r1), "2", tok), "shopbank 430 000009"+r1+" 00 0001 ;")
 	if out := s.Poll(12); len(out) != 1 || value(out[0].Message, 2) != card {
 		t.Error(out)
 	}
@@ -301,5 +303,33 @@ func TestNone(t *testing.T) {
 	out[0].Message.Elements[0].Value = "changed"
 	if out, _ = s.Handle(1, "homebank", answer(request(r1, 1), "00")); value(out[0].Message, 2) != card {
 		t.Error("shared memory")
+	}
+}
+
+// TestLateAnswers lets late replies show that a party is not down.
+func TestLateAnswers(t *testing.T) {
+	s := start(t)
+	for i := range 6 {
+		ref := plain.Digits(int64(203000030+i), 12)
+		m := request(ref, 2000)
+		at := 100 * i
+		handle(t, s, at, "shopbank", m, "homebank 100 "+ref[6:]+"  2000 ;")
+		s.Poll(at + 30)
+		decided(t, s, ref, "91", 3)
+		// What is late does not decide.
+		handle(t, s, at+40, "homebank", answer(m, "00"), "")
+		decided(t, s, ref, "91", 3)
+	}
+	// Replies of a party that was not asked do not count.
+	s = start(t)
+	for i := range 4 {
+		ref := plain.Digits(int64(203000030+i), 12)
+		want := "homebank 100 " + ref[6:] + "  2000 ;"
+		if i == 3 {
+			want = "shopbank 110 " + ref[6:] + " 91 2000 ;"
+		}
+		handle(t, s, 100*i, "shopbank", request(ref, 2000), want)
+		s.Poll(100*i + 30)
+		handle(t, s, 100*i+40, "homebank", answer(request("000203000099", 5), "00"), "")
 	}
 }

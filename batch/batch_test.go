@@ -140,3 +140,29 @@ func TestMerge(t *testing.T) {
 		}
 	}
 }
+
+func TestRoom(t *testing.T) {
+	b := sample()
+	b.Records = nil
+	for i := range 200 {
+		b.Records = append(b.Records, rec("r"+strconv.Itoa(i), api.RcPresent, 1))
+	}
+	s, e := batch.Encode(b)
+	if e != api.OK {
+		t.Fatal(e)
+	}
+	if x, rejects, e := batch.Decode(s); !slices.Equal(x.Records, b.Records) || len(rejects) != 0 || e != api.OK {
+		t.Error(len(x.Records), rejects, e)
+	}
+	if m, e := batch.Merge("M", []api.Batch{b}); len(m.Records) != 200 || e != api.OK {
+		t.Error(e)
+	}
+	b.Date = api.MaxDate
+	if e := batch.Check(b); e != api.OK {
+		t.Error(e)
+	}
+	b.Records = append(b.Records, rec("x", api.RcPresent, 1))
+	if e := batch.Check(b); e != api.ErrLong {
+		t.Error(e)
+	}
+}

@@ -2,6 +2,7 @@ package expr_test
 
 import (
 	"slices"
+	"strings"
 	"testing"
 
 	"cardnet/api"
@@ -187,5 +188,81 @@ func TestSame(t *testing.T) {
 	}
 	if !expr.Same(num(1), api.Expr{Op: api.XNumber, N: 1, Args: []api.Expr{}}) {
 		t.Error("no arguments")
+	}
+}
+
+// TestForms adds to each well-formed expression a field that its operator does not have.
+func TestForms(t *testing.T) {
+	tok := name("token")
+	var l []api.Expr
+	for _, o := range []int{api.XAnd, api.XOr} {
+		l = append(l, op(o, tok, tok))
+	}
+	for _, o := range []int{api.XEq, api.XNe, api.XLt, api.XLe, api.XAdd, api.XSub, api.XMul, api.XIn} {
+		l = append(l, op(o, num(1), num(2)))
+	}
+	l = append(l, num(1), str("a"), name("card"), op(api.XNot, tok), op(api.XNeg, num(1)), count("card", 5), sum("card", 5))
+	for i, e := range l {
+		if _, code := expr.Check(e, features); code != api.OK {
+			t.Error(i, code)
+		}
+		for k := range 4 {
+			x := e
+			switch {
+			case k == 0 && x.Text == "":
+				x.Text = "x"
+			case k == 1 && x.Name == "":
+				x.Name = "x"
+			case k == 2 && x.N == 0:
+				x.N = 1
+			case k == 3 && x.Op != api.XIn:
+				x.Args = append(slices.Clone(x.Args), num(1))
+			default:
+				continue
+			}
+			for _, y := range []api.Expr{x, op(api.XNot, x)} {
+				if _, code := expr.Check(y, features); code != api.ErrFormat {
+					t.Error(i, k, code)
+				}
+				if !expr.Same(expr.Fold(y), y) {
+					t.Error(i, k, expr.Fold(y))
+				}
+			}
+		}
+		if len(e.Args) > 0 {
+			e.Args = e.Args[1:]
+			if _, code := expr.Check(e, features); code != api.ErrFormat {
+				t.Error(i, code)
+			}
+		}
+	}
+	for s, want := range map[string]api.Errno{strings.Repeat("x", 100): api.OK, strings.Repeat("x", 101): api.ErrFormat, " ": api.OK, "~": api.OK, "\x1f": api.ErrFormat, "\x7f": api.ErrFormat, "!#": api.OK, "\"": api.ErrFormat} {
+		if _, code := expr.Check(str(s), nil); code != want {
+			t.Error(s, code)
+		}
+	}
+	for _, n := range []string{"", "a-b", "9"} {
+		for _, e := range []api.Expr{name(n), count(n, 5), sum(n, 5)} {
+			if _, code := expr.Check(e, nil); code != api.ErrFormat {
+				t.Error(n, code)
+			}
+		}
+	}
+	if kind, code := expr.Check(name("no"), []api.Feature{{Name: "no", Kind: api.TBool}}); kind != api.TBool || code != api.OK {
+		t.Error(kind, code)
+	}
+}
+
+// TestProducts multiplies numbers whose product would be a number again if it overflowed.
+func TestProducts(t *testing.T) {
+	for _, c := range [][2]int64{{3, 1 << 62}, {-3, 1 << 62}, {1 << 62, 1 << 62}, {1 << 32, 1 << 32}, {1<<32 + 1, 1 << 32}, {1<<31 + 1, 1 << 31}, {-1<<31 - 1, 1 << 31}} {
+		if v, code := expr.Eval(op(api.XMul, num(c[0]), num(c[1])), nil, nil); v != (api.Feature{}) || code != api.ErrRange {
+			t.Error(c, v, code)
+		}
+	}
+	for _, c := range [][3]int64{{1 << 31, 1 << 31, 1 << 62}, {-1 << 31, -1 << 31, 1 << 62}, {1 << 62, -1, -1 << 62}, {0, -5, 0}, {-1, 0, 0}} {
+		if v, code := expr.Eval(op(api.XMul, num(c[0]), num(c[1])), nil, nil); v.N != c[2] || v.Kind != api.TNumber || code != api.OK {
+			t.Error(c, v, code)
+		}
 	}
 }

@@ -72,6 +72,14 @@ func TestRoundTrip(t *testing.T) {
 		t.Error(len(x), e, at)
 	}
 	full := feetext.Format(many[:64])
+	for _, s := range []string{"x", "\"fee\"", "rule"} {
+		if x, e, at := feetext.Parse(full + s); len(x) != 0 || e != api.ErrFormat || at != len(full) {
+			t.Error(s, len(x), e, at)
+		}
+	}
+	if x, e, at := feetext.Parse("fee a when \":\" = c: 1%;"); len(x) != 1 || e != api.OK || at != 0 {
+		t.Error(x, e, at)
+	}
 	if x, e, at := feetext.Parse(full + "fee r0"); len(x) != 0 || e != api.ErrLong || at != len(full) {
 		t.Error(len(x), e, at)
 	}
@@ -87,7 +95,8 @@ func TestErrors(t *testing.T) {
 		{"fee a when b c: 1%;", api.ErrFormat, 13}, {"fee a when : 1%;", api.ErrFormat, 11}, {"fee a when b", api.ErrFormat, 12}, {"fee a when b +", api.ErrFormat, 14}, {"fee a when (b: 1%;", api.ErrFormat, 13}, {"fee a when b: %;", api.ErrFormat, 14}, {"fee a when b: 1.20%;", api.ErrFormat, 14}, {"fee a when b: 100.01%;", api.ErrFormat, 14},
 		{"fee a when b: 1. 5%;", api.ErrFormat, 15}, {"fee a when b: 1.5 %;", api.ErrFormat, 15}, {"fee a when b: 1% 5;", api.ErrFormat, 17}, {"fee a when b: 1% + x;", api.ErrFormat, 19}, {"fee a when b: 1% max 5 min 4;", api.ErrFormat, 23}, {"fee a when b: 1% min 5 + 4;", api.ErrFormat, 23}, {"fee a when b: 1% + 5", api.ErrFormat, 20},
 		{"fee a when b: 1%; fee a when c: 1%;", api.ErrExists, 22}, {"fee a when b: 1.5%; \"", api.ErrFormat, 20}, {"fee a when b: 01%;", api.ErrFormat, 14}, {strings.Repeat(" ", 4001), api.ErrLong, 0}, {"fee a when 1.5% = 2: 1%;", api.ErrFormat, 14}, {"fee a when when: 1%;", api.ErrFormat, 11}, {"fee a when b: 1\n.5%;", api.ErrFormat, 16},
-		{"fee a when b: 1.2.3%;", api.ErrFormat, 15}, {"fee a when b: 9007199254740993%;", api.ErrRange, 14}, {"fee a when x1.5% = 2: 1%;", api.ErrFormat, 13}, {"fee a when b: 1# x\n%;", api.ErrFormat, 14},
+		{"fee a when b: 1.2.3%;", api.ErrFormat, 15}, {"fee a when b: 9007199254740993%;", api.ErrRange, 14}, {"fee a when x1.5% = 2: 1%;", api.ErrFormat, 13}, {"fee a when b: 1# x\n%;", api.ErrFormat, 14}, {"fee a when b: 1.5", api.ErrFormat, 15}, {"\"fee\" a when b: 1%;", api.ErrFormat, 0}, {"fee \"a\" when b: 1%;", api.ErrFormat, 4}, {"fee a when b \":\" 1%;", api.ErrFormat, 13}, {"fee a when b: 1 \"%\";", api.ErrFormat, 16}, {"fee a when b: 1%\";\"", api.ErrFormat, 16}, {"fee a \"when\" b: 1%;", api.ErrFormat, 6}, {"fee a when b: 1.", api.ErrFormat, 15}, {"fee a when b: 1", api.ErrFormat, 15}, {"fee a when b: 1.%;", api.ErrFormat, 15}, {"fee a when b: 1-5%;", api.ErrFormat, 15}, {"fee a when x_1.5% = 2: 1%;", api.ErrFormat, 14}, {"fee a when b: 1.5+%;", api.ErrFormat, 15},
+		{"fee a when b: 1.5%; fee a", api.ErrExists, 24}, {"fee a when \"1.5% = 2: 1%;", api.ErrFormat, 11}, {"fee a when b: 1.5%", api.ErrFormat, 18},
 	} {
 		if x, e, at := feetext.Parse(c.s); len(x) != 0 || e != c.e || at != c.at {
 			t.Error(c.s, x, e, at)

@@ -182,3 +182,35 @@ func TestExplainFeatures(t *testing.T) {
 		t.Error(l)
 	}
 }
+
+func TestBounds(t *testing.T) {
+	l := rules(t, "rule a when 1 = 1: pass score 1000;")
+	x, e := fraud.New(l, 1000, 1000000)
+	if e != api.OK {
+		t.Fatal(e)
+	}
+	judge(t, x, 0, nil, "refer 1000 a")
+	judge(t, x, api.MaxTime, nil, "refer 1000 a")
+	x = engine(t, "rule a when 1 <= sum(merchant, 5): pass; rule b when 1 <= count(acquirer, 5) + count(card, 5): pass; rule c when 1 <= count(merchant, 7): pass;", 5, 6)
+	if !slices.Equal(x.Tracked(), []string{"acquirer", "card", "merchant"}) {
+		t.Error(x.Tracked())
+	}
+	names := x.Tracked()
+	names[0] = "changed"
+	if x.Tracked()[0] != "acquirer" {
+		t.Error("shared memory")
+	}
+	if x.Record(api.MaxTime, sale("c", 1), api.MaxAmount) != api.OK || x.Undo(api.MaxTime, sale("c", 1), api.MaxAmount) != api.OK {
+		t.Error("the greatest numbers")
+	}
+	// A condition that is a number for the given features does not hold.
+	x = engine(t, "rule a when token: pass;", 5, 6)
+	judge(t, x, 0, []api.Feature{{Name: "token", Kind: api.TBool, N: 1}}, "pass 0 a")
+	judge(t, x, 0, []api.Feature{{Name: "token", Kind: api.TNumber, N: 1}}, "pass 0")
+	judge(t, x, 0, []api.Feature{{Name: "token", Kind: api.TBool}}, "pass 0")
+	// Without counts the horizon is 1: what was recorded a second ago is forgotten by the next use.
+	x = engine(t, "rule a when 1 <= count(card, 1): pass;", 5, 6)
+	x.Record(5, sale("c", 1), 1)
+	judge(t, x, 5, sale("c", 1), "pass 0 a")
+	judge(t, x, 6, sale("c", 1), "pass 0")
+}

@@ -144,3 +144,52 @@ func TestErrors(t *testing.T) {
 	}
 	new(intake.Intake).Accept(6, file(t, "F", 6, rec("a", 1)))
 }
+
+func TestOrder(t *testing.T) {
+	x := start(t)
+	accept(t, x, file(t, "F1", 20, rec("r1", 5)), "r1 ")
+	// A repeated record stands before a wrong one.
+	bad := api.Reject{Index: 1, Id: "r2", Code: api.ErrCard}
+	accept(t, x, file(t, "F2", 20, rec("r1", 5), rec("r2!", 7), rec("r3", 9)), "r3 ", api.Reject{Index: 0, Id: "r1", Code: api.ErrDuplicate}, bad)
+	later := api.Reject{Index: 0, Id: "r2", Code: api.ErrCard}
+	accept(t, x, file(t, "F3", 20, rec("r2!", 7)), "", later)
+	if l := x.Open("shop"); !slices.Equal(l, []api.Reject{later}) {
+		t.Error(l)
+	}
+	l := x.Open("shop")
+	l[0].Id = "changed"
+	if x.Open("shop")[0].Id != "r2" {
+		t.Error("shared memory")
+	}
+	refund := rec("r6", 11)
+	refund.Kind = api.RcRefund
+	accept(t, x, file(t, "F4", 20, refund, rec("r7", 1)), "r6 r7 ")
+	if s := x.Totals("shop"); s != (batch.Totals{Count: 4, Debit: 15, Credit: 11, Hash: 4 * 77}) {
+		t.Error(s)
+	}
+	refund.Id = "r8"
+	accept(t, x, file(t, "F5", 20, refund), "r8 ")
+	if s := x.Totals("shop"); s.Credit != 22 || s.Count != 5 {
+		t.Error(s)
+	}
+}
+
+func TestWithoutId(t *testing.T) {
+	x := start(t)
+	body := "H|F|shop|20\nR|junk\nT|1|0|0|0\n"
+	text := body + "C|" + strconv.FormatUint(uint64(checksum.Crc(body))|1<<32, 16)[1:] + "\n"
+	accept(t, x, text, "", api.Reject{Code: api.ErrFormat})
+	if l := x.Open("shop"); len(l) != 0 {
+		t.Error("a reject without an Id is not open", l)
+	}
+	var many []string
+	for i := range 16 {
+		many = append(many, "s"+strconv.Itoa(i))
+	}
+	if _, e := intake.New(many); e != api.OK {
+		t.Error(e)
+	}
+	if _, _, e := x.Accept(api.MaxDate, file(t, "G", 20)); e != api.OK {
+		t.Error(e)
+	}
+}

@@ -359,3 +359,72 @@ func TestFull(t *testing.T) {
 	}
 	send(t, h, 999, request("000000000999", 1), "12", "", "")
 }
+
+func TestOrder(t *testing.T) {
+	h := host(t)
+	h.Card(mine, 2)
+	// What is wrong with the message is found before what is wrong with the card.
+	for i, m := range []api.Message{request(r1, 5, "54", "000000000000"), request(r2, 5, "54", "000000000006"), request(r3, 0)} {
+		send(t, h, 10+i, m, "12", "", "")
+	}
+	h.Card(mine, 3)
+	send(t, h, 100*day, request("000010000004", 5), "00", "", "000004")
+	send(t, h, 101*day, request("000010000005", 5), "33", "", "")
+	for i, c := range []struct {
+		kind   int
+		amount int64
+		want   api.Errno
+	}{{api.RcRefund, 0, api.ErrRange}, {api.RcRefund, -5, api.ErrRange}, {api.RcRefund, 1, 0}, {api.RcRepresent, api.MaxAmount + 1, api.ErrRange}, {api.RcChargeback, api.MaxAmount, 0}} {
+		r := api.Record{Kind: c.kind, Id: "x" + strconv.Itoa(i), Card: mine, Amount: api.Money{Amount: c.amount, Currency: "EUR"}}
+		if e := h.Post(101*day, r); e != c.want {
+			t.Error(i, e)
+		}
+	}
+}
+
+// TestAccounts lets messages concern one of two accounts only.
+func TestAccounts(t *testing.T) {
+	h := host(t)
+	send(t, h, 10, request(r1, 100), "00", "", "000001")
+	send(t, h, 10, request(r2, 200, "2", other), "00", "", "000002")
+	state(t, h, mine, 1000, 100)
+	state(t, h, other, 1000, 200)
+	send(t, h, 20, advice(r1, 300, "56", r3), "00", "", "")
+	if a, _ := h.Auth(r1); a.Approved != 300 || a.Until != 10+7*day {
+		t.Error(a)
+	}
+	state(t, h, mine, 1000, 300)
+	send(t, h, 21, reversal(420, r3, r2), "00", "", "")
+	state(t, h, mine, 1000, 300)
+	state(t, h, other, 1000, 0)
+}
+
+func TestPostWithoutAuth(t *testing.T) {
+	h := host(t)
+	balance := int64(1000)
+	for i, c := range []struct {
+		kind   int
+		debit  int64
+		auth   string
+		amount int64
+	}{{api.RcPresent, 100, "", 100}, {api.RcRefund, -30, "", 30}, {api.RcChargeback, -7, r1, 7}, {api.RcRepresent, 2000, r1, 2000}} {
+		id := "x" + strconv.Itoa(i)
+		if e := h.Post(i, api.Record{Kind: c.kind, Id: id, Auth: c.auth, Card: mine, Amount: api.Money{Amount: c.amount, Currency: "EUR"}}); e != api.OK {
+			t.Error(i, e)
+		}
+		balance -= c.debit
+		state(t, h, mine, balance, 0)
+		if n, ok := h.Charged(id); n != c.debit || !ok {
+			t.Error(i, n, ok)
+		}
+	}
+	// The balance has a bound, and a posting beyond it has no effect.
+	var e api.Errno
+	n := 0
+	for ; e == api.OK && n < 10000; n++ {
+		e = h.Post(9, api.Record{Kind: api.RcPresent, Id: "y" + strconv.Itoa(n), Card: mine, Amount: api.Money{Amount: api.MaxAmount, Currency: "EUR"}})
+	}
+	if _, ok := h.Charged("y" + strconv.Itoa(n-1)); e != api.ErrRange || ok {
+		t.Error(n, e, ok)
+	}
+}

@@ -27,7 +27,7 @@ func TestAllowed(t *testing.T) {
 		want     int64
 		e        api.Errno
 	}{
-		{1000, tol, 170, 0}, {0, tol, 20, 0}, {9, matching.Tolerance{1500, 0}, 1, 0}, {api.MaxAmount, matching.Tolerance{10000, api.MaxAmount}, 2 * api.MaxAmount, 0}, {-1, tol, 0, api.ErrRange}, {api.MaxAmount + 1, tol, 0, api.ErrRange},
+		{1000, tol, 170, 0}, {0, tol, 20, 0}, {9, matching.Tolerance{1500, 0}, 1, 0}, {9, matching.Tolerance{}, 0, 0}, {9999, matching.Tolerance{1, 0}, 0, 0}, {10000, matching.Tolerance{1, 0}, 1, 0}, {api.MaxAmount, matching.Tolerance{10000, api.MaxAmount}, 2 * api.MaxAmount, 0}, {-1, tol, 0, api.ErrRange}, {api.MaxAmount + 1, tol, 0, api.ErrRange},
 		{1, matching.Tolerance{-1, 0}, 0, api.ErrRange}, {1, matching.Tolerance{10001, 0}, 0, api.ErrRange}, {1, matching.Tolerance{0, -1}, 0, api.ErrRange}, {1, matching.Tolerance{0, api.MaxAmount + 1}, 0, api.ErrRange},
 	} {
 		if n, e := matching.Allowed(c.approved, c.t); n != c.want || e != c.e {

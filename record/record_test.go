@@ -22,7 +22,7 @@ func TestCheck(t *testing.T) {
 		{func(r *api.Record) {}, 0}, {func(r *api.Record) { r.Kind, r.Id = 0, "" }, api.ErrRange}, {func(r *api.Record) { r.Kind = 5 }, api.ErrRange}, {func(r *api.Record) { r.Id, r.Card = "a b", "" }, api.ErrName}, {func(r *api.Record) { r.Auth = "" }, 0}, {func(r *api.Record) { r.Auth = "a b" }, api.ErrName},
 		{func(r *api.Record) { r.Acquirer = "a-b" }, api.ErrName}, {func(r *api.Record) { r.Issuer = "" }, api.ErrName}, {func(r *api.Record) { r.Merchant = "" }, api.ErrName}, {func(r *api.Record) { r.Merchant = "m-1" }, 0}, {func(r *api.Record) { r.Card, r.Amount.Currency = "4000000000000078", "" }, api.ErrCard},
 		{func(r *api.Record) { r.Amount.Currency, r.Category = "eur", -1 }, api.ErrCurrency}, {func(r *api.Record) { r.Amount.Amount = api.MaxTotal + 1 }, api.ErrRange}, {func(r *api.Record) { r.Amount.Amount = 0 }, api.ErrRange}, {func(r *api.Record) { r.Amount.Amount, r.Date = api.MaxAmount+1, -1 }, api.ErrRange},
-		{func(r *api.Record) { r.Category = -1 }, api.ErrRange}, {func(r *api.Record) { r.Category = 10000 }, api.ErrRange}, {func(r *api.Record) { r.Date = -1 }, api.ErrTime}, {func(r *api.Record) { r.Date = api.MaxDate + 1 }, api.ErrTime}, {func(r *api.Record) { r.Category, r.Final = 0, false }, 0},
+		{func(r *api.Record) { r.Category = -1 }, api.ErrRange}, {func(r *api.Record) { r.Category = 10000 }, api.ErrRange}, {func(r *api.Record) { r.Date = -1 }, api.ErrTime}, {func(r *api.Record) { r.Date = api.MaxDate + 1 }, api.ErrTime}, {func(r *api.Record) { r.Category, r.Final = 0, false }, 0}, {func(r *api.Record) { r.Category, r.Amount.Amount, r.Date = 9999, 1, api.MaxDate }, 0}, {func(r *api.Record) { r.Amount.Amount, r.Date = api.MaxAmount, 0 }, 0},
 	} {
 		r := sample()
 		c.change(&r)

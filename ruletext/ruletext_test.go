@@ -151,10 +151,46 @@ func TestParseErrors(t *testing.T) {
 		{"rule when when 1 = 1: pass;", api.ErrFormat, 5}, {"rule a", api.ErrFormat, 6}, {"x", api.ErrFormat, 0}, {"rule a when b: pass; rule a when c: pass;", api.ErrExists, 26}, {"rule a when b: pass score 1001;", api.ErrFormat, 26}, {"rule a when b: pass score;", api.ErrFormat, 25},
 		{"rule a when b: ok;", api.ErrFormat, 15}, {"rule a when b pass;", api.ErrFormat, 14}, {"rule a when b: pass", api.ErrFormat, 19}, {"rule a b: pass;", api.ErrFormat, 7}, {"rule a when b: pass;;", api.ErrFormat, 20}, {"rule 1 when b: pass;", api.ErrFormat, 5},
 		{many + "rule", api.ErrLong, len(many)}, {many + "x", api.ErrFormat, len(many)}, {many + "rule r0", api.ErrLong, len(many)}, {"rule a when b: pass; 01", api.ErrFormat, 21}, {"rule a when \"", api.ErrFormat, 12}, {"rule pass when b: pass;", api.ErrFormat, 5},
-		{"rule a when b: pass; rule a", api.ErrExists, 26}, {"Rule a when b: pass;", api.ErrFormat, 0},
+		{"rule a when b: pass; rule a", api.ErrExists, 26}, {"rule a when b: ;", api.ErrFormat, 15}, {"rule a when b: pass; rule \"a\"", api.ErrFormat, 26}, {many + "\"rule\"", api.ErrFormat, len(many)}, {"Rule a when b: pass;", api.ErrFormat, 0},
 	} {
 		if x, e, at := ruletext.Parse(c.s); len(x) != 0 || e != c.e || at != c.at {
 			t.Error(c.s, x, e, at)
+		}
+	}
+}
+
+// TestForms adds to each writable expression a field that its operator does not have.
+func TestForms(t *testing.T) {
+	l := []api.Expr{num(1), {Op: api.XText, Text: "x"}, a, {Op: api.XCount, Name: "a", N: 5}, {Op: api.XSum, Name: "a", N: 5}, op(api.XNot, a), op(api.XNeg, a), op(api.XIn, a, b)}
+	for o := api.XAnd; o <= api.XMul; o++ {
+		l = append(l, op(o, a, b))
+	}
+	for i, e := range l {
+		if ruletext.Expr(e) == "" {
+			t.Error(i)
+		}
+		for k := range 4 {
+			x := e
+			switch {
+			case k == 0 && x.Text == "":
+				x.Text = "x"
+			case k == 1 && x.Name == "":
+				x.Name = "x"
+			case k == 2 && x.N == 0:
+				x.N = 1
+			case k == 3 && x.Op != api.XIn:
+				x.Args = append([]api.Expr{c}, x.Args...)
+			default:
+				continue
+			}
+			if ruletext.Expr(x) != "" || ruletext.Expr(op(api.XNot, x)) != "" {
+				t.Error(i, k, ruletext.Expr(x))
+			}
+		}
+	}
+	for s, want := range map[string]bool{" ": true, "~": true, "\x1f": false, "\x7f": false, "\"": false, strings.Repeat("x", 100): true, strings.Repeat("x", 101): false} {
+		if (ruletext.Expr(api.Expr{Op: api.XText, Text: s}) != "") != want {
+			t.Error(s)
 		}
 	}
 }

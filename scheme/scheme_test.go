@@ -68,6 +68,13 @@ func TestFee(t *testing.T) {
 			t.Error(n, f, e)
 		}
 	}
+	top := []scheme.Tier{{1, 536870912}}
+	if f, e := scheme.Fee(top, 838860800); f != api.MaxTotal || e != api.OK {
+		t.Error(f, e)
+	}
+	if f, e := scheme.Fee(top, 838860801); f != 0 || e != api.ErrRange {
+		t.Error(f, e)
+	}
 	if f, e := scheme.Fee([]scheme.Tier{{1, 49}}, 1); f != 0 || e != api.OK {
 		t.Error(f, e)
 	}
@@ -104,5 +111,25 @@ func TestShare(t *testing.T) {
 		if len(l) != 0 || n != 0 || e1 != c.want || e2 != c.want {
 			t.Error(i, l, n, e1, e2)
 		}
+	}
+}
+
+func TestBounds(t *testing.T) {
+	var v []scheme.Volume
+	for i := range 16 {
+		v = append(v, scheme.Volume{Party: "p" + string(rune('a'+i)), Count: 0})
+	}
+	v[7].Count = 1000000000
+	l, e := scheme.Share(tiers, v)
+	if len(l) != 16 || l[7] != 300000020 || l[0] != 0 || e != api.OK {
+		t.Error(l, e)
+	}
+	v[7].Count = 1000000001
+	if l, e := scheme.Share(tiers, v); len(l) != 0 || e != api.ErrRange {
+		t.Error(l, e)
+	}
+	v[7].Count, v[8].Party = -1, "pa"
+	if l, e := scheme.Share(tiers, v); len(l) != 0 || e != api.ErrRange {
+		t.Error(l, e)
 	}
 }

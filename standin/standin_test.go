@@ -159,3 +159,16 @@ func TestRoom(t *testing.T) {
 	}
 	new(standin.StandIn).Decide(0, "x", "b", card, 1)
 }
+
+func TestBounds(t *testing.T) {
+	s := start(t, standin.Limit{Issuer: "b", Each: api.MaxAmount, Day: api.MaxAmount, Count: 2})
+	key := strings.Repeat("k", 40)
+	for i, want := range []bool{true, true, false} {
+		if ok, e := s.Decide(5, key[i:], "b", card, 1); ok != want || e != api.OK {
+			t.Error(i, ok, e)
+		}
+	}
+	if ok, e := s.Decide(5, "other", "b", other, api.MaxAmount); !ok || e != api.OK {
+		t.Error(ok, e)
+	}
+}
