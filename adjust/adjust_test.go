@@ -112,3 +112,18 @@ func TestNetFinal(t *testing.T) {
 		}
 	}
 }
+
+func TestBounds(t *testing.T) {
+	c, r := disputed(), present()
+	for i, amount := range []int64{1, 1000} {
+		c.Amount = eur(amount)
+		for _, date := range []int{10, api.MaxDate} {
+			if m, ok, e := adjust.Move(c, r, 0, 1, date, 99); m.Amount != eur(amount) || m.Date != date || m.Id != "d-99" || !ok || e != api.OK {
+				t.Error(i, m, ok, e)
+			}
+		}
+	}
+	if n := adjust.Net([]api.Record{{Kind: api.RcChargeback, Amount: eur(1)}, {Kind: api.RcChargeback, Amount: eur(api.MaxAmount)}}); n != api.MaxAmount+1 {
+		t.Error(n)
+	}
+}

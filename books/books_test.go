@@ -276,3 +276,49 @@ func TestCrash(t *testing.T) {
 	new(books.Keeper).Do([]books.Op{approval(0, "a", 1)})
 	new(books.Books).Digest()
 }
+
+func TestBounds(t *testing.T) {
+	for _, days := range []int{1, 1000} {
+		s := setup()
+		s.Days = days
+		b, e := books.New(s)
+		if e != api.OK || b.Do(approval(5, "a", 1)) != api.OK {
+			t.Error(e)
+		}
+		if a, _ := b.Auth("a"); a.Until != 5+days*86400 {
+			t.Error(a)
+		}
+	}
+	b := start(t)
+	b.Do(debt(5, 7, "r", "", 3, 3))
+	b.Do(debt(4, 7, "c", "x", 3, 3))
+	entry := checksum.Chain(0, "r|0|party:shopbank/0/EUR|party:homebank/0/EUR")
+	if b.Digest() != checksum.Chain(entry, "7") {
+		t.Error(b.Digest())
+	}
+}
+
+func TestGroups(t *testing.T) {
+	s := setup()
+	d, _ := disk.New(200)
+	k, _ := books.Open(s, d)
+	// The setup is not kept by the books.
+	s.Parties[0] = "changed"
+	var l []books.Op
+	for i := range 17 {
+		l = append(l, debt(5, 10, "r"+strconv.Itoa(i), "", 5, 0))
+	}
+	if e := k.Do(l); e != api.ErrRange || k.Count() != 0 {
+		t.Error(e)
+	}
+	if e := k.Do(l[:16]); e != api.OK || k.Count() != 16 || k.Books().Balance("party:homebank") != 80 {
+		t.Error(e, k.Count())
+	}
+	if e := k.Do(l[16:]); e != api.OK || k.Count() != 17 {
+		t.Error(e)
+	}
+	d.Crash(0)
+	if k.Do([]books.Op{approval(20, "a", 1)}) != api.ErrDown || k.Do(nil) != api.ErrDown || k.Do(make([]books.Op, 17)) != api.ErrDown {
+		t.Error("a keeper that has stopped")
+	}
+}

@@ -169,3 +169,28 @@ func TestExpire(t *testing.T) {
 		t.Error(e)
 	}
 }
+
+// TestOneDay takes all steps of a case on one date.
+func TestOneDay(t *testing.T) {
+	d := start(t)
+	if e := d.Open("d", rec("p"), "fraud", 1, 100, items); e != api.OK {
+		t.Fatal(e)
+	}
+	for i, event := range []int{1, 2, 3, 5} {
+		if e := d.Step("d", event, 100, items); e != api.OK {
+			t.Error(i, e)
+		}
+	}
+	if c, _ := d.Get("d"); c.Stage != api.DsWon || d.Disputed("p") != 1 {
+		t.Error(c)
+	}
+	if len(d.Expire(api.MaxDate)) != 0 || !slices.Equal(d.History("d"), []int{1, 2, 3, 4, 5}) {
+		t.Error(d.History("d"))
+	}
+	// The first date is a date, too.
+	r := rec("q")
+	r.Date = 0
+	if e := d.Open("e", r, "late", 1000, 0, nil); e != api.OK || d.Step("e", 4, 1, nil) != api.OK {
+		t.Error(e)
+	}
+}

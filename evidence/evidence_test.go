@@ -16,7 +16,7 @@ func TestCheck(t *testing.T) {
 		x    api.Item
 		want api.Errno
 	}{
-		{api.Item{Kind: "letter", Size: 1}, 0}, {api.Item{Kind: "A_9", Size: 1000000}, 0}, {api.Item{Kind: "a-b"}, api.ErrName}, {api.Item{Kind: "", Size: 1}, api.ErrName}, {api.Item{Kind: "9a", Size: 1}, api.ErrName}, {api.Item{Kind: "\u00e4", Size: 1}, api.ErrName}, {api.Item{Kind: "a\xff", Size: 1}, api.ErrName},
+		{api.Item{Kind: "letter", Size: 1}, 0}, {api.Item{Kind: "A_9", Size: 1000000}, 0}, {api.Item{Kind: "azAZ09", Size: 1}, 0}, {api.Item{Kind: "Z", Size: 1}, 0}, {api.Item{Kind: "z", Size: 1}, 0}, {api.Item{Kind: "a", Size: 2}, 0}, {api.Item{Kind: "_", Size: 1}, api.ErrName}, {api.Item{Kind: "a`", Size: 1}, api.ErrName}, {api.Item{Kind: "a-b"}, api.ErrName}, {api.Item{Kind: "", Size: 1}, api.ErrName}, {api.Item{Kind: "9a", Size: 1}, api.ErrName}, {api.Item{Kind: "\u00e4", Size: 1}, api.ErrName}, {api.Item{Kind: "a\xff", Size: 1}, api.ErrName},
 		{api.Item{Kind: strings.Repeat("a", 17), Size: 1}, api.ErrName}, {api.Item{Kind: strings.Repeat("a", 16), Size: 1}, 0}, {api.Item{Kind: "a"}, api.ErrRange}, {api.Item{Kind: "a", Size: 1000001}, api.ErrRange}, {api.Item{Kind: "a", Size: -1}, api.ErrRange},
 	} {
 		if e := evidence.Check(c.x); e != c.want {

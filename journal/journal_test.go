@@ -196,3 +196,51 @@ func TestNone(t *testing.T) {
 	}
 	k.Drop()
 }
+
+// laid returns the number of groups on a disk with these blocks, given as what follows the hash of each.
+func laid(t *testing.T, rests ...string) int {
+	t.Helper()
+	d, _ := disk.New(200)
+	prev := uint64(0)
+	for n, rest := range rests {
+		if e := d.Write(n, chained(prev, rest)); e != api.OK {
+			t.Fatal(e)
+		}
+		prev = checksum.Chain(prev, rest)
+	}
+	return open(t, d).Groups()
+}
+
+// cut returns a stream in payloads, with marks and lengths.
+func cut(stream string) []string {
+	var rests []string
+	for len(stream) > 45 {
+		rests = append(rests, "+45"+stream[:45])
+		stream = stream[45:]
+	}
+	return append(rests, "."+plain.Digits(int64(len(stream)), 2)+stream)
+}
+
+func TestGroupForms(t *testing.T) {
+	record := "0041" + strings.Repeat("x", 41)
+	for i, c := range []struct {
+		rests  []string
+		groups int
+	}{
+		{[]string{".45" + record}, 1}, {[]string{"+45" + record, ".00"}, 0}, {[]string{"+040001", ".01a"}, 0}, {[]string{"x45" + record, ".040000"}, 0}, {[]string{"+45" + record, ".040000"}, 1}, {[]string{".040001"}, 0}, {[]string{".0x0000"}, 0}, {[]string{".030000"}, 0}, {[]string{".050000"}, 0},
+		{cut("4000" + strings.Repeat("y", 4000)), 1}, {cut("4001" + strings.Repeat("y", 4001)), 0}, {cut(strings.Repeat("0000", 256)), 1}, {cut(strings.Repeat("0000", 257)), 0}, {append(cut("0001a"), cut("0001b")...), 2}, {append(cut("0001a"), "x0"), 1},
+	} {
+		if n := laid(t, c.rests...); n != c.groups {
+			t.Error(i, n)
+		}
+	}
+}
+
+func TestDrop(t *testing.T) {
+	_, j := fresh(t, 3)
+	j.Append("a")
+	j.Drop()
+	if j.Pending() != 0 || j.Commit() != api.ErrState || j.Append("b") != api.OK || j.Commit() != api.OK || !slices.Equal(j.Records(), []string{"b"}) {
+		t.Error(j.Records())
+	}
+}

@@ -104,3 +104,18 @@ func TestValidVolume(t *testing.T) {
 		t.Error(netting.Volume(x, "EUR"))
 	}
 }
+
+func TestBounds(t *testing.T) {
+	one := []api.Position{pos("a", -1, "EUR"), pos("b", 1, "EUR")}
+	if !netting.Valid(one, []api.Transfer{pay("a", "b", 1, "EUR")}) || netting.Volume([]api.Transfer{pay("a", "b", 1, "EUR"), pay("a", "b", 0, "EUR")}, "EUR") != 1 {
+		t.Error("a transfer of one unit")
+	}
+	full := []api.Position{pos("a", -api.MaxTotal, "EUR"), pos("b", api.MaxTotal, "EUR")}
+	l, e := netting.Settle(full)
+	if !slices.Equal(l, []api.Transfer{pay("a", "b", api.MaxTotal, "EUR")}) || e != api.OK {
+		t.Error(l, e)
+	}
+	if x, e := netting.Apply(nil, l); !slices.Equal(x, []api.Position{pos("a", api.MaxTotal, "EUR"), pos("b", -api.MaxTotal, "EUR")}) || e != api.OK {
+		t.Error(x, e)
+	}
+}

@@ -45,7 +45,7 @@ func TestMove(t *testing.T) {
 		m        api.Money
 		want     api.Errno
 	}{
-		{"a", "b", eur(100), 0}, {"b", "c", eur(30), 0}, {"x", "x", api.Money{}, api.ErrNone}, {"a", "x", eur(1), api.ErrNone}, {"a", "a", api.Money{}, api.ErrRange}, {"a", "b", api.Money{Amount: -1}, api.ErrCurrency}, {"a", "b", eur(api.MaxTotal + 1), api.ErrRange}, {"a", "b", eur(-1), api.ErrRange},
+		{"a", "b", eur(100), 0}, {"b", "c", eur(30), 0}, {"x", "x", api.Money{}, api.ErrNone}, {"a", "x", eur(1), api.ErrNone}, {"x", "a", eur(1), api.ErrNone}, {"a", "a", api.Money{}, api.ErrRange}, {"a", "b", api.Money{Amount: -1}, api.ErrCurrency}, {"a", "b", eur(api.MaxTotal + 1), api.ErrRange}, {"a", "b", eur(-1), api.ErrRange},
 		{"a", "b", eur(api.MaxTotal), api.ErrRange}, {"d", "b", eur(api.MaxTotal), api.ErrRange}, {"a", "d", eur(api.MaxTotal), api.ErrRange}, {"c", "d", eur(0), 0}, {"a", "b", api.Money{Amount: 5, Currency: "CHF"}, 0}, {"b", "a", api.Money{Amount: 5, Currency: "USD"}, 0}, {"a", "b", api.Money{Amount: 5, Currency: "USD"}, 0},
 		{"d", "c", api.Money{Amount: api.MaxTotal, Currency: "GBP"}, 0}, {"c", "d", api.Money{Amount: api.MaxTotal, Currency: "GBP"}, 0},
 	} {
@@ -131,7 +131,7 @@ func TestSum(t *testing.T) {
 		want int64
 	}{
 		{nil, 0}, {[]int64{5, -7}, -2}, {[]int64{1 << 62}, 1 << 62}, {[]int64{1 << 62, 1}, 1 << 62}, {[]int64{-1 << 62, -1}, -1 << 62}, {[]int64{math.MaxInt64, math.MaxInt64, -math.MaxInt64, -math.MaxInt64, 3}, 3}, {[]int64{math.MaxInt64, math.MaxInt64}, 1 << 62}, {[]int64{math.MinInt64, math.MinInt64}, -1 << 62},
-		{[]int64{math.MinInt64, math.MinInt64, math.MaxInt64, math.MaxInt64}, -2}, {[]int64{math.MinInt64}, -1 << 62}, {[]int64{math.MaxInt64, 1}, 1 << 62}, {[]int64{math.MinInt64, -1}, -1 << 62},
+		{[]int64{math.MinInt64, math.MinInt64, math.MaxInt64, math.MaxInt64}, -2}, {[]int64{math.MinInt64}, -1 << 62}, {[]int64{math.MinInt64, math.MinInt64, math.MinInt64, math.MinInt64}, -1 << 62}, {[]int64{math.MaxInt64, math.MaxInt64, 2}, 1 << 62}, {[]int64{math.MaxInt64, 1}, 1 << 62}, {[]int64{math.MinInt64, -1}, -1 << 62},
 	} {
 		l := []api.Position{pos("a", 99, "USD")}
 		for _, n := range c.l {
@@ -149,4 +149,29 @@ func TestNone(t *testing.T) {
 		t.Error("nil book")
 	}
 	new(position.Book).Move("a", "b", eur(1))
+}
+
+func TestBounds(t *testing.T) {
+	var parties []string
+	for i := range 16 {
+		parties = append(parties, "p"+string(rune('a'+i)))
+	}
+	b, e := position.New(parties)
+	if e != api.OK {
+		t.Fatal(e)
+	}
+	// The creditors can be weights, their debtor cannot.
+	b.Move("pp", "pa", eur(1<<40))
+	b.Move("pp", "pb", eur(1<<40))
+	rates := []api.Rate{rt("EUR", "USD", 1, 1)}
+	if l, e := b.Convert(rates, "USD", ""); len(l) != 0 || e != api.ErrRange {
+		t.Error(l, e)
+	}
+	b.Move("pa", "pp", eur(1<<40))
+	if l, e := b.Convert(rates, "USD", ""); len(l) != 2 || e != api.OK {
+		t.Error(l, e)
+	}
+	if b.Move("pc", "pd", eur(api.MaxTotal)) != api.OK || b.Net("pc", "EUR") != -api.MaxTotal || b.Move("pc", "pe", eur(1)) != api.ErrRange || b.Move("pe", "pd", eur(1)) != api.ErrRange {
+		t.Error(b.Net("pc", "EUR"))
+	}
 }

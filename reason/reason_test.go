@@ -32,7 +32,7 @@ func TestCheck(t *testing.T) {
 		want   api.Errno
 	}{
 		{func(r *api.Reason) {}, 0}, {func(r *api.Reason) { r.Code, r.FileDays = "a-b", 0 }, api.ErrName}, {func(r *api.Reason) { r.Code, r.FileDays = "first", 0 }, api.ErrExists}, {func(r *api.Reason) { r.FileDays, r.Claim = 0, nine }, api.ErrRange}, {func(r *api.Reason) { r.RepresentDays = 1001 }, api.ErrRange}, {func(r *api.Reason) { r.PrearbDays = -1 }, api.ErrRange}, {func(r *api.Reason) { r.AnswerDays = 0 }, api.ErrRange},
-		{func(r *api.Reason) { r.Claim, r.Defence = nine, []string{""} }, api.ErrLong}, {func(r *api.Reason) { r.Claim = nine[:8] }, 0}, {func(r *api.Reason) { r.Claim, r.Defence = []string{"a", "claim", "a"}, nine }, api.ErrName}, {func(r *api.Reason) { r.Claim = []string{"a", "a", ""} }, api.ErrExists}, {func(r *api.Reason) { r.Defence = nine }, api.ErrLong}, {func(r *api.Reason) { r.Defence = []string{"defence"} }, api.ErrName},
+		{func(r *api.Reason) { r.Claim, r.Defence = nine, []string{""} }, api.ErrLong}, {func(r *api.Reason) { r.Claim = nine[:8] }, 0}, {func(r *api.Reason) { r.Claim, r.Defence = []string{"a", "claim", "a"}, nine }, api.ErrName}, {func(r *api.Reason) { r.Claim = []string{"a", "a", ""} }, api.ErrExists}, {func(r *api.Reason) { r.Defence = nine }, api.ErrLong}, {func(r *api.Reason) { r.Defence = []string{"defence"} }, api.ErrName}, {func(r *api.Reason) { r.Claim = []string{"a-b"} }, api.ErrName}, {func(r *api.Reason) { r.FileDays, r.RepresentDays, r.PrearbDays, r.AnswerDays = 1, 1000, 1000, 1 }, 0},
 		{func(r *api.Reason) { r.Claim, r.Defence = nil, []string{"letter", "a"} }, 0}, {func(r *api.Reason) { r.Code = "claim" }, 0},
 	} {
 		first, r := fraud(), fraud()
@@ -111,7 +111,7 @@ func TestText(t *testing.T) {
 	}{
 		{"reason a 1 2 3 1001 claim defence;", api.ErrRange, 15}, {"reason a 1 2 3 4 claim x x defence;", api.ErrExists, 25}, {"reason", api.ErrFormat, 6}, {"x", api.ErrFormat, 0}, {"reason 1", api.ErrFormat, 7}, {"reason a x", api.ErrFormat, 9}, {"reason a 0 x", api.ErrRange, 9}, {"reason a 1 2 3 claim", api.ErrFormat, 15}, {"reason a 1 2 3 4 x", api.ErrFormat, 17},
 		{"reason a 1 2 3 4 claim x claim", api.ErrFormat, 25}, {"reason a 1 2 3 4 claim x;", api.ErrFormat, 24}, {"reason a 1 2 3 4 claim defence defence;", api.ErrFormat, 31}, {"reason a 1 2 3 4 claim defence x", api.ErrFormat, 32}, {"reason a 1 2 3 4 claim a b c d e f g h a defence;", api.ErrLong, 39}, {"reason a 1 2 3 4 claim defence a a;", api.ErrExists, 33},
-		{"reason a 1 2 3 4 claim defence; reason a 0", api.ErrExists, 39}, {"reason a 1 2 3 4 claim defence; 01", api.ErrFormat, 32}, {full + "reason", api.ErrLong, len(full)}, {full + "x", api.ErrFormat, len(full)}, {strings.Repeat(" ", 4001), api.ErrLong, 0}, {"reason a 1 2 3 4 claim defence;;", api.ErrFormat, 31},
+		{"reason a 1 2 3 4 claim defence; reason a 0", api.ErrExists, 39}, {"reason a 1 2 3 4 claim defence; 01", api.ErrFormat, 32}, {full + "reason", api.ErrLong, len(full)}, {full + "x", api.ErrFormat, len(full)}, {full + "\"reason\"", api.ErrFormat, len(full)}, {"reason a 1 2 3 4 claim \"x\" defence;", api.ErrFormat, 23}, {"reason \"a\" 1 2 3 4 claim defence;", api.ErrFormat, 7}, {"\"reason\" a", api.ErrFormat, 0}, {"reason a 1 2 3 4 claim defence\";\"", api.ErrFormat, 30}, {strings.Repeat(" ", 4001), api.ErrLong, 0}, {"reason a 1 2 3 4 claim defence;;", api.ErrFormat, 31},
 	} {
 		if x, e, at := reason.Parse(c.s); len(x) != 0 || e != c.e || at != c.at {
 			t.Error(c.s, x, e, at)
