@@ -437,3 +437,196 @@ func TestNone(t *testing.T) {
 	z.Quiet()
 	z.Total()
 }
+
+// many returns a network with sales that were captured in eight parts each, and refunded in eight parts if that is wanted.
+func many(t *testing.T, sales int, refunded bool) *paynet.Net {
+	t.Helper()
+	n := start(t, func(s *paynet.Setup) { s.Banks[0].Cards, s.Banks[0].Balance = 8, 1000000 })
+	for i := range sales {
+		card, _ := n.Card(0, i%8)
+		ref := buy(t, n, card, 80)
+		advance(t, n, n.Now()+5)
+		for k := range 8 {
+			if e := n.Capture(ref, 10, false); e != api.OK {
+				t.Fatal(i, k, e)
+			}
+			if refunded && n.Refund(ref, 1) != api.OK {
+				t.Fatal(i, k)
+			}
+		}
+	}
+	return n
+}
+
+// clear returns how many records a Clear rejects, all of them with a code.
+func clear(t *testing.T, n *paynet.Net, code api.Errno) int {
+	t.Helper()
+	l, e := n.Clear()
+	for _, r := range l {
+		if r.Code != code {
+			t.Error(r)
+		}
+	}
+	if e != api.OK {
+		t.Error(e)
+	}
+	return len(l)
+}
+
+func TestFullLedger(t *testing.T) {
+	n := many(t, 60, false)
+	card, _ := n.Card(0, 0)
+	letter, receipt := []api.Item{{Kind: "letter", Size: 1}}, []api.Item{{Kind: "receipt", Size: 1}}
+	if k := clear(t, n, api.ErrFull); k != 0 {
+		t.Error(k)
+	}
+	for i, e := range []api.Errno{n.Dispute("d", "000000000001-1", "fraud", 10, letter), n.Step("d", 1, receipt), n.Step("d", 2, nil), n.Dispute("e", "000000000001-2", "fraud", 10, letter)} {
+		if e != api.OK {
+			t.Error(i, e)
+		}
+	}
+	// 203 entries have been recorded; there is room for 245 more.
+	if k := clear(t, n, api.ErrFull); k != 0 {
+		t.Error(k)
+	}
+	if k := clear(t, n, api.ErrFull); k != 80-45 {
+		t.Error(k)
+	}
+	if e := n.Dispute("f", "000000000002-1", "fraud", 10, letter); e != api.ErrFull {
+		t.Error(e)
+	}
+	if e := n.Step("e", 1, receipt); e != api.ErrFull {
+		t.Error(e)
+	}
+	// What expires is booked all the same.
+	before, _, _ := n.Holder(card)
+	advance(t, n, 31*day)
+	if after, _, _ := n.Holder(card); after != before+10 || n.Total() != 8000000 {
+		t.Error(before, after, n.Total())
+	}
+}
+
+func TestLogBound(t *testing.T) {
+	n := many(t, 250, true)
+	for range 25 {
+		if _, e := n.Clear(); e != api.OK {
+			t.Fatal(e)
+		}
+	}
+	if l := n.Log(); len(l) != api.MaxEvents || l[0].Kind != api.EvApproved || n.Total() != 8000000 {
+		t.Error(len(l))
+	}
+}
+
+// TestNamesOfMovements clears records whose identifications are those of movements of a case.
+func TestNamesOfMovements(t *testing.T) {
+	n := start(t, plainly)
+	card, _ := n.Card(0, 0)
+	ref := sold(t, n, card, 1000)
+	other := buy(t, n, card, 1000)
+	advance(t, n, n.Now()+10)
+	if e := n.Dispute(other, ref+"-1", "fraud", 10, []api.Item{{Kind: "letter", Size: 1}}); e != api.OK {
+		t.Error(e)
+	}
+	for range 4 {
+		n.Capture(other, 100, false)
+	}
+	l, e := n.Clear()
+	want := []api.Reject{{Index: 0, Id: other + "-1", Code: api.ErrDuplicate}, {Index: 1, Id: other + "-2", Code: api.ErrDuplicate}, {Index: 2, Id: other + "-3", Code: api.ErrDuplicate}}
+	if !slices.Equal(l, want) || e != api.OK {
+		t.Error(l, e)
+	}
+	holder(t, n, card, 10000-1000+10-100, 900)
+	if e := n.Dispute("12345678901234", ref+"-1", "fraud", 10, []api.Item{{Kind: "letter", Size: 1}}); e != api.OK {
+		t.Error(e)
+	}
+}
+
+func TestBounds(t *testing.T) {
+	s := setup(t)
+	s.Acquirers = []string{"a", "b", "c", "d"}
+	s.Banks[0].Cards = 1
+	for i, name := range []string{"x", "y", "z"} {
+		s.Banks = append(s.Banks, paynet.Bank{Name: name, Low: strconv.Itoa(50 + i), High: strconv.Itoa(50 + i), Cards: 1})
+	}
+	n, e := paynet.New(s)
+	if e != api.OK {
+		t.Fatal(e)
+	}
+	// The setup is not kept.
+	s.Tables.Merchant[0].Bps, s.Tables.Merchant[0].When.Args[0].N, s.Banks[0].Name = 9999, 7, "changed"
+	card, _ := n.Card(0, 0)
+	if ref := sold(t, n, card, 1000); ref != "000000000001" || n.Shop("m1") != 990 {
+		t.Error(ref, n.Shop("m1"))
+	}
+	advance(t, n, n.Now())
+	if e := n.Advance(n.Now() + 100*day); e != api.OK {
+		t.Error(e)
+	}
+	for n.Now() < 49900*day {
+		advance(t, n, n.Now()+100*day)
+	}
+	advance(t, n, 49999*day)
+	advance(t, n, 50000*day+86399)
+	if e := n.Advance(50001 * day); e != api.ErrTime {
+		t.Error(e)
+	}
+}
+
+func TestSettleAhead(t *testing.T) {
+	n := start(t, plainly)
+	advance(t, n, day)
+	for i, c := range []struct {
+		date int
+		want api.Errno
+	}{{12, api.ErrTime}, {11, 0}, {4, 0}, {11, api.ErrClosed}} {
+		if l, e := n.Settle(c.date); len(l) != 0 || e != c.want {
+			t.Error(i, l, e)
+		}
+	}
+}
+
+// TestSwitchTimeout compares timeouts of the switch, which are half of those of the acquirers, rounded up.
+func TestSwitchTimeout(t *testing.T) {
+	for timeout, decided := range map[int]int{59: 32, 60: 32, 61: 33, 62: 33} {
+		n := start(t, func(s *paynet.Setup) {
+			s.Timeout, s.Retry = timeout, 100
+			s.Faults = []api.Fault{{Kind: api.FCut, A: 0, B: 1, From: 0, Until: 100}}
+		})
+		card, _ := n.Card(0, 0)
+		ref := buy(t, n, card, 1000)
+		advance(t, n, decided-1)
+		sale(t, n, ref, 1, 0)
+		advance(t, n, decided)
+		sale(t, n, ref, 2, 1000)
+		// The advice was lost, and waits: nothing else does.
+		advance(t, n, 50)
+		if n.Quiet() {
+			t.Error(timeout)
+		}
+		advance(t, n, 200)
+		if !n.Quiet() {
+			t.Error(timeout)
+		}
+	}
+}
+
+func TestEventTimes(t *testing.T) {
+	n := start(t, func(s *paynet.Setup) {
+		s.Faults = []api.Fault{{Kind: api.FLose, A: 0, B: 2, From: 100, Until: 200}}
+	})
+	card, _ := n.Card(0, 0)
+	a, b := buy(t, n, card, 10), buy(t, n, card, 20000)
+	advance(t, n, 50)
+	n.Cancel(a)
+	if l := n.Log(); len(l) != 3 || l[2].Kind != api.EvReversed || l[2].At != 50 || l[2].Ref != a || l[2].Amount.Amount != 0 || l[2].Party != "shopbank" {
+		t.Error(l)
+	}
+	advance(t, n, 100)
+	c := buy(t, n, card, 10)
+	advance(t, n, 300)
+	l := n.Log()
+	if len(l) != 4 || l[1].Kind != api.EvDeclined || l[1].At != 4 || l[1].Ref != b || l[1].Amount != (api.Money{Currency: "EUR"}) || l[3].Kind != api.EvReversed || l[3].At != 160 || l[3].Ref != c {
+		t.Error(l)
+	}
+}

@@ -24,17 +24,17 @@ func TestNumber(t *testing.T) {
 func TestForms(t *testing.T) {
 	for s, want := range map[string][3]bool{
 		"a": {true, true, false}, "A_9": {true, true, false}, "9a": {false, true, false}, "a-b": {false, true, false},
-		"": {}, "ABC": {true, true, true}, "_a": {false, true, false}, "aaaaaaaaaaaaaaaaa": {}, "a b": {}, "AB1": {true, true, false},
+		"azAZ": {true, true, false}, "a09": {true, true, false}, "AZZ": {true, true, true}, "AZ[": {}, "AB@": {}, "": {}, "ABC": {true, true, true}, "_a": {false, true, false}, "aaaaaaaaaaaaaaaaa": {}, "a b": {}, "AB1": {true, true, false},
 		"aaaaaaaaaaaaaaaa": {true, true, false}, "\xc3\xa4": {},
 	} {
 		if got := [3]bool{plain.IsName(s), plain.IsId(s), plain.IsCurrency(s)}; got != want {
 			t.Error(s, got)
 		}
 	}
-	if plain.IsDigits("") || !plain.IsDigits("09") || plain.IsDigits("0a") || !plain.IsHex("0f") || plain.IsHex("0F") || plain.Digits(7, 3) != "007" {
+	if plain.IsDigits("") || !plain.IsDigits("09") || plain.IsDigits("0a") || !plain.IsHex("09af") || plain.IsHex("0F") || plain.IsHex("g") || plain.IsHex("`") || plain.Digits(7, 3) != "007" {
 		t.Error("digits")
 	}
-	if plain.IsDate(-1) || !plain.IsDate(api.MaxDate) || plain.IsDate(api.MaxDate+1) || plain.IsTime(-1) || !plain.IsTime(api.MaxTime) || plain.IsTime(api.MaxTime+1) {
+	if !plain.IsDate(0) || !plain.IsTime(0) || plain.IsDate(-1) || !plain.IsDate(api.MaxDate) || plain.IsDate(api.MaxDate+1) || plain.IsTime(-1) || !plain.IsTime(api.MaxTime) || plain.IsTime(api.MaxTime+1) {
 		t.Error("dates and times")
 	}
 	if plain.IsAmount(0, 1) || !plain.IsAmount(0, 0) || !plain.IsAmount(api.MaxAmount, 1) || plain.IsAmount(api.MaxAmount+1, 0) {
