@@ -3,9 +3,12 @@ package plain
 
 import (
 	"strconv"
+	"strings"
 
 	"cardnet/api"
 )
+
+const maxLiteral = 100
 
 // Number returns the number that is written as R6 requires, and whether s is written so.
 func Number(s string) (int64, bool) {
@@ -50,6 +53,21 @@ func IsHex(s string) bool {
 		}
 	}
 	return true
+}
+
+// IsPrintable reports whether all bytes of s are from 32 to 126.
+func IsPrintable(s string) bool {
+	for i := range len(s) {
+		if s[i] < 32 || s[i] > 126 {
+			return false
+		}
+	}
+	return true
+}
+
+// IsLiteral reports whether s can stand between the quotation marks of a text in the rule languages.
+func IsLiteral(s string) bool {
+	return len(s) <= maxLiteral && IsPrintable(s) && !strings.Contains(s, "\"")
 }
 
 // IsName reports whether s is a name (R7).

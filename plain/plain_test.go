@@ -42,6 +42,15 @@ func TestForms(t *testing.T) {
 	}
 }
 
+func TestPrintable(t *testing.T) {
+	long := "0123456789012345678901234567890123456789012345678901234567890123456789012345678901234567890123456789"
+	for s, want := range map[string][2]bool{"": {true, true}, " ~": {true, true}, "\x1f": {}, "\x7f": {}, "\"": {true, false}, long: {true, true}, long + "x": {true, false}, "a\xff": {}} {
+		if plain.IsPrintable(s) != want[0] || plain.IsLiteral(s) != want[1] {
+			t.Error(s)
+		}
+	}
+}
+
 func TestCloneExpr(t *testing.T) {
 	e := api.Expr{Op: api.XNot, Args: []api.Expr{{Op: api.XName, Name: "a"}}}
 	c := plain.CloneExpr(e)

@@ -5,6 +5,7 @@ import (
 	"strings"
 
 	"cardnet/api"
+	"cardnet/plain"
 )
 
 // The levels of the grammar, from the loosest to the tightest one.
@@ -30,7 +31,7 @@ func isWritable(e api.Expr) bool {
 	case api.XNumber:
 		return n == 0 && e.Name == "" && e.Text == "" && isCount(e.N)
 	case api.XText:
-		return n == 0 && e.Name == "" && isText(e.Text) && e.N == 0
+		return n == 0 && e.Name == "" && plain.IsLiteral(e.Text) && e.N == 0
 	case api.XName:
 		return n == 0 && isName(e.Name) && e.Text == "" && e.N == 0
 	case api.XCount, api.XSum:
@@ -49,15 +50,6 @@ func isWritable(e api.Expr) bool {
 }
 
 func isCount(n int64) bool { return n >= 0 && n <= maxNumber }
-
-func isText(s string) bool {
-	for i := range len(s) {
-		if s[i] < 32 || s[i] > 126 || s[i] == '"' {
-			return false
-		}
-	}
-	return len(s) <= maxText
-}
 
 // infix returns the text of an operator between two operands, and the empty string for all others.
 func infix(op int) string {
