@@ -107,3 +107,38 @@ func TestConsole(t *testing.T) {
 		t.Error("nil console")
 	}
 }
+
+func TestLines(t *testing.T) {
+	for script, want := range map[string]string{
+		"rules rule a when b: pass;":                   "rule a when b: pass;|",
+		"rules rule a when b: pass; ":                  "error 30|",
+		"rules rule a when b:  pass;":                  "error 30|",
+		" rules rule a when b: pass;":                  "error 30|",
+		"rules rule a when b:\tpass;":                  "error 30|",
+		"rules rule a when b: pass;#\x1f":              "error 30|",
+		"rules rule a when b: pass;#\x7f\xff":          "rule a when b: pass;|",
+		"network 1 1 1\nshop a\x01b":                   "ok|error 30|",
+		"network 1 1 1\nshop a\x7fb":                   "ok|0|",
+		"network 1 1 1\nshop  a":                       "ok|error 30|",
+		"pan 400000 1099511627776 16":                  "error 4|",
+		"pan 400000 1099511627777 16":                  "error 30|",
+		"pan 400000 -1099511627776 16":                 "error 4|",
+		"pan 400000 -1099511627777 16":                 "error 30|",
+		"business 1970-01-01 0\nbusiness 1970-01-03 0": "1970-01-01|1970-01-05|",
+	} {
+		check(t, script, want)
+	}
+}
+
+// TestStandardNetwork observes the numbers of the standard network that a script can observe.
+func TestStandardNetwork(t *testing.T) {
+	begin := "network 1 1 5000000\n"
+	check(t, begin+"buy 0 0 0 1000001 m\nbuy 0 0 0 999999 m\nbuy 0 0 0 1 m\nbuy 0 0 0 1 m\nbuy 0 0 1 1000000 m\nwait 9\nsale 0\nsale 1\nsale 2\nsale 3\nsale 4", "ok|0 000000000001|1 000000000002|2 000000000003|3 000000000004|4 000000000005|ok 9|declined 0 0 0|approved 999999 0 0|approved 1 0 0|declined 0 0 0|approved 1000000 0 0|")
+	check(t, begin+"buy 0 0 0 1000 m\nbuy 0 0 0 1000 m\nwait 9\ncapture 0 1151\ncapture 1 1150\nclear\nholder 0 0", "ok|0 000000000001|1 000000000002|ok 9|ok|ok|reject 000000000001-1 22|ok 1|4998850 1000|")
+	check(t, begin+"buy 0 0 0 1000 m\nwait 604801\nholder 0 0\nwait 1\nholder 0 0", "ok|0 000000000001|ok 604801|5000000 1000|ok 604802|5000000 0|")
+	check(t, begin+"buy 0 0 0 1000 m\nwait 3\nsale 0\nwait 1\nsale 0", "ok|0 000000000001|ok 3|waiting 0 0 0|ok 4|approved 1000 0 0|")
+	for wait, date := range map[string]string{"64799": "0", "64800": "1"} {
+		check(t, begin+"buy 0 0 0 100000 m\nwait "+wait+"\ncapture 0 100000\nclear\nsettle "+date, "ok|0 000000000001|ok "+wait+"|ok|ok 0|bank0 acq0 997.50 EUR|bank0 network 0.50 EUR|ok 2|")
+	}
+	check(t, begin+"buy 0 0 0 100000 m\nwait 9\ncapture 0 100000\nclear\nshop m\nbalance bank:bank0\nbalance network\nbalance acq:acq0\nbalance shops:acq0\nbalance holder:bank0", "ok|0 000000000001|ok 9|ok|ok 0|98795|200|50|955|98795|-100000|")
+}

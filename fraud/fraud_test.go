@@ -214,3 +214,25 @@ func TestBounds(t *testing.T) {
 	judge(t, x, 5, sale("c", 1), "pass 0 a")
 	judge(t, x, 6, sale("c", 1), "pass 0")
 }
+
+func TestExactRoom(t *testing.T) {
+	x := engine(t, "rule a when 1 <= count(card, 1): pass;", 5, 6)
+	for i := range 1000 {
+		if e := x.Record(5, sale("c", 1), 1); e != api.OK {
+			t.Fatal(i, e)
+		}
+	}
+	if x.Record(5, sale("c", 1), 1) != api.ErrFull || x.Record(5, nil, 1) != api.OK {
+		t.Error("a thousand uses")
+	}
+	// A second later all of them are too old.
+	if e := x.Record(6, sale("c", 1), 1); e != api.OK {
+		t.Error(e)
+	}
+	none := engine(t, "rule a when 1 = 1: pass;", 5, 6)
+	for range 1001 {
+		if e := none.Record(5, sale("c", 1), 1); e != api.OK {
+			t.Fatal(e)
+		}
+	}
+}
