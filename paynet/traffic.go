@@ -147,7 +147,10 @@ func (t *traffic) communicate() {
 	}
 	for k, o := range t.offices {
 		l := o.host.Poll(t.now)
-		t.logSales(o)
+		if len(l) > 0 {
+			// A sale that times out has a reversal, which the same Poll returns.
+			t.logSales(o)
+		}
 		for _, m := range l {
 			t.send(t.placeOfOffice(k), switchPlace, m)
 		}
