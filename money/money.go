@@ -101,7 +101,8 @@ func Scale(m api.Money, num, den int64, mode int) (api.Money, api.Errno) {
 		return api.Money{}, api.ErrRange
 	}
 	q, r := bits.Div64(hi, lo, uint64(den))
-	if roundsUp(q, r, uint64(den), mode) {
+	// A quotient above the limit is not rounded, because the greatest one would become 0.
+	if q <= api.MaxTotal && roundsUp(q, r, uint64(den), mode) {
 		q++
 	}
 	if q > api.MaxTotal {

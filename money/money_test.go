@@ -86,6 +86,8 @@ func TestScale(t *testing.T) {
 		{usd(1), 1<<40 + 1, 1, 1, api.ErrRange}, {usd(1), -1<<40 - 1, 1, 1, api.ErrRange}, {usd(1), 1, 1, 0, api.ErrRange},
 		{usd(1), 1, 1, 5, api.ErrRange}, {usd(api.MaxTotal), 2, 1, 1, api.ErrRange}, {usd(api.MaxTotal), 1 << 40, 1, 1, api.ErrRange},
 		{api.Money{Currency: "x"}, 1, 0, 9, api.ErrCurrency}, {usd(api.MaxTotal), 1<<40 - 1, 1<<40 - 2, api.Up, api.ErrRange},
+		{usd(145295143558111), 253921, 2, api.Down, api.ErrRange}, {usd(145295143558111), 253921, 2, api.Up, api.ErrRange},
+		{usd(-145295143558111), 253921, 2, api.HalfUp, api.ErrRange}, {usd(145295143558111), -253921, 2, api.HalfEven, api.ErrRange},
 	} {
 		if x, e := money.Scale(c.m, c.num, c.den, c.mode); e != c.want || x != (api.Money{}) {
 			t.Error(i, x, e)

@@ -1,7 +1,9 @@
 package money_test
 
 import (
+	"math"
 	"math/big"
+	"math/bits"
 	"math/rand"
 	"testing"
 
@@ -38,6 +40,55 @@ func TestScaleIsExact(t *testing.T) {
 		inside := n <= api.MaxTotal && n >= -api.MaxTotal && num <= 1<<40 && num >= -1<<40 && new(big.Int).Abs(want).Cmp(big.NewInt(api.MaxTotal)) <= 0
 		if inside && (e != api.OK || big.NewInt(x.Amount).Cmp(want) != 0) || !inside && e != api.ErrRange {
 			t.Fatal(n, num, den, mode, x, e, want)
+		}
+	}
+}
+
+// The exact results between 2^64 - 1 and 2^64 are those whose rounding leaves the integers of 64 bits.
+func TestScaleNextTo64Bits(t *testing.T) {
+	for _, den := range []uint64{2, 10, 1000, 1 << 20} {
+		found := 0
+		// Below this numerator the amount would be greater than MaxTotal.
+		for num := den << 12; num <= den<<12+300000; num++ {
+			n, missing := bits.Div64(den-1, math.MaxUint64, num)
+			if missing >= den-1 || n > api.MaxTotal {
+				continue
+			}
+			found++
+			checkTooGreat(t, int64(n), int64(num), int64(den))
+		}
+		if found == 0 {
+			t.Error("no amount for the denominator", den)
+		}
+	}
+}
+
+func checkTooGreat(t *testing.T, n, num, den int64) {
+	for _, amount := range []int64{n, -n} {
+		for _, factor := range []int64{num, -num} {
+			for mode := api.Down; mode <= api.HalfEven; mode++ {
+				if x, e := money.Scale(usd(amount), factor, den, mode); x != (api.Money{}) || e != api.ErrRange {
+					t.Error(amount, factor, den, mode, x, e)
+				}
+			}
+		}
+	}
+}
+
+// The bound holds for the result, so that rounding decides next to it.
+func TestScaleNextToMaxTotal(t *testing.T) {
+	for _, n := range []int64{api.MaxTotal, api.MaxTotal - 1, api.MaxTotal / 2, api.MaxTotal/2 + 1, api.MaxTotal/3 + 1, api.MaxTotal/4 + 1} {
+		for num := int64(1); num <= 13; num++ {
+			for den := int64(1); den <= 13; den++ {
+				for mode := api.Down; mode <= api.HalfEven; mode++ {
+					want := scaled(n, num, den, mode)
+					inside := want.Cmp(big.NewInt(api.MaxTotal)) <= 0
+					x, e := money.Scale(usd(n), num, den, mode)
+					if inside && (e != api.OK || big.NewInt(x.Amount).Cmp(want) != 0) || !inside && (e != api.ErrRange || x != (api.Money{})) {
+						t.Fatal(n, num, den, mode, x, e, want)
+					}
+				}
+			}
 		}
 	}
 }

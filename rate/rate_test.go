@@ -57,6 +57,10 @@ func TestConvert(t *testing.T) {
 		{api.Money{Currency: "EUR"}, x, 0, api.ErrCurrency},
 		{api.Money{Currency: "USD"}, x, 0, api.ErrRange},
 		{api.Money{Amount: api.MaxTotal, Currency: "USD"}, x, 1, api.ErrRange},
+		{api.Money{Amount: 145295143558111, Currency: "USD"}, r("USD", "EUR", 253921, 2), api.Down, api.ErrRange},
+		{api.Money{Amount: 145295143558111, Currency: "USD"}, r("USD", "EUR", 253921, 2), api.Up, api.ErrRange},
+		{api.Money{Amount: -145295143558111, Currency: "USD"}, r("USD", "EUR", 253921, 2), api.HalfUp, api.ErrRange},
+		{api.Money{Amount: 145295143558111, Currency: "USD"}, r("USD", "EUR", 253921, 2), api.HalfEven, api.ErrRange},
 	} {
 		if m, e := rate.Convert(c.m, c.x, c.mode); m != (api.Money{}) || e != c.want {
 			t.Error(i, m, e)
